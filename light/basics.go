@@ -1,0 +1,129 @@
+package light
+
+import (
+	"math"
+
+	"spillage/api"
+)
+
+// The numbers of the generator that draws permutations, and the parts of an
+// integer that a sample may be told in.
+const (
+	drawFactor  = 950706376
+	drawModulus = 2147483647
+	fineness    = 16
+	maxInteger  = api.MaxValue * fineness
+)
+
+// IsName reports whether a string is a name.
+func IsName(s string) bool {
+	if len(s) == 0 || len(s) > api.MaxName {
+		return false
+	}
+	for i, r := range s {
+		if !isLetter(r) && (i == 0 || !isDigit(r) && r != '_') {
+			return false
+		}
+	}
+	return true
+}
+
+func isLetter(r rune) bool {
+	return 'A' <= r && r <= 'Z' || 'a' <= r && r <= 'z'
+}
+
+func isDigit(r rune) bool {
+	return '0' <= r && r <= '9'
+}
+
+// Draw returns the permutation of n elements by a key.
+func Draw(key, n int) ([]int, api.Errno) {
+	if e := first(checkRange(key, 1, drawModulus-1), checkRange(n, 0, api.MaxList)); e != api.OK {
+		return nil, e
+	}
+	l := make([]int, n)
+	for i := range n {
+		l[i] = i
+	}
+	x := int64(key)
+	for i := n - 1; i >= 1; i-- {
+		x = drawFactor * x % drawModulus
+		j := int(x % int64(i+1))
+		l[i], l[j] = l[j], l[i]
+	}
+	return l, api.OK
+}
+
+// CheckRatio returns the first error of a ratio, or OK.
+func CheckRatio(x api.Ratio) api.Errno {
+	e := first(checkRange(x.Num, -api.MaxNumber, api.MaxNumber), checkRange(x.Den, 1, api.MaxNumber))
+	if e != api.OK {
+		return e
+	}
+	if divisor(x.Num, x.Den) != 1 {
+		return api.ErrForm
+	}
+	return api.OK
+}
+
+// divisor returns the greatest common divisor; of 0 and b it is b, so that 0
+// is a ratio only over 1.
+func divisor(a, b int) int {
+	a = max(a, -a)
+	for b != 0 {
+		a, b = b, a%b
+	}
+	return a
+}
+
+// CheckSample returns the first error of a sample, or OK.
+func CheckSample(x float32) api.Errno {
+	if !isFinite(x) {
+		return api.ErrForm
+	}
+	if !isMultiple(x, api.MaxValue) {
+		return api.ErrRange
+	}
+	return api.OK
+}
+
+func isFinite(x float32) bool {
+	return !math.IsNaN(float64(x)) && !math.IsInf(float64(x), 0)
+}
+
+// isMultiple reports whether a finite number is a multiple of 1/16 from -limit
+// to limit.
+func isMultiple(x float32, limit float64) bool {
+	n := float64(x) * fineness
+	return n == math.Trunc(n) && math.Abs(n) <= limit*fineness
+}
+
+// integer returns the integer of a sample.
+func integer(x float32) int {
+	return int(x * fineness)
+}
+
+// sample returns the sample with an integer.
+func sample(n int) float32 {
+	return float32(n) / fineness
+}
+
+// CheckVector returns the first error of a vector, or OK.
+func CheckVector(v api.Vector) api.Errno {
+	return first(
+		checkRange(v.X, -api.MaxReach, api.MaxReach),
+		checkRange(v.Y, -api.MaxReach, api.MaxReach),
+		checkRange(v.Z, -api.MaxReach, api.MaxReach),
+	)
+}
+
+// CheckDirection returns the first error of a direction, or OK.
+func CheckDirection(v api.Vector) api.Errno {
+	if e := CheckVector(v); e != api.OK {
+		return e
+	}
+	if v == (api.Vector{}) {
+		return api.ErrZero
+	}
+	return api.OK
+}

@@ -1,0 +1,93 @@
+package light
+
+import (
+	"slices"
+
+	"spillage/api"
+)
+
+// Added returns the sum of two maps.
+func Added(a, b Map) (Map, api.Errno) {
+	if e := first(CheckMap(a), CheckMap(b)); e != api.OK {
+		return Map{}, e
+	}
+	if a.Width != b.Width || a.Height != b.Height {
+		return Map{}, api.ErrShape
+	}
+	g, h := gridOf(a), gridOf(b)
+	return painted(g.width, g.height, func(p api.Point) int { return g.at(p) + h.at(p) })
+}
+
+// Scaled returns the scaled map.
+func Scaled(m Map, num, den int) (Map, api.Errno) {
+	if e := first(CheckMap(m), checkRange(num, -MaxScale, MaxScale), checkRange(den, 1, MaxScale)); e != api.OK {
+		return Map{}, e
+	}
+	g := gridOf(m)
+	g.cells = mapped(g.cells, func(n int) int { return rounded(n*num, den) })
+	return g.toMap()
+}
+
+// rounded returns the nearest integer of a / b, for b above 0; from the middle
+// the greater one.
+func rounded(a, b int) int {
+	return lowered(2*a+b, 2*b)
+}
+
+// lowered returns a / b rounded down, for b above 0.
+func lowered(a, b int) int {
+	q := a / b
+	if a%b < 0 {
+		q--
+	}
+	return q
+}
+
+// Spread returns the map that is spread by a share.
+func Spread(m Map, share int) (Map, api.Errno) {
+	if e := first(CheckMap(m), checkRange(share, 0, MaxShare)); e != api.OK {
+		return Map{}, e
+	}
+	g := gridOf(m)
+	out := g
+	out.cells = slices.Clone(g.cells)
+	for p := range places(g.width, g.height) {
+		gift := lowered(g.at(p)*share, 16)
+		for _, q := range neighbours(g, p) {
+			out.cells[g.index(p)] -= gift
+			out.cells[g.index(q)] += gift
+		}
+	}
+	return out.toMap()
+}
+
+// neighbours returns the places left, right, above and below, as far as there
+// are some.
+func neighbours(g grid, p api.Point) []api.Point {
+	var l []api.Point
+	for _, d := range [4]api.Point{{X: -1}, {X: 1}, {Y: -1}, {Y: 1}} {
+		q := api.Point{X: p.X + d.X, Y: p.Y + d.Y}
+		if g.has(q) {
+			l = append(l, q)
+		}
+	}
+	return l
+}
+
+// Binned returns the map that is binned by a step.
+func Binned(m Map, step int) (Map, api.Errno) {
+	if e := first(CheckMap(m), checkSide(step)); e != api.OK {
+		return Map{}, e
+	}
+	if m.Width%step != 0 || m.Height%step != 0 {
+		return Map{}, api.ErrShape
+	}
+	g := gridOf(m)
+	return painted(g.width/step, g.height/step, func(p api.Point) int {
+		sum := 0
+		for q := range places(step, step) {
+			sum += g.at(api.Point{X: p.X*step + q.X, Y: p.Y*step + q.Y})
+		}
+		return sum
+	})
+}
