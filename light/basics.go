@@ -4,6 +4,7 @@ import (
 	"math"
 
 	"spillage/api"
+	"spillage/common"
 )
 
 // The numbers of the generator that draws permutations, and the parts of an
@@ -21,7 +22,7 @@ func IsName(s string) bool {
 		return false
 	}
 	for i, r := range s {
-		if !isLetter(r) && (i == 0 || !isDigit(r) && r != '_') {
+		if !isLetter(r) && (i == 0 || !common.IsDigit(r) && r != '_') {
 			return false
 		}
 	}
@@ -32,13 +33,9 @@ func isLetter(r rune) bool {
 	return 'A' <= r && r <= 'Z' || 'a' <= r && r <= 'z'
 }
 
-func isDigit(r rune) bool {
-	return '0' <= r && r <= '9'
-}
-
 // Draw returns the permutation of n elements by a key.
 func Draw(key, n int) ([]int, api.Errno) {
-	if e := first(checkRange(key, 1, drawModulus-1), checkRange(n, 0, api.MaxList)); e != api.OK {
+	if e := common.First(common.CheckRange(key, 1, drawModulus-1), common.CheckRange(n, 0, api.MaxList)); e != api.OK {
 		return nil, e
 	}
 	l := make([]int, n)
@@ -56,24 +53,13 @@ func Draw(key, n int) ([]int, api.Errno) {
 
 // CheckRatio returns the first error of a ratio, or OK.
 func CheckRatio(x api.Ratio) api.Errno {
-	e := first(checkRange(x.Num, -api.MaxNumber, api.MaxNumber), checkRange(x.Den, 1, api.MaxNumber))
+	e := common.First(common.CheckRange(x.Num, -api.MaxNumber, api.MaxNumber), common.CheckRange(x.Den, 1, api.MaxNumber))
 	if e != api.OK {
 		return e
 	}
-	if divisor(x.Num, x.Den) != 1 {
-		return api.ErrForm
-	}
-	return api.OK
-}
-
-// divisor returns the greatest common divisor; of 0 and b it is b, so that 0
-// is a ratio only over 1.
-func divisor(a, b int) int {
-	a = max(a, -a)
-	for b != 0 {
-		a, b = b, a%b
-	}
-	return a
+	// The divisor of 0 and a denominator is the denominator, so that 0 is a
+	// ratio only over 1.
+	return common.When(common.Divisor(x.Num, x.Den) != 1, api.ErrForm)
 }
 
 // CheckSample returns the first error of a sample, or OK.
@@ -110,10 +96,10 @@ func sample(n int) float32 {
 
 // CheckVector returns the first error of a vector, or OK.
 func CheckVector(v api.Vector) api.Errno {
-	return first(
-		checkRange(v.X, -api.MaxReach, api.MaxReach),
-		checkRange(v.Y, -api.MaxReach, api.MaxReach),
-		checkRange(v.Z, -api.MaxReach, api.MaxReach),
+	return common.First(
+		common.CheckRange(v.X, -api.MaxReach, api.MaxReach),
+		common.CheckRange(v.Y, -api.MaxReach, api.MaxReach),
+		common.CheckRange(v.Z, -api.MaxReach, api.MaxReach),
 	)
 }
 

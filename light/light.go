@@ -29,29 +29,3 @@ type Telegram struct {
 	Order   int
 	Vector  api.Vector
 }
-
-// first returns the first of some errors that is one.
-func first(errors ...api.Errno) api.Errno {
-	for _, e := range errors {
-		if e != api.OK {
-			return e
-		}
-	}
-	return api.OK
-}
-
-// mapped returns what a function makes of each element of a list.
-func mapped[A, B any](l []A, change func(A) B) []B {
-	out := make([]B, 0, len(l))
-	for _, x := range l {
-		out = append(out, change(x))
-	}
-	return out
-}
-
-func checkRange(n, low, high int) api.Errno {
-	if n < low || n > high {
-		return api.ErrRange
-	}
-	return api.OK
-}

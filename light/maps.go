@@ -4,6 +4,7 @@ import (
 	"iter"
 
 	"spillage/api"
+	"spillage/common"
 )
 
 // grid is a map whose samples are told by their integers.
@@ -14,7 +15,7 @@ type grid struct {
 }
 
 func gridOf(m Map) grid {
-	return grid{width: m.Width, height: m.Height, cells: mapped(m.Samples, integer)}
+	return grid{width: m.Width, height: m.Height, cells: common.Mapped(m.Samples, integer)}
 }
 
 func (g grid) has(p api.Point) bool {
@@ -37,7 +38,7 @@ func (g grid) toMap() (Map, api.Errno) {
 			return Map{}, api.ErrLarge
 		}
 	}
-	return Map{Width: g.width, Height: g.height, Samples: mapped(g.cells, sample)}, api.OK
+	return Map{Width: g.width, Height: g.height, Samples: common.Mapped(g.cells, sample)}, api.OK
 }
 
 // painted returns the map whose integers a function tells for each place.
@@ -64,17 +65,17 @@ func places(width, height int) iter.Seq[api.Point] {
 
 // CheckMap returns the first error of a map, or OK.
 func CheckMap(m Map) api.Errno {
-	if e := first(checkSide(m.Width), checkSide(m.Height)); e != api.OK {
+	if e := common.First(checkSide(m.Width), checkSide(m.Height)); e != api.OK {
 		return e
 	}
 	if len(m.Samples) != m.Width*m.Height {
 		return api.ErrShape
 	}
-	return first(mapped(m.Samples, CheckSample)...)
+	return common.First(common.Mapped(m.Samples, CheckSample)...)
 }
 
 func checkSide(n int) api.Errno {
-	return checkRange(n, 1, api.MaxSide)
+	return common.CheckRange(n, 1, api.MaxSide)
 }
 
 // At returns the sample at a place.
@@ -121,7 +122,7 @@ func Part(m Map, columns, rows api.Span) (Map, api.Errno) {
 	if e := CheckMap(m); e != api.OK {
 		return Map{}, e
 	}
-	if e := first(checkSpan(columns, m.Width), checkSpan(rows, m.Height)); e != api.OK {
+	if e := common.First(checkSpan(columns, m.Width), checkSpan(rows, m.Height)); e != api.OK {
 		return Map{}, e
 	}
 	g := gridOf(m)
@@ -140,7 +141,7 @@ func checkSpan(s api.Span, length int) api.Errno {
 
 // Placed returns a map that is placed on a greater one.
 func Placed(m Map, width, height int, at api.Point) (Map, api.Errno) {
-	if e := first(CheckMap(m), checkSide(width), checkSide(height)); e != api.OK {
+	if e := common.First(CheckMap(m), checkSide(width), checkSide(height)); e != api.OK {
 		return Map{}, e
 	}
 	// The differences of sides cannot overflow, as sums with the point could.

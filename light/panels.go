@@ -2,11 +2,12 @@ package light
 
 import (
 	"spillage/api"
+	"spillage/common"
 )
 
 // Four returns the transform of four samples.
 func Four(l [4]float32) ([4]complex64, api.Errno) {
-	if e := first(mapped(l[:], CheckSample)...); e != api.OK {
+	if e := common.First(common.Mapped(l[:], CheckSample)...); e != api.OK {
 		return [4]complex64{}, e
 	}
 	var p [4]complex64
@@ -26,7 +27,7 @@ func power(n int) complex64 {
 
 // Unfour returns the samples of a panel.
 func Unfour(p [4]complex64) ([4]float32, api.Errno) {
-	if e := first(mapped(p[:], checkNumber)...); e != api.OK {
+	if e := common.First(common.Mapped(p[:], checkNumber)...); e != api.OK {
 		return [4]float32{}, e
 	}
 	var l [4]float32

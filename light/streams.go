@@ -5,6 +5,7 @@ import (
 	"math"
 
 	"spillage/api"
+	"spillage/common"
 )
 
 // The parts of the stream of a map: its begin with width and height, and the
@@ -50,7 +51,7 @@ func Unpack(s []byte) (Map, api.Errno) {
 		bits := readNumber(s[at : at+sampleSize])
 		m.Samples = append(m.Samples, math.Float32frombits(uint32(bits)))
 	}
-	if e := first(CheckMap(m), first(mapped(m.Samples, checkZero)...)); e != api.OK {
+	if e := common.First(CheckMap(m), common.First(common.Mapped(m.Samples, checkZero)...)); e != api.OK {
 		return Map{}, e
 	}
 	return m, api.OK

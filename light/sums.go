@@ -4,11 +4,12 @@ import (
 	"slices"
 
 	"spillage/api"
+	"spillage/common"
 )
 
 // Added returns the sum of two maps.
 func Added(a, b Map) (Map, api.Errno) {
-	if e := first(CheckMap(a), CheckMap(b)); e != api.OK {
+	if e := common.First(CheckMap(a), CheckMap(b)); e != api.OK {
 		return Map{}, e
 	}
 	if a.Width != b.Width || a.Height != b.Height {
@@ -20,11 +21,11 @@ func Added(a, b Map) (Map, api.Errno) {
 
 // Scaled returns the scaled map.
 func Scaled(m Map, num, den int) (Map, api.Errno) {
-	if e := first(CheckMap(m), checkRange(num, -MaxScale, MaxScale), checkRange(den, 1, MaxScale)); e != api.OK {
+	if e := common.First(CheckMap(m), common.CheckRange(num, -MaxScale, MaxScale), common.CheckRange(den, 1, MaxScale)); e != api.OK {
 		return Map{}, e
 	}
 	g := gridOf(m)
-	g.cells = mapped(g.cells, func(n int) int { return rounded(n*num, den) })
+	g.cells = common.Mapped(g.cells, func(n int) int { return rounded(n*num, den) })
 	return g.toMap()
 }
 
@@ -45,7 +46,7 @@ func lowered(a, b int) int {
 
 // Spread returns the map that is spread by a share.
 func Spread(m Map, share int) (Map, api.Errno) {
-	if e := first(CheckMap(m), checkRange(share, 0, MaxShare)); e != api.OK {
+	if e := common.First(CheckMap(m), common.CheckRange(share, 0, MaxShare)); e != api.OK {
 		return Map{}, e
 	}
 	g := gridOf(m)
@@ -76,7 +77,7 @@ func neighbours(g grid, p api.Point) []api.Point {
 
 // Binned returns the map that is binned by a step.
 func Binned(m Map, step int) (Map, api.Errno) {
-	if e := first(CheckMap(m), checkSide(step)); e != api.OK {
+	if e := common.First(CheckMap(m), checkSide(step)); e != api.OK {
 		return Map{}, e
 	}
 	if m.Width%step != 0 || m.Height%step != 0 {

@@ -2,6 +2,7 @@ package light
 
 import (
 	"spillage/api"
+	"spillage/common"
 )
 
 // Places in a frame, and the greatest numbers that fit in its bytes.
@@ -131,7 +132,7 @@ func Received(s []byte) ([]Telegram, []api.Span, api.Errno) {
 			at += Size
 			continue
 		}
-		skipped = extended(skipped, at)
+		skipped = common.Extended(skipped, at)
 		at++
 	}
 	return telegrams, skipped, api.OK
@@ -147,22 +148,12 @@ func telegramAt(s []byte, at int) (Telegram, bool) {
 	return t, e == api.OK
 }
 
-// extended adds an index to ascending spans; the last span grows if it ends
-// there.
-func extended(l []api.Span, at int) []api.Span {
-	if last := len(l) - 1; last >= 0 && l[last].To == at {
-		l[last].To++
-		return l
-	}
-	return append(l, api.Span{From: at, To: at + 1})
-}
-
 // Lost returns the counters of a station that are lost.
 func Lost(l []Telegram, station int) ([]int, api.Errno) {
 	if len(l) > MaxTelegrams {
 		return nil, api.ErrMany
 	}
-	if e := first(append(mapped(l, checkTelegram), checkRange(station, 0, maxByte))...); e != api.OK {
+	if e := common.First(append(common.Mapped(l, checkTelegram), common.CheckRange(station, 0, maxByte))...); e != api.OK {
 		return nil, e
 	}
 	lost := missing(countersOf(l, station), api.MaxList+1)

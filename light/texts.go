@@ -2,13 +2,11 @@ package light
 
 import (
 	"slices"
-	"strconv"
 	"strings"
 
 	"spillage/api"
+	"spillage/common"
 )
-
-const maxDigits = 9
 
 // lineForm is what a kind of line asks of its integers.
 type lineForm struct {
@@ -28,15 +26,11 @@ func Print(m Map) (string, api.Errno) {
 		return "", e
 	}
 	var text strings.Builder
-	text.WriteString(lineOf("map", m.Width, m.Height))
+	text.WriteString(common.Line("map", m.Width, m.Height))
 	for row := range slices.Chunk(gridOf(m).cells, m.Width) {
-		text.WriteString(lineOf("row", row...))
+		text.WriteString(common.Line("row", row...))
 	}
 	return text.String(), api.OK
-}
-
-func lineOf(word string, numbers ...int) string {
-	return strings.Join(append([]string{word}, mapped(numbers, strconv.Itoa)...), " ") + "\n"
 }
 
 // Parse returns the map of a text, and the index of the first line that is wrong.
@@ -44,7 +38,7 @@ func Parse(s string) (Map, int, api.Errno) {
 	if len(s) > api.MaxLog {
 		return Map{}, 0, api.ErrLong
 	}
-	lines := linesOf(s)
+	lines := common.Lines(s)
 	if len(lines) == 0 {
 		return Map{}, 0, api.ErrSyntax
 	}
@@ -66,80 +60,19 @@ func Parse(s string) (Map, int, api.Errno) {
 	return m, 0, api.OK
 }
 
-// linesOf splits a text after each line feed.
-func linesOf(s string) []string {
-	lines := strings.SplitAfter(s, "\n")
-	if last := len(lines) - 1; lines[last] == "" {
-		lines = lines[:last]
-	}
-	return lines
-}
-
 // readLine returns the integers of a line of a kind, or false if it does not
 // have its form.
 func readLine(line, kind string, form lineForm) ([]int, bool) {
-	body, ended := strings.CutSuffix(line, "\n")
+	left, ended := common.WordsOf(line)
 	if !ended {
 		return nil, false
 	}
-	left := words{rest: body, more: true}
-	take := left.next
+	take := left.Next
 	if word, _ := take(); word != kind {
 		return nil, false
 	}
-	numbers, ok := readNumbers(take)
+	numbers, ok := common.Integers(take)
 	return numbers, ok && form.fits(len(numbers))
-}
-
-// words are what is left of a line.
-type words struct {
-	rest string
-	more bool
-}
-
-// next takes the word before the next space; it may be empty.
-func (w *words) next() (string, bool) {
-	if !w.more {
-		return "", false
-	}
-	word, rest, more := strings.Cut(w.rest, " ")
-	w.rest, w.more = rest, more
-	return word, true
-}
-
-// readNumbers returns the words that are left as integers, or false if one is
-// none.
-func readNumbers(take func() (string, bool)) ([]int, bool) {
-	var numbers []int
-	for {
-		word, more := take()
-		if !more {
-			return numbers, true
-		}
-		n, ok := readInteger(word)
-		if !ok {
-			return nil, false
-		}
-		numbers = append(numbers, n)
-	}
-}
-
-// readInteger returns the integer that a word tells in its one form.
-func readInteger(word string) (int, bool) {
-	digits := strings.TrimPrefix(word, "-")
-	if len(digits) == 0 || len(digits) > maxDigits {
-		return 0, false
-	}
-	if digits[0] == '0' && word != "0" {
-		return 0, false
-	}
-	for _, r := range digits {
-		if !isDigit(r) {
-			return 0, false
-		}
-	}
-	n, err := strconv.Atoi(word)
-	return n, err == nil
 }
 
 // assembled returns the map with a width, a height and the integers of its

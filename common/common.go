@@ -1,0 +1,58 @@
+// Package common has what several layers need beside the functions that their
+// chapters list: checks, lists, spans, and the lines of texts.
+package common
+
+import (
+	"spillage/api"
+)
+
+// First returns the first of some errors that is one.
+func First(errors ...api.Errno) api.Errno {
+	for _, e := range errors {
+		if e != api.OK {
+			return e
+		}
+	}
+	return api.OK
+}
+
+// When returns an error if something is wrong.
+func When(wrong bool, e api.Errno) api.Errno {
+	if wrong {
+		return e
+	}
+	return api.OK
+}
+
+// CheckRange returns ErrRange for a number that is not from low to high.
+func CheckRange(n, low, high int) api.Errno {
+	return When(n < low || n > high, api.ErrRange)
+}
+
+// Mapped returns what a function makes of each element of a list.
+func Mapped[A, B any](l []A, change func(A) B) []B {
+	out := make([]B, 0, len(l))
+	for _, x := range l {
+		out = append(out, change(x))
+	}
+	return out
+}
+
+// Divisor returns the greatest common divisor; of 0 and a number it is the
+// number without its sign.
+func Divisor(a, b int) int {
+	for b != 0 {
+		a, b = b, a%b
+	}
+	return max(a, -a)
+}
+
+// Extended adds an index to ascending spans; the last span grows if it ends
+// there.
+func Extended(l []api.Span, at int) []api.Span {
+	if last := len(l) - 1; last >= 0 && l[last].To == at {
+		l[last].To++
+		return l
+	}
+	return append(l, api.Span{From: at, To: at + 1})
+}

@@ -1,0 +1,88 @@
+package common
+
+import (
+	"strconv"
+	"strings"
+)
+
+const maxDigits = 9
+
+// Line returns the line of a word and integers.
+func Line(word string, numbers ...int) string {
+	return strings.Join(append([]string{word}, Mapped(numbers, strconv.Itoa)...), " ") + "\n"
+}
+
+// Lines splits a text after each line feed.
+func Lines(s string) []string {
+	lines := strings.SplitAfter(s, "\n")
+	if last := len(lines) - 1; lines[last] == "" {
+		lines = lines[:last]
+	}
+	return lines
+}
+
+// Words are what is left of a line.
+type Words struct {
+	rest string
+	more bool
+}
+
+// WordsOf returns the words of a line, or false if it has no line feed at its
+// end.
+func WordsOf(line string) (Words, bool) {
+	body, ended := strings.CutSuffix(line, "\n")
+	if !ended {
+		return Words{}, false
+	}
+	return Words{rest: body, more: true}, true
+}
+
+// Next takes the word before the next space; it may be empty.
+func (w *Words) Next() (string, bool) {
+	if !w.more {
+		return "", false
+	}
+	word, rest, more := strings.Cut(w.rest, " ")
+	w.rest, w.more = rest, more
+	return word, true
+}
+
+// Integers returns the words that are left as integers, or false if one is
+// none.
+func Integers(take func() (string, bool)) ([]int, bool) {
+	var numbers []int
+	for {
+		word, more := take()
+		if !more {
+			return numbers, true
+		}
+		n, ok := Integer(word)
+		if !ok {
+			return nil, false
+		}
+		numbers = append(numbers, n)
+	}
+}
+
+// Integer returns the integer that a word tells in its one form.
+func Integer(word string) (int, bool) {
+	digits := strings.TrimPrefix(word, "-")
+	if len(digits) == 0 || len(digits) > maxDigits {
+		return 0, false
+	}
+	if digits[0] == '0' && word != "0" {
+		return 0, false
+	}
+	for _, r := range digits {
+		if !IsDigit(r) {
+			return 0, false
+		}
+	}
+	n, err := strconv.Atoi(word)
+	return n, err == nil
+}
+
+// IsDigit reports whether a rune is a decimal digit of ASCII.
+func IsDigit(r rune) bool {
+	return '0' <= r && r <= '9'
+}

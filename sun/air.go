@@ -1,0 +1,86 @@
+package sun
+
+import (
+	"spillage/api"
+	"spillage/common"
+)
+
+// fineness is the factor of the parts of a ray, next to which lifts count.
+const fineness = 64
+
+// CheckAir returns the first error of air, or OK.
+func CheckAir(l []Step) api.Errno {
+	if len(l) > MaxSteps {
+		return api.ErrMany
+	}
+	for i, x := range l {
+		e := common.First(
+			common.CheckRange(x.From, -MaxSteep, MaxSteep),
+			common.CheckRange(x.Lift, 0, MaxLift),
+			common.When(i > 0 && x.From <= l[i-1].From, api.ErrOrder),
+		)
+		if e != api.OK {
+			return e
+		}
+	}
+	return api.OK
+}
+
+// placed is a step with its place in the air; nowhere is the place of no step.
+type placed struct {
+	Step
+	place int
+}
+
+const nowhere = -1
+
+// stepsOf returns all steps with their places; the first one is no step.
+func stepsOf(l []Step) []placed {
+	steps := []placed{{place: nowhere}}
+	for i, x := range l {
+		steps = append(steps, placed{Step: x, place: i})
+	}
+	return steps
+}
+
+// stepOf returns the step, or no step, from which a direction has its lift.
+func stepOf(steps []placed, p parts) placed {
+	last := steps[0]
+	for _, x := range steps[1:] {
+		if p.flat() > 0 && x.From*p.flat() <= fineness*p[up] {
+			last = x
+		}
+	}
+	return last
+}
+
+// lifted returns a direction with a lift, not reduced.
+func (p parts) lifted(lift int) parts {
+	return p.times(fineness).plus(axes[up].times(lift * p.flat()))
+}
+
+// Bent returns a ray, bent by air.
+func Bent(l []Step, v api.Vector) (api.Vector, api.Errno) {
+	if e := common.First(CheckAir(l), CheckRay(v)); e != api.OK {
+		return api.Vector{}, e
+	}
+	p := partsOf(v)
+	return p.lifted(stepOf(stepsOf(l), p).Lift).reduced().vector(), api.OK
+}
+
+// Unbent returns all rays that are bent to a ray. The lift of each step leads
+// one direction to the ray, which counts if that step is the one of its lift.
+func Unbent(l []Step, v api.Vector) ([]api.Vector, api.Errno) {
+	if e := common.First(CheckAir(l), CheckRay(v)); e != api.OK {
+		return nil, e
+	}
+	var found []parts
+	steps := stepsOf(l)
+	for _, x := range steps {
+		p := partsOf(v).lifted(-x.Lift)
+		if stepOf(steps, p) == x {
+			found = append(found, p)
+		}
+	}
+	return common.Mapped(common.Mapped(found, parts.reduced), parts.vector), api.OK
+}
