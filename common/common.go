@@ -1,5 +1,5 @@
 // Package common has what several layers need beside the functions that their
-// chapters list: checks, lists, spans, and the lines of texts.
+// chapters list: checks, lists, intervals, spans, and the lines of texts.
 package common
 
 import (
@@ -27,6 +27,27 @@ func When(wrong bool, e api.Errno) api.Errno {
 // CheckRange returns ErrRange for a number that is not from low to high.
 func CheckRange(n, low, high int) api.Errno {
 	return When(n < low || n > high, api.ErrRange)
+}
+
+// CheckLength returns ErrEmpty for no elements, and ErrMany for too many.
+func CheckLength(n, most int) api.Errno {
+	return First(When(n == 0, api.ErrEmpty), When(n > most, api.ErrMany))
+}
+
+// CheckInterval returns ErrRange for an interval with an end that is not from
+// low to high, then ErrOrder if its ends are in the wrong order.
+func CheckInterval(x api.Interval, low, high int) api.Errno {
+	return First(
+		CheckRange(x.Low, low, high),
+		CheckRange(x.High, low, high),
+		When(x.Low > x.High, api.ErrOrder),
+	)
+}
+
+// Shared returns what two intervals have in common; without that, its ends are
+// in the wrong order.
+func Shared(a, b api.Interval) api.Interval {
+	return api.Interval{Low: max(a.Low, b.Low), High: min(a.High, b.High)}
 }
 
 // Mapped returns what a function makes of each element of a list.

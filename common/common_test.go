@@ -13,10 +13,34 @@ func TestChecks(t *testing.T) {
 		{common.First(), api.OK}, {common.First(api.OK, api.OK), api.OK}, {common.First(api.OK, api.ErrZero, api.ErrForm), api.ErrZero},
 		{common.When(true, api.ErrName), api.ErrName}, {common.When(false, api.ErrName), api.OK},
 		{common.CheckRange(1, 1, 3), api.OK}, {common.CheckRange(3, 1, 3), api.OK}, {common.CheckRange(0, 1, 3), api.ErrRange}, {common.CheckRange(4, 1, 3), api.ErrRange},
+		{common.CheckLength(0, 3), api.ErrEmpty}, {common.CheckLength(1, 3), api.OK}, {common.CheckLength(3, 3), api.OK}, {common.CheckLength(4, 3), api.ErrMany},
 	} {
 		if x.got != x.wanted {
 			t.Errorf("got error %d, want %d", x.got, x.wanted)
 		}
+	}
+}
+
+func TestIntervals(t *testing.T) {
+	at := func(low, high int) api.Interval { return api.Interval{Low: low, High: high} }
+	for _, x := range []struct {
+		x api.Interval
+		e api.Errno
+	}{
+		{at(-2, 3), api.OK}, {at(0, 0), api.OK}, {at(3, 3), api.OK}, {at(-2, -2), api.OK}, {at(1, 0), api.ErrOrder}, {at(3, -2), api.ErrOrder},
+		{at(-3, 3), api.ErrRange}, {at(-2, 4), api.ErrRange}, {at(4, 3), api.ErrRange}, {at(0, -3), api.ErrRange},
+	} {
+		if e := common.CheckInterval(x.x, -2, 3); e != x.e {
+			t.Errorf("CheckInterval %v: error %d, want %d", x.x, e, x.e)
+		}
+	}
+	for _, x := range [][3]api.Interval{{at(0, 5), at(3, 9), at(3, 5)}, {at(3, 9), at(0, 5), at(3, 5)}, {at(0, 9), at(2, 4), at(2, 4)}, {at(0, 2), at(2, 4), at(2, 2)}} {
+		if got := common.Shared(x[0], x[1]); got != x[2] {
+			t.Errorf("Shared %v %v: %v, want %v", x[0], x[1], got, x[2])
+		}
+	}
+	if x := common.Shared(at(0, 1), at(2, 3)); x.Low <= x.High {
+		t.Errorf("Shared of nothing: %v", x)
 	}
 }
 

@@ -7,6 +7,7 @@ import (
 	"testing"
 
 	"spillage/api"
+	"spillage/expect"
 	"spillage/light"
 )
 
@@ -62,7 +63,7 @@ func TestDraw(t *testing.T) {
 		{7, 20, []int{4, 9, 7, 6, 1, 15, 12, 13, 17, 16, 19, 2, 0, 5, 18, 14, 8, 10, 3, 11}},
 	} {
 		l, e := light.Draw(x.key, x.n)
-		wantErr(t, "Draw", e, api.OK)
+		expect.Err(t, "Draw", e, api.OK)
 		if !slices.Equal(l, x.l) {
 			t.Errorf("Draw %d %d: %v, want %v", x.key, x.n, l, x.l)
 		}
@@ -71,7 +72,7 @@ func TestDraw(t *testing.T) {
 
 func TestDrawOfTheMost(t *testing.T) {
 	l, e := light.Draw(2147483646, 256)
-	wantErr(t, "Draw", e, api.OK)
+	expect.Err(t, "Draw", e, api.OK)
 	if len(l) != 256 {
 		t.Fatalf("Draw has %d elements", len(l))
 	}
@@ -92,7 +93,7 @@ func TestDrawWithErrors(t *testing.T) {
 		{5, -1}, {5, 257}, {5, math.MaxInt}, {5, math.MinInt}, {0, -1}, {0, 257},
 	} {
 		l, e := light.Draw(x[0], x[1])
-		wantErr(t, "Draw", e, api.ErrRange)
+		expect.Err(t, "Draw", e, api.ErrRange)
 		if len(l) != 0 {
 			t.Errorf("Draw %v: %v beside an error", x, l)
 		}
@@ -158,15 +159,15 @@ func TestCheckVectorAndCheckDirection(t *testing.T) {
 		{X: 1}, {Y: 1}, {Z: 1}, {X: -1}, {Y: -1}, {Z: -1}, {X: 3, Y: -4, Z: 5},
 		{X: 1048576, Y: 1048576, Z: 1048576}, {X: -1048576, Y: -1048576, Z: -1048576}, {X: 1, Y: -1}, {Y: 1, Z: -1},
 	} {
-		wantErr(t, "CheckVector", light.CheckVector(v), api.OK)
-		wantErr(t, "CheckDirection", light.CheckDirection(v), api.OK)
+		expect.Err(t, "CheckVector", light.CheckVector(v), api.OK)
+		expect.Err(t, "CheckDirection", light.CheckDirection(v), api.OK)
 	}
 	for _, n := range []int{1048577, -1048577, math.MaxInt, math.MinInt, 1 << 32, -1 << 32} {
 		for _, v := range []api.Vector{{X: n}, {Y: n}, {Z: n}, {X: n, Y: 1, Z: 1}, {X: 1, Y: 1, Z: n}, {X: n, Y: n, Z: n}} {
-			wantErr(t, "CheckVector", light.CheckVector(v), api.ErrRange)
-			wantErr(t, "CheckDirection", light.CheckDirection(v), api.ErrRange)
+			expect.Err(t, "CheckVector", light.CheckVector(v), api.ErrRange)
+			expect.Err(t, "CheckDirection", light.CheckDirection(v), api.ErrRange)
 		}
 	}
-	wantErr(t, "CheckVector of 0", light.CheckVector(api.Vector{}), api.OK)
-	wantErr(t, "CheckDirection of 0", light.CheckDirection(api.Vector{}), api.ErrZero)
+	expect.Err(t, "CheckVector of 0", light.CheckVector(api.Vector{}), api.OK)
+	expect.Err(t, "CheckDirection of 0", light.CheckDirection(api.Vector{}), api.ErrZero)
 }

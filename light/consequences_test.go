@@ -6,6 +6,7 @@ import (
 	"testing"
 
 	"spillage/api"
+	"spillage/expect"
 	"spillage/light"
 )
 
@@ -29,15 +30,15 @@ func TestPartsPlacedAndAddedAreTheMap(t *testing.T) {
 		for i, x := range columns[1:] {
 			for j, y := range rows[1:] {
 				part, e := light.Part(m, span(columns[i], x), span(rows[j], y))
-				wantErr(t, "Part", e, api.OK)
+				expect.Err(t, "Part", e, api.OK)
 				placed, e := light.Placed(part, m.Width, m.Height, at(columns[i], rows[j]))
-				wantErr(t, "Placed", e, api.OK)
+				expect.Err(t, "Placed", e, api.OK)
 				if total(t, placed) != total(t, part) {
 					t.Fatal("Placed does not keep the light")
 				}
 				light1 += total(t, part)
 				sum, e = light.Added(sum, placed)
-				wantErr(t, "Added", e, api.OK)
+				expect.Err(t, "Added", e, api.OK)
 			}
 		}
 		if !sameMap(sum, m) || light1 != total(t, m) {
@@ -105,20 +106,20 @@ func TestBinnedInTwoSteps(t *testing.T) {
 func TestStreamsAndTextsComeBack(t *testing.T) {
 	randoms(16384, func(_ *rand.Rand, m light.Map) {
 		s, e := light.Pack(m)
-		wantErr(t, "Pack", e, api.OK)
+		expect.Err(t, "Pack", e, api.OK)
 		back, e := light.Unpack(s)
 		wantMap(t, "Unpack", back, e, m)
 		again, e := light.Pack(back)
-		wantErr(t, "Pack", e, api.OK)
+		expect.Err(t, "Pack", e, api.OK)
 		if !slices.Equal(s, again) {
 			t.Fatal("the stream does not come back")
 		}
 		text, e := light.Print(m)
-		wantErr(t, "Print", e, api.OK)
+		expect.Err(t, "Print", e, api.OK)
 		back, _, e = light.Parse(text)
 		wantMap(t, "Parse", back, e, m)
 		printed, e := light.Print(back)
-		wantErr(t, "Print", e, api.OK)
+		expect.Err(t, "Print", e, api.OK)
 		if text != printed {
 			t.Fatal("the text does not come back")
 		}
@@ -157,7 +158,7 @@ func TestUndamagedFramesAreReceived(t *testing.T) {
 			}
 		}
 		l, spans, e := light.Received(s)
-		wantErr(t, "Received", e, api.OK)
+		expect.Err(t, "Received", e, api.OK)
 		if !slices.Equal(l, sent) {
 			t.Fatalf("received %d telegrams of %d", len(l), len(sent))
 		}

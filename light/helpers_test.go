@@ -7,21 +7,14 @@ import (
 	"testing"
 
 	"spillage/api"
+	"spillage/expect"
 	"spillage/light"
 )
-
-// wantErr reports an error that is not the expected one.
-func wantErr(t *testing.T, what string, got, wanted api.Errno) {
-	t.Helper()
-	if got != wanted {
-		t.Errorf("%s: error %d, want %d", what, got, wanted)
-	}
-}
 
 // wantMap reports a map or an error that is not the expected one.
 func wantMap(t *testing.T, what string, got light.Map, e api.Errno, wanted light.Map) {
 	t.Helper()
-	wantErr(t, what, e, api.OK)
+	expect.Err(t, what, e, api.OK)
 	if !sameMap(got, wanted) {
 		t.Errorf("%s: got %v, want %v", what, got, wanted)
 	}
@@ -30,7 +23,7 @@ func wantMap(t *testing.T, what string, got light.Map, e api.Errno, wanted light
 // wantNoMap reports a map beside an error, and another error than the expected one.
 func wantNoMap(t *testing.T, what string, got light.Map, e, wanted api.Errno) {
 	t.Helper()
-	wantErr(t, what, e, wanted)
+	expect.Err(t, what, e, wanted)
 	if !sameMap(got, light.Map{}) {
 		t.Errorf("%s: got %v beside an error", what, got)
 	}
@@ -45,7 +38,7 @@ func sameMap(a, b light.Map) bool {
 func right(t *testing.T) func(light.Map, api.Errno) light.Map {
 	return func(m light.Map, e api.Errno) light.Map {
 		t.Helper()
-		wantErr(t, "a right call", e, api.OK)
+		expect.Err(t, "a right call", e, api.OK)
 		return m
 	}
 }
@@ -54,7 +47,7 @@ func right(t *testing.T) func(light.Map, api.Errno) light.Map {
 func total(t *testing.T, m light.Map) int {
 	t.Helper()
 	n, e := light.Total(m)
-	wantErr(t, "Total", e, api.OK)
+	expect.Err(t, "Total", e, api.OK)
 	return n
 }
 

@@ -7,6 +7,7 @@ import (
 	"testing"
 
 	"spillage/api"
+	"spillage/expect"
 	"spillage/light"
 )
 
@@ -27,25 +28,25 @@ func TestCheckMap(t *testing.T) {
 	}
 	late := flat(64, 64, 1)
 	late.Samples[4095] = nan()
-	wantErr(t, "CheckMap with a wrong last sample", light.CheckMap(late), api.ErrForm)
+	expect.Err(t, "CheckMap with a wrong last sample", light.CheckMap(late), api.ErrForm)
 	late.Samples[4094] = 1025
-	wantErr(t, "CheckMap with two wrong samples", light.CheckMap(late), api.ErrRange)
+	expect.Err(t, "CheckMap with two wrong samples", light.CheckMap(late), api.ErrRange)
 }
 
 func TestWrongMapsEverywhere(t *testing.T) {
 	for _, x := range wrongMaps() {
 		n, e := light.At(x.m, at(-1, 0))
-		wantErr(t, "At", e, x.e)
+		expect.Err(t, "At", e, x.e)
 		if n != 0 {
 			t.Errorf("At: %v beside an error", n)
 		}
 		light1, e := light.Total(x.m)
-		wantErr(t, "Total", e, x.e)
+		expect.Err(t, "Total", e, x.e)
 		if light1 != 0 {
 			t.Errorf("Total: %v beside an error", light1)
 		}
 		peak, where, e := light.Peak(x.m)
-		wantErr(t, "Peak", e, x.e)
+		expect.Err(t, "Peak", e, x.e)
 		if peak != 0 || where != at(0, 0) {
 			t.Errorf("Peak: %v %v beside an error", peak, where)
 		}
@@ -65,13 +66,13 @@ func TestAt(t *testing.T) {
 		for x := -1; x <= 4; x++ {
 			n, e := light.At(six(), at(x, y))
 			if x < 0 || y < 0 || x > 2 || y > 1 {
-				wantErr(t, "At outside", e, api.ErrUnknown)
+				expect.Err(t, "At outside", e, api.ErrUnknown)
 				if n != 0 {
 					t.Errorf("At %d %d: %v beside an error", x, y, n)
 				}
 				continue
 			}
-			wantErr(t, "At", e, api.OK)
+			expect.Err(t, "At", e, api.OK)
 			if n != float32(1+3*y+x) {
 				t.Errorf("At %d %d: %v", x, y, n)
 			}
@@ -79,7 +80,7 @@ func TestAt(t *testing.T) {
 	}
 	for _, p := range []api.Point{at(math.MaxInt, 0), at(0, math.MaxInt), at(math.MinInt, 0), at(0, math.MinInt), at(-3, 1), at(3, -1), at(5, 0), at(0, 3074457345618258603)} {
 		_, e := light.At(six(), p)
-		wantErr(t, "At far outside", e, api.ErrUnknown)
+		expect.Err(t, "At far outside", e, api.ErrUnknown)
 	}
 	n, e := light.At(table(2, 1, -1024, -0.0625), at(1, 0))
 	if n != -0.0625 || e != api.OK {
@@ -96,7 +97,7 @@ func TestTotal(t *testing.T) {
 		{flat(64, 64, 1024), 67108864}, {flat(64, 64, -1024), -67108864}, {flat(64, 64, 0.0625), 4096}, {flat(64, 64, 1023.9375), 4096 * 16383},
 	} {
 		n, e := light.Total(x.m)
-		wantErr(t, "Total", e, api.OK)
+		expect.Err(t, "Total", e, api.OK)
 		if n != x.n {
 			t.Errorf("Total of %d by %d: %d, want %d", x.m.Width, x.m.Height, n, x.n)
 		}
@@ -115,7 +116,7 @@ func TestPeak(t *testing.T) {
 		{table(3, 2, 1, 0, 2, 0, 2.0625, 2), 2.0625, at(1, 1)},
 	} {
 		n, p, e := light.Peak(x.m)
-		wantErr(t, "Peak", e, api.OK)
+		expect.Err(t, "Peak", e, api.OK)
 		if n != x.n || p != x.p {
 			t.Errorf("Peak %d: %v at %v, want %v at %v", i, n, p, x.n, x.p)
 		}
@@ -164,7 +165,7 @@ func TestPlaced(t *testing.T) {
 		}
 	}
 	m, e = light.Placed(six(), 64, 64, at(61, 62))
-	wantErr(t, "Placed on the greatest map", e, api.OK)
+	expect.Err(t, "Placed on the greatest map", e, api.OK)
 	if len(m.Samples) != 4096 || m.Samples[4095] != 6 || m.Samples[63*64+60] != 0 {
 		t.Errorf("Placed on the greatest map: %d samples", len(m.Samples))
 	}
@@ -212,7 +213,7 @@ func TestResultsAreNew(t *testing.T) {
 	} {
 		m := six()
 		out, e := call(m)
-		wantErr(t, name, e, api.OK)
+		expect.Err(t, name, e, api.OK)
 		if !slices.Equal(m.Samples, six().Samples) {
 			t.Errorf("%s changes its argument", name)
 		}

@@ -5,6 +5,7 @@ import (
 	"testing"
 
 	"spillage/api"
+	"spillage/expect"
 	"spillage/light"
 )
 
@@ -94,7 +95,7 @@ func TestUnfourOfNearPanels(t *testing.T) {
 			l[i] = float32(r.Intn(32769)-16384) / 16
 		}
 		p, e := light.Four(l)
-		wantErr(t, "Four", e, api.OK)
+		expect.Err(t, "Four", e, api.OK)
 		back, e := light.Unfour(p)
 		if back != l || e != api.OK {
 			t.Fatalf("Unfour of the transform of %v: %v, %d", l, back, e)

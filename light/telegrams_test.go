@@ -7,6 +7,7 @@ import (
 	"testing"
 
 	"spillage/api"
+	"spillage/expect"
 	"spillage/light"
 )
 
@@ -38,7 +39,7 @@ func sealedFrame(f [24]byte) [24]byte { return [24]byte(sealed(f[:])) }
 func frame(t *testing.T, x light.Telegram) [24]byte {
 	t.Helper()
 	f, e := light.Encode(x)
-	wantErr(t, "Encode", e, api.OK)
+	expect.Err(t, "Encode", e, api.OK)
 	return f
 }
 
@@ -174,7 +175,7 @@ func wantReceived(t *testing.T, what string, s []byte, telegrams []light.Telegra
 	t.Helper()
 	before := slices.Clone(s)
 	l, spans, e := light.Received(s)
-	wantErr(t, what, e, api.OK)
+	expect.Err(t, what, e, api.OK)
 	if !slices.Equal(l, telegrams) {
 		t.Errorf("Received %s: %v, want %v", what, l, telegrams)
 	}
@@ -245,7 +246,7 @@ func TestReceivedUpToTheLimit(t *testing.T) {
 	wantReceived(t, "of marks", slices.Repeat([]byte{77}, 12288), nil, []api.Span{span(0, 12288)})
 	for _, long := range [][]byte{append(s, 0), make([]byte, 12289), make([]byte, 400001)} {
 		telegrams, skipped, e := light.Received(long)
-		wantErr(t, "Received of too much", e, api.ErrLong)
+		expect.Err(t, "Received of too much", e, api.ErrLong)
 		if len(telegrams) != 0 || len(skipped) != 0 {
 			t.Errorf("Received: %v %v beside an error", telegrams, skipped)
 		}
@@ -264,7 +265,7 @@ func counted(l ...int) []light.Telegram {
 func wantLost(t *testing.T, l []light.Telegram, station int, lost []int) {
 	t.Helper()
 	got, e := light.Lost(l, station)
-	wantErr(t, "Lost", e, api.OK)
+	expect.Err(t, "Lost", e, api.OK)
 	if !slices.Equal(got, lost) {
 		t.Errorf("Lost: %v, want %v", got, lost)
 	}
@@ -303,7 +304,7 @@ func TestLostOfTheMost(t *testing.T) {
 		counted(7, 6), counted(0, 65535), counted(5, 6, 6), append(counted(7), counted(7)...),
 	} {
 		lost, e := light.Lost(l, 4)
-		wantErr(t, "Lost of too many", e, api.ErrMany)
+		expect.Err(t, "Lost of too many", e, api.ErrMany)
 		if len(lost) != 0 {
 			t.Errorf("Lost: %v beside an error", lost)
 		}
@@ -314,7 +315,7 @@ func TestLostWithErrors(t *testing.T) {
 	for _, x := range wrongTelegrams() {
 		for _, l := range [][]light.Telegram{{x}, {{}, x}, append(counted(7, 7), x)} {
 			lost, e := light.Lost(l, 4)
-			wantErr(t, "Lost of a wrong telegram", e, api.ErrRange)
+			expect.Err(t, "Lost of a wrong telegram", e, api.ErrRange)
 			if len(lost) != 0 {
 				t.Errorf("Lost: %v beside an error", lost)
 			}
@@ -323,16 +324,16 @@ func TestLostWithErrors(t *testing.T) {
 	for _, station := range []int{-1, 256, math.MaxInt, math.MinInt} {
 		for _, l := range [][]light.Telegram{nil, counted(3), counted(7, 7), {{Station: station}}} {
 			_, e := light.Lost(l, station)
-			wantErr(t, "Lost of a wrong station", e, api.ErrRange)
+			expect.Err(t, "Lost of a wrong station", e, api.ErrRange)
 		}
 	}
 	many := make([]light.Telegram, 513)
 	_, e := light.Lost(many, 4)
-	wantErr(t, "Lost of 513 telegrams", e, api.ErrMany)
+	expect.Err(t, "Lost of 513 telegrams", e, api.ErrMany)
 	_, e = light.Lost(many, 256)
-	wantErr(t, "Lost of 513 telegrams and a wrong station", e, api.ErrMany)
+	expect.Err(t, "Lost of 513 telegrams and a wrong station", e, api.ErrMany)
 	many[0].Order = -1
 	_, e = light.Lost(many, 4)
-	wantErr(t, "Lost of 513 telegrams, one of them wrong", e, api.ErrMany)
+	expect.Err(t, "Lost of 513 telegrams, one of them wrong", e, api.ErrMany)
 	wantLost(t, make([]light.Telegram, 512), 4, nil)
 }

@@ -7,6 +7,7 @@ import (
 	"testing"
 
 	"spillage/api"
+	"spillage/expect"
 	"spillage/light"
 )
 
@@ -33,7 +34,7 @@ func TestPack(t *testing.T) {
 		{table(2, 1, -1024, 0.0625), stream(2, 1, 0xc4800000, 0x3d800000)},
 	} {
 		s, e := light.Pack(x.m)
-		wantErr(t, "Pack", e, api.OK)
+		expect.Err(t, "Pack", e, api.OK)
 		if !slices.Equal(s, x.s) {
 			t.Errorf("Pack %v: %v, want %v", x.m, s, x.s)
 		}
@@ -41,7 +42,7 @@ func TestPack(t *testing.T) {
 		wantMap(t, "Unpack", m, e, x.m)
 	}
 	s, e := light.Pack(flat(64, 64, 1023.9375))
-	wantErr(t, "Pack", e, api.OK)
+	expect.Err(t, "Pack", e, api.OK)
 	if len(s) != 16394 || s[4] != 64 || s[5] != 64 {
 		t.Fatalf("Pack of the greatest map has %d bytes", len(s))
 	}
@@ -52,9 +53,9 @@ func TestPack(t *testing.T) {
 func TestPackAndPrintOfWrongMaps(t *testing.T) {
 	for _, x := range wrongMaps() {
 		s, e := light.Pack(x.m)
-		wantErr(t, "Pack", e, x.e)
+		expect.Err(t, "Pack", e, x.e)
 		text, e := light.Print(x.m)
-		wantErr(t, "Print", e, x.e)
+		expect.Err(t, "Print", e, x.e)
 		if len(s) != 0 || text != "" {
 			t.Errorf("Pack or Print: %v %q beside an error", s, text)
 		}

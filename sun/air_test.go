@@ -6,6 +6,7 @@ import (
 	"testing"
 
 	"spillage/api"
+	"spillage/expect"
 	"spillage/sun"
 )
 
@@ -37,7 +38,7 @@ func TestCheckAir(t *testing.T) {
 		most[i] = sun.Step{From: i - 8, Lift: i}
 	}
 	for _, l := range [][]sun.Step{nil, {}, air(), most, steps([2]int{-100000, 0}, [2]int{100000, 16}), steps([2]int{5, 16}), steps([2]int{-1, 3}, [2]int{0, 3}, [2]int{1, 3})} {
-		wantErr(t, "CheckAir", sun.CheckAir(l), api.OK)
+		expect.Err(t, "CheckAir", sun.CheckAir(l), api.OK)
 	}
 	for _, x := range wrongAirs() {
 		if e := sun.CheckAir(x.x); e != x.e {
@@ -62,7 +63,7 @@ func TestBent(t *testing.T) {
 		{steps([2]int{-100000, 16}), vec(4096, -4096, -4096), vec(2, -2, -1)}, {steps([2]int{100000, 16}), vec(1, 0, 4096), vec(4, 0, 16385)},
 	} {
 		b, e := sun.Bent(x.l, x.v)
-		want(t, "Bent", b, e, x.b, api.OK)
+		expect.Result(t, "Bent", b, e, x.b, api.OK)
 	}
 }
 
@@ -84,26 +85,26 @@ func TestUnbent(t *testing.T) {
 		{steps([2]int{-100000, 16}), vec(4096, 4095, -4096), []api.Vector{vec(16384, 16380, -24575)}},
 	} {
 		l, e := sun.Unbent(x.l, x.v)
-		wantList(t, "Unbent", l, e, x.r, api.OK)
+		expect.List(t, "Unbent", l, e, x.r, api.OK)
 	}
 }
 
 func TestBentAndUnbentWithErrors(t *testing.T) {
 	for _, x := range wrongAirs() {
 		b, e := sun.Bent(x.x, vec(1, 0, 0))
-		want(t, "Bent by wrong air", b, e, api.Vector{}, x.e)
+		expect.Result(t, "Bent by wrong air", b, e, api.Vector{}, x.e)
 		_, e = sun.Bent(x.x, vec(0, 0, 0))
-		wantErr(t, "Bent of two errors", e, x.e)
+		expect.Err(t, "Bent of two errors", e, x.e)
 		l, e := sun.Unbent(x.x, vec(1, 0, 0))
-		wantList(t, "Unbent by wrong air", l, e, nil, x.e)
+		expect.List(t, "Unbent by wrong air", l, e, nil, x.e)
 		_, e = sun.Unbent(x.x, vec(0, 0, 0))
-		wantErr(t, "Unbent of two errors", e, x.e)
+		expect.Err(t, "Unbent of two errors", e, x.e)
 	}
 	for _, x := range wrongRays() {
 		b, e := sun.Bent(air(), x.x)
-		want(t, "Bent of a wrong ray", b, e, api.Vector{}, x.e)
+		expect.Result(t, "Bent of a wrong ray", b, e, api.Vector{}, x.e)
 		l, e := sun.Unbent(nil, x.x)
-		wantList(t, "Unbent of a wrong ray", l, e, nil, x.e)
+		expect.List(t, "Unbent of a wrong ray", l, e, nil, x.e)
 	}
 }
 
@@ -130,7 +131,7 @@ func TestBentOfRandomRays(t *testing.T) {
 		l, v := randomAir(r), random(r, []int{2, 9, 60}[i%3])
 		lift, _ := liftOf(l, v)
 		b, e := sun.Bent(l, v)
-		want(t, "Bent", b, e, divided(bentBy(v, lift)), api.OK)
+		expect.Result(t, "Bent", b, e, divided(bentBy(v, lift)), api.OK)
 	}
 }
 
@@ -141,7 +142,7 @@ func TestUnbentIsAll(t *testing.T) {
 	for i := range 4000 {
 		l, v := randomAir(r), random(r, []int{2, 9, 60}[i%3])
 		got, e := sun.Unbent(l, v)
-		wantErr(t, "Unbent", e, api.OK)
+		expect.Err(t, "Unbent", e, api.OK)
 		before := -2
 		for _, u := range got {
 			lift, place := liftOf(l, u)

@@ -7,6 +7,7 @@ import (
 	"testing"
 
 	"spillage/api"
+	"spillage/expect"
 	"spillage/sun"
 )
 
@@ -18,7 +19,7 @@ func upwards(num, den int) sun.Cone { return cone(vec(0, 0, 1), num, den) }
 
 func TestCheckCone(t *testing.T) {
 	for _, c := range []sun.Cone{upwards(1, 2), upwards(0, 1), upwards(1, 1), upwards(100, 100), upwards(0, 100), upwards(2, 4), cone(vec(4096, -4096, 4096), 99, 100), cone(vec(-1, 0, 0), 0, 7)} {
-		wantErr(t, "CheckCone", sun.CheckCone(c), api.OK)
+		expect.Err(t, "CheckCone", sun.CheckCone(c), api.OK)
 	}
 	for _, x := range wrongCones() {
 		if e := sun.CheckCone(x.x); e != x.e {
@@ -40,17 +41,17 @@ func TestInside(t *testing.T) {
 		{cone(vec(4096, 4096, 4096), 100, 100), vec(4096, 4096, 4095), false}, {cone(vec(4096, 4096, 4096), 99, 100), vec(4096, 4096, 4095), true}, {cone(vec(4096, 4096, 4096), 99, 100), vec(-4096, -4096, -4096), false},
 	} {
 		is, e := sun.Inside(x.c, x.v)
-		want(t, "Inside", is, e, x.is, api.OK)
+		expect.Result(t, "Inside", is, e, x.is, api.OK)
 	}
 	for _, x := range wrongCones() {
 		is, e := sun.Inside(x.x, vec(0, 0, 1))
-		want(t, "Inside of a wrong cone", is, e, false, x.e)
+		expect.Result(t, "Inside of a wrong cone", is, e, false, x.e)
 		is, e = sun.Inside(x.x, api.Vector{X: 5000})
-		want(t, "Inside of a wrong cone and a wrong ray", is, e, false, x.e)
+		expect.Result(t, "Inside of a wrong cone and a wrong ray", is, e, false, x.e)
 	}
 	for _, x := range wrongRays() {
 		is, e := sun.Inside(upwards(0, 1), x.x)
-		want(t, "Inside of a wrong ray", is, e, false, x.e)
+		expect.Result(t, "Inside of a wrong ray", is, e, false, x.e)
 	}
 }
 
@@ -62,7 +63,7 @@ func TestInsideOfRandomCones(t *testing.T) {
 		cosine := signed(axis, v)
 		for num := range den + 1 {
 			is, e := sun.Inside(cone(axis, num, den), v)
-			want(t, "Inside", is, e, cosine.Sign() > 0 && cosine.Cmp(frac(num, den)) >= 0, api.OK)
+			expect.Result(t, "Inside", is, e, cosine.Sign() > 0 && cosine.Cmp(frac(num, den)) >= 0, api.OK)
 		}
 	}
 }
@@ -84,9 +85,9 @@ func TestMeets(t *testing.T) {
 		{cone(vec(256, 256, 256), 100, 100), vec(256, 256, 254), vec(254, 253, 256), false}, {cone(vec(256, 256, 256), 99, 100), vec(256, 256, 254), vec(254, 253, 256), true},
 	} {
 		is, e := sun.Meets(x.c, x.a, x.b)
-		want(t, "Meets", is, e, x.is, api.OK)
+		expect.Result(t, "Meets", is, e, x.is, api.OK)
 		is, e = sun.Meets(x.c, x.b, x.a)
-		want(t, "Meets on the way back", is, e, x.is, api.OK)
+		expect.Result(t, "Meets on the way back", is, e, x.is, api.OK)
 	}
 }
 
@@ -95,7 +96,7 @@ func TestMeetsWithErrors(t *testing.T) {
 	check := func(what string, c sun.Cone, a, b api.Vector, wanted api.Errno) {
 		t.Helper()
 		is, e := sun.Meets(c, a, b)
-		want(t, what, is, e, false, wanted)
+		expect.Result(t, what, is, e, false, wanted)
 	}
 	for _, x := range wrongCones() {
 		check("Meets of a wrong cone", x.x, a, b, x.e)
@@ -140,7 +141,7 @@ func TestMeetsAsItsRaysAre(t *testing.T) {
 		den := 1 + r.Intn(100)
 		num := r.Intn(den + 1)
 		met, e := sun.Meets(cone(axis, num, den), a, b)
-		wantErr(t, "Meets", e, api.OK)
+		expect.Err(t, "Meets", e, api.OK)
 		one, near := false, false
 		for n := range steps + 1 {
 			v := way(a, b, steps-n, n)
@@ -183,10 +184,10 @@ func TestMeetsOfTheNearestShares(t *testing.T) {
 		scaled := new(big.Rat).Mul(cosine, frac(den, 1))
 		num := int(new(big.Int).Quo(scaled.Num(), scaled.Denom()).Int64())
 		met, e := sun.Meets(cone(axis, num, den), a, b)
-		want(t, "Meets of a share that is reached", met, e, true, api.OK)
+		expect.Result(t, "Meets of a share that is reached", met, e, true, api.OK)
 		if num < den {
 			met, e = sun.Meets(cone(axis, num+1, den), a, b)
-			want(t, "Meets of a share that is not reached", met, e, false, api.OK)
+			expect.Result(t, "Meets of a share that is not reached", met, e, false, api.OK)
 		}
 	}
 	if checked < 500 {
@@ -201,11 +202,11 @@ func TestFrame(t *testing.T) {
 		{vec(4096, 4095, 4096), vec(-4095, 4096, 0), vec(-16777216, -16773120, 33546241)}, // no limit is named for a frame
 	} {
 		f, e := sun.Frame(x.n)
-		want(t, "Frame", f, e, [2]api.Vector{x.first, x.second}, api.OK)
+		expect.Result(t, "Frame", f, e, [2]api.Vector{x.first, x.second}, api.OK)
 	}
 	for _, x := range wrongRays() {
 		f, e := sun.Frame(x.x)
-		want(t, "Frame", f, e, [2]api.Vector{}, x.e)
+		expect.Result(t, "Frame", f, e, [2]api.Vector{}, x.e)
 	}
 	r := rand.New(rand.NewSource(7))
 	for range 300 {
@@ -215,7 +216,7 @@ func TestFrame(t *testing.T) {
 		}
 		first := divided(cross(vec(0, 0, 1), n))
 		f, e := sun.Frame(n)
-		want(t, "Frame", f, e, [2]api.Vector{first, divided(cross(n, first))}, api.OK)
+		expect.Result(t, "Frame", f, e, [2]api.Vector{first, divided(cross(n, first))}, api.OK)
 	}
 }
 
@@ -231,7 +232,7 @@ func TestHit(t *testing.T) {
 		{vec(-far, -far, -far), vec(1, 0, 0), vec(far, far, far), vec(4095, 4096, 4096), ratio(25767706624, 4095)}, {vec(far, far, far), vec(4096, 4096, 4096), vec(-far, -far, -far), vec(4096, 4096, 4096), ratio(-512, 1)},
 	} {
 		h, e := sun.Hit(x.from, x.d, x.place, x.normal)
-		want(t, "Hit", h, e, x.h, api.OK)
+		expect.Result(t, "Hit", h, e, x.h, api.OK)
 	}
 }
 
@@ -240,7 +241,7 @@ func TestHitWithErrors(t *testing.T) {
 	check := func(what string, from, d, place, normal api.Vector, wanted api.Errno) {
 		t.Helper()
 		h, e := sun.Hit(from, d, place, normal)
-		want(t, what, h, e, api.Ratio{}, wanted)
+		expect.Result(t, what, h, e, api.Ratio{}, wanted)
 	}
 	for _, x := range wrongVectors(api.MaxReach) {
 		check("Hit from a wrong place", x.x, vec(0, 0, 0), o, vec(0, 0, 0), api.ErrRange)
@@ -265,7 +266,7 @@ func TestHitLiesInThePlane(t *testing.T) {
 			continue
 		}
 		h, e := sun.Hit(from, d, place, normal)
-		wantErr(t, "Hit", e, api.OK)
+		expect.Err(t, "Hit", e, api.OK)
 		at := new(big.Rat).Mul(frac(h.Num, h.Den), frac(dot(d, normal), 1))
 		if at.Cmp(frac(dot(place, normal)-dot(from, normal), 1)) != 0 || h.Den < 1 {
 			t.Fatalf("Hit from %v along %v of the plane %v %v: %v", from, d, place, normal, h)

@@ -6,6 +6,7 @@ import (
 	"testing"
 
 	"spillage/api"
+	"spillage/expect"
 	"spillage/sun"
 )
 
@@ -16,9 +17,9 @@ func TestReflectedTwice(t *testing.T) {
 	for range 2000 {
 		d, n := random(r, 10), random(r, 10)
 		once, e := sun.Reflected(d, n)
-		wantErr(t, "Reflected", e, api.OK)
+		expect.Err(t, "Reflected", e, api.OK)
 		twice, e := sun.Reflected(once, n)
-		want(t, "Reflected twice", twice, e, divided(d), api.OK)
+		expect.Result(t, "Reflected twice", twice, e, divided(d), api.OK)
 	}
 }
 
@@ -31,11 +32,11 @@ func TestNormalReflectsEachToTheOther(t *testing.T) {
 		if e == api.ErrZero {
 			continue
 		}
-		wantErr(t, "Normal", e, api.OK)
+		expect.Err(t, "Normal", e, api.OK)
 		there, e := sun.Reflected(a, n)
-		want(t, "Reflected at the normal", there, e, ok(sun.Reduced(b)), api.OK)
+		expect.Result(t, "Reflected at the normal", there, e, ok(sun.Reduced(b)), api.OK)
 		back, e := sun.Reflected(b, n)
-		want(t, "Reflected at the normal", back, e, ok(sun.Reduced(a)), api.OK)
+		expect.Result(t, "Reflected at the normal", back, e, ok(sun.Reduced(a)), api.OK)
 		moved, e := sun.Reflected(other, n)
 		if e != api.OK {
 			continue
@@ -60,9 +61,9 @@ func TestWholeVectorsAreWhole(t *testing.T) {
 			continue
 		}
 		v, e := sun.Whole(l)
-		wantErr(t, "Whole", e, api.OK)
+		expect.Err(t, "Whole", e, api.OK)
 		n, e := sun.Length(v)
-		want(t, "Length of a whole vector", n, e, l[0]*l[0]+l[1]*l[1]+l[2]*l[2]+l[3]*l[3], api.OK)
+		expect.Result(t, "Length of a whole vector", n, e, l[0]*l[0]+l[1]*l[1]+l[2]*l[2]+l[3]*l[3], api.OK)
 	}
 }
 
@@ -71,7 +72,7 @@ func TestFramesAreAtRightAngles(t *testing.T) {
 	for i := range 1000 {
 		n := random(r, []int{1, 5, 4096}[i%3])
 		f, e := sun.Frame(n)
-		wantErr(t, "Frame", e, api.OK)
+		expect.Err(t, "Frame", e, api.OK)
 		if dot(n, f[0]) != 0 || dot(n, f[1]) != 0 || dot(f[0], f[1]) != 0 || f[0] == (api.Vector{}) || f[1] == (api.Vector{}) {
 			t.Fatalf("the frame of %v is %v", n, f)
 		}
@@ -139,7 +140,7 @@ func TestTheSunLiesBetweenToldOnes(t *testing.T) {
 				if e == api.ErrNone {
 					continue
 				}
-				wantErr(t, "At", e, api.OK)
+				expect.Err(t, "At", e, api.OK)
 				if signed(v, a.Direction).Cmp(apart) < 0 || signed(v, b.Direction).Cmp(apart) < 0 {
 					t.Fatalf("the sun %v at %d is farther from %v or %v than they are from one another", v, tick, a, b)
 				}
@@ -157,9 +158,9 @@ func TestToldDirectionsAreTheSun(t *testing.T) {
 		s := randomSky(r, 4096)
 		for _, x := range s.Suns {
 			v, e := sun.At(s, x.Tick)
-			want(t, "At a told tick", v, e, right[api.Vector](t)(sun.Reduced(x.Direction)), api.OK)
+			expect.Result(t, "At a told tick", v, e, right[api.Vector](t)(sun.Reduced(x.Direction)), api.OK)
 			is, e := sun.Risen(s, x.Tick)
-			want(t, "Risen at a told tick", is, e, x.Direction.Z > 0, api.OK)
+			expect.Result(t, "Risen at a told tick", is, e, x.Direction.Z > 0, api.OK)
 		}
 		n := right[int](t)(sun.Highest(s))
 		for i, x := range s.Suns {
@@ -176,13 +177,13 @@ func TestARayIsAmongThoseOfItsBentRay(t *testing.T) {
 	for range 3000 {
 		l, v := randomAir(r), random(r, 12)
 		b, e := sun.Bent(l, v)
-		wantErr(t, "Bent", e, api.OK)
+		expect.Err(t, "Bent", e, api.OK)
 		if !isRay(b) {
 			continue
 		}
 		checked++
 		all, e := sun.Unbent(l, b)
-		wantErr(t, "Unbent", e, api.OK)
+		expect.Err(t, "Unbent", e, api.OK)
 		if !slices.Contains(all, right[api.Vector](t)(sun.Reduced(v))) {
 			t.Fatalf("Unbent %v %v: %v, without %v", l, b, all, v)
 		}
@@ -197,12 +198,12 @@ func TestSkiesComeBack(t *testing.T) {
 	for range 300 {
 		s := randomSky(r, 4096)
 		text, e := sun.Print(s)
-		wantErr(t, "Print", e, api.OK)
+		expect.Err(t, "Print", e, api.OK)
 		back, index, e := sun.Parse(text)
 		if e != api.OK || index != 0 || !sameSky(back, s) {
 			t.Fatalf("%v comes back as %v, line %d, error %d", s, back, index, e)
 		}
 		again, e := sun.Print(back)
-		want(t, "Print", again, e, text, api.OK)
+		expect.Result(t, "Print", again, e, text, api.OK)
 	}
 }

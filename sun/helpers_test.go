@@ -11,30 +11,6 @@ import (
 	"spillage/sun"
 )
 
-// wantErr reports an error that is not the expected one.
-func wantErr(t *testing.T, what string, got, wanted api.Errno) {
-	t.Helper()
-	if got != wanted {
-		t.Errorf("%s: error %d, want %d", what, got, wanted)
-	}
-}
-
-// want reports a result or an error that is not the expected one.
-func want[T comparable](t *testing.T, what string, got T, e api.Errno, wanted T, wantedErr api.Errno) {
-	t.Helper()
-	if got != wanted || e != wantedErr {
-		t.Errorf("%s: got %v, error %d, want %v, error %d", what, got, e, wanted, wantedErr)
-	}
-}
-
-// wantList reports a list or an error that is not the expected one.
-func wantList[T comparable](t *testing.T, what string, got []T, e api.Errno, wanted []T, wantedErr api.Errno) {
-	t.Helper()
-	if !slices.Equal(got, wanted) || e != wantedErr {
-		t.Errorf("%s: got %v, error %d, want %v, error %d", what, got, e, wanted, wantedErr)
-	}
-}
-
 // right returns the result of a call that has no error.
 func right[T any](t *testing.T) func(T, api.Errno) T {
 	return func(x T, e api.Errno) T {

@@ -6,6 +6,7 @@ import (
 	"testing"
 
 	"spillage/api"
+	"spillage/expect"
 	"spillage/sun"
 )
 
@@ -110,10 +111,10 @@ func TestResultsAreTheSameAgain(t *testing.T) {
 			t.Fatal("Parse changes its result")
 		}
 		f, e := sun.Frame(vec(0, 0, 5))
-		want(t, "Frame", f, e, [2]api.Vector{vec(1, 0, 0), vec(0, 1, 0)}, api.OK)
+		expect.Result(t, "Frame", f, e, [2]api.Vector{vec(1, 0, 0), vec(0, 1, 0)}, api.OK)
 		f[0], f[1] = vec(9, 9, 9), vec(9, 9, 9)
 		l, e := sun.Unbent(air(), vec(16, 0, 17))
-		wantList(t, "Unbent", l, e, []api.Vector{vec(16, 0, 15), vec(16, 0, 17)}, api.OK)
+		expect.List(t, "Unbent", l, e, []api.Vector{vec(16, 0, 15), vec(16, 0, 17)}, api.OK)
 		l[0] = vec(9, 9, 9)
 	}
 }

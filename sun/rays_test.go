@@ -6,6 +6,7 @@ import (
 	"testing"
 
 	"spillage/api"
+	"spillage/expect"
 	"spillage/sun"
 )
 
@@ -13,7 +14,7 @@ import (
 
 func TestCheckRay(t *testing.T) {
 	for _, v := range []api.Vector{vec(1, 2, 2), vec(1, 0, 0), vec(0, -1, 0), vec(0, 0, 1), vec(4096, -4096, 4096), vec(-4096, 4096, -4096)} {
-		wantErr(t, "CheckRay", sun.CheckRay(v), api.OK)
+		expect.Err(t, "CheckRay", sun.CheckRay(v), api.OK)
 	}
 	for _, x := range wrongRays() {
 		if e := sun.CheckRay(x.x); e != x.e {
@@ -29,17 +30,17 @@ func TestReduced(t *testing.T) {
 		{vec(12, -18, 30), vec(2, -3, 5)}, {vec(0, 4, -6), vec(0, 2, -3)}, {vec(1048576, 1048575, 1), vec(1048576, 1048575, 1)}, {vec(6, 4, 9), vec(6, 4, 9)},
 	} {
 		r, e := sun.Reduced(x.v)
-		want(t, "Reduced", r, e, x.r, api.OK)
+		expect.Result(t, "Reduced", r, e, x.r, api.OK)
 	}
 	for _, x := range wrongDirections() {
 		r, e := sun.Reduced(x.x)
-		want(t, "Reduced", r, e, api.Vector{}, x.e)
+		expect.Result(t, "Reduced", r, e, api.Vector{}, x.e)
 	}
 	r := rand.New(rand.NewSource(1))
 	for range 500 {
 		v := random(r, 30)
 		got, e := sun.Reduced(v)
-		want(t, "Reduced", got, e, divided(v), api.OK)
+		expect.Result(t, "Reduced", got, e, divided(v), api.OK)
 	}
 }
 
@@ -53,27 +54,27 @@ func TestSame(t *testing.T) {
 		{vec(1<<20, 1<<20-1, 1<<20), vec(1<<20, 1<<20, 1<<20), false}, {vec(1, 2, 2), vec(1, 2, -2), false},
 	} {
 		is, e := sun.Same(x.a, x.b)
-		want(t, "Same", is, e, x.is, api.OK)
+		expect.Result(t, "Same", is, e, x.is, api.OK)
 		is, e = sun.Same(x.b, x.a)
-		want(t, "Same", is, e, x.is, api.OK)
+		expect.Result(t, "Same", is, e, x.is, api.OK)
 	}
 	for _, x := range wrongDirections() {
 		is, e := sun.Same(x.x, vec(1, 0, 0))
-		want(t, "Same of a wrong vector", is, e, false, x.e)
+		expect.Result(t, "Same of a wrong vector", is, e, false, x.e)
 		is, e = sun.Same(vec(1, 0, 0), x.x)
-		want(t, "Same of a wrong vector", is, e, false, x.e)
+		expect.Result(t, "Same of a wrong vector", is, e, false, x.e)
 		is, e = sun.Same(x.x, x.x)
-		want(t, "Same of wrong vectors", is, e, false, x.e)
+		expect.Result(t, "Same of wrong vectors", is, e, false, x.e)
 	}
 	is, e := sun.Same(vec(0, 0, 0), vec(0, 1<<20+1, 0))
-	want(t, "Same of two errors", is, e, false, api.ErrZero)
+	expect.Result(t, "Same of two errors", is, e, false, api.ErrZero)
 	is, e = sun.Same(vec(0, 1<<20+1, 0), vec(0, 0, 0))
-	want(t, "Same of two errors", is, e, false, api.ErrRange)
+	expect.Result(t, "Same of two errors", is, e, false, api.ErrRange)
 	r := rand.New(rand.NewSource(2))
 	for range 3000 {
 		a, b := random(r, 2), random(r, 2)
 		is, e := sun.Same(a, b)
-		want(t, "Same", is, e, cross(a, b) == api.Vector{} && dot(a, b) > 0, api.OK)
+		expect.Result(t, "Same", is, e, cross(a, b) == api.Vector{} && dot(a, b) > 0, api.OK)
 	}
 }
 
@@ -91,11 +92,11 @@ func TestLength(t *testing.T) {
 		if x.e != api.OK {
 			x.n = 0
 		}
-		want(t, "Length", n, e, x.n, x.e)
+		expect.Result(t, "Length", n, e, x.n, x.e)
 	}
 	for _, x := range wrongRays() {
 		n, e := sun.Length(x.x)
-		want(t, "Length", n, e, 0, x.e)
+		expect.Result(t, "Length", n, e, 0, x.e)
 	}
 }
 
@@ -109,10 +110,10 @@ func TestLengthOfSquares(t *testing.T) {
 		n, e := sun.Length(v)
 		wanted, is := squares[dot(v, v)]
 		if !is {
-			want(t, "Length", n, e, 0, api.ErrForm)
+			expect.Result(t, "Length", n, e, 0, api.ErrForm)
 			return
 		}
-		want(t, "Length", n, e, wanted, api.OK)
+		expect.Result(t, "Length", n, e, wanted, api.OK)
 	}
 	for x := range 13 {
 		for y := range 13 {
@@ -136,14 +137,14 @@ func TestWhole(t *testing.T) {
 		{[4]int{}, api.Vector{}, api.ErrZero},
 	} {
 		v, e := sun.Whole(x.l)
-		want(t, "Whole", v, e, x.v, x.e)
+		expect.Result(t, "Whole", v, e, x.v, x.e)
 	}
 	for _, n := range outside(32) {
 		for i := range 4 {
 			l := [4]int{}
 			l[i] = n
 			v, e := sun.Whole(l)
-			want(t, "Whole", v, e, api.Vector{}, api.ErrRange)
+			expect.Result(t, "Whole", v, e, api.Vector{}, api.ErrRange)
 		}
 	}
 }
@@ -155,9 +156,9 @@ func TestNormal(t *testing.T) {
 		{vec(315, 1218, -470), vec(-2, -1, -2), vec(-1741, 2311, -4096)}, {vec(4096, 0, 0), vec(0, 4096, 0), vec(1, 1, 0)},
 	} {
 		n, e := sun.Normal(x.a, x.b)
-		want(t, "Normal", n, e, x.n, api.OK)
+		expect.Result(t, "Normal", n, e, x.n, api.OK)
 		n, e = sun.Normal(x.b, x.a)
-		want(t, "Normal", n, e, x.n, api.OK)
+		expect.Result(t, "Normal", n, e, x.n, api.OK)
 	}
 }
 
@@ -165,9 +166,9 @@ func TestNormalWithErrors(t *testing.T) {
 	some := vec(1, 0, 0)
 	for _, x := range wrongRays() {
 		n, e := sun.Normal(x.x, vec(1, 1, 1))
-		want(t, "Normal of a wrong ray", n, e, api.Vector{}, x.e)
+		expect.Result(t, "Normal of a wrong ray", n, e, api.Vector{}, x.e)
 		n, e = sun.Normal(vec(1, 1, 1), x.x)
-		want(t, "Normal of a wrong ray", n, e, api.Vector{}, x.e)
+		expect.Result(t, "Normal of a wrong ray", n, e, api.Vector{}, x.e)
 	}
 	for _, x := range []struct {
 		a, b api.Vector
@@ -179,7 +180,7 @@ func TestNormalWithErrors(t *testing.T) {
 		{vec(41, -2624, 1208), vec(0, 0, 1), api.ErrLarge}, {vec(55, -2000, -628), vec(0, -1, 0), api.ErrLarge}, {vec(63, 4032, -64), vec(0, 1, 0), api.ErrLarge}, {vec(-159, 1018, -162), vec(2, 1, 2), api.ErrLarge},
 	} {
 		n, e := sun.Normal(x.a, x.b)
-		want(t, "Normal", n, e, api.Vector{}, x.e)
+		expect.Result(t, "Normal", n, e, api.Vector{}, x.e)
 	}
 }
 
@@ -195,13 +196,13 @@ func TestReflected(t *testing.T) {
 		{vec(0, 0, 0), vec(5000, 0, 0), api.Vector{}, api.ErrZero}, {vec(5000, 0, 0), vec(0, 0, 0), api.Vector{}, api.ErrRange},
 	} {
 		r, e := sun.Reflected(x.d, x.n)
-		want(t, "Reflected", r, e, x.r, x.e)
+		expect.Result(t, "Reflected", r, e, x.r, x.e)
 	}
 	for _, x := range wrongRays() {
 		r, e := sun.Reflected(x.x, vec(1, 0, 0))
-		want(t, "Reflected of a wrong ray", r, e, api.Vector{}, x.e)
+		expect.Result(t, "Reflected of a wrong ray", r, e, api.Vector{}, x.e)
 		r, e = sun.Reflected(vec(1, 0, 0), x.x)
-		want(t, "Reflected at a wrong ray", r, e, api.Vector{}, x.e)
+		expect.Result(t, "Reflected at a wrong ray", r, e, api.Vector{}, x.e)
 	}
 }
 
@@ -217,21 +218,21 @@ func TestCosine(t *testing.T) {
 	} {
 		for _, y := range [][2]api.Vector{{x.a, x.b}, {x.b, x.a}} {
 			sign, r, e := sun.Cosine(y[0], y[1])
-			want(t, "Cosine", r, e, x.r, api.OK)
-			want(t, "the sign of Cosine", sign, e, x.sign, api.OK)
+			expect.Result(t, "Cosine", r, e, x.r, api.OK)
+			expect.Result(t, "the sign of Cosine", sign, e, x.sign, api.OK)
 		}
 	}
 	for _, x := range wrongRays() {
 		for _, y := range [][2]api.Vector{{x.x, vec(1, 0, 0)}, {vec(1, 0, 0), x.x}} {
 			sign, r, e := sun.Cosine(y[0], y[1])
-			want(t, "Cosine of a wrong ray", r, e, api.Ratio{}, x.e)
-			want(t, "the sign of Cosine beside an error", sign, e, 0, x.e)
+			expect.Result(t, "Cosine of a wrong ray", r, e, api.Ratio{}, x.e)
+			expect.Result(t, "the sign of Cosine beside an error", sign, e, 0, x.e)
 		}
 	}
 	_, _, e := sun.Cosine(vec(0, 0, 0), vec(math.MaxInt, 0, 0))
-	wantErr(t, "Cosine of two errors", e, api.ErrZero)
+	expect.Err(t, "Cosine of two errors", e, api.ErrZero)
 	_, _, e = sun.Cosine(vec(math.MaxInt, 0, 0), vec(0, 0, 0))
-	wantErr(t, "Cosine of two errors", e, api.ErrRange)
+	expect.Err(t, "Cosine of two errors", e, api.ErrRange)
 }
 
 func TestCosineOfRandomRays(t *testing.T) {
@@ -241,7 +242,7 @@ func TestCosineOfRandomRays(t *testing.T) {
 		a, b := random(r, reach), random(r, reach)
 		sign, got, e := sun.Cosine(a, b)
 		wanted := signed(a, b)
-		wantErr(t, "Cosine", e, api.OK)
+		expect.Err(t, "Cosine", e, api.OK)
 		if sign != wanted.Sign() || frac(got.Num, got.Den).Cmp(wanted.Abs(wanted)) != 0 {
 			t.Fatalf("Cosine %v %v: %d %v", a, b, sign, got)
 		}

@@ -7,6 +7,7 @@ import (
 	"testing"
 
 	"spillage/api"
+	"spillage/expect"
 	"spillage/sun"
 )
 
@@ -23,7 +24,7 @@ func TestCheckSky(t *testing.T) {
 		sky(told(9999800, 3, 0, 0), told(10000000, 0, 0, -3)), sky(told(0, 4096, 4096, 4096), told(1, -4096, 4096, -4096)), sky(told(7, 0, 0, 5), told(8, 0, 3, 4), told(9, -4, 0, 3)),
 		sky(told(0, 1, 1, 1), told(200, 1, 1, -1), told(400, 1, 1, 1)), sky(told(0, 4, 4, 1), told(3, 5, 2, 2)),
 	} {
-		wantErr(t, "CheckSky", sun.CheckSky(s), api.OK)
+		expect.Err(t, "CheckSky", sun.CheckSky(s), api.OK)
 	}
 	for _, x := range wrongSkies() {
 		if e := sun.CheckSky(x.x); e != x.e {
@@ -48,9 +49,9 @@ func TestAtAndRisen(t *testing.T) {
 		{many(64, 200), 12600, vec(1, 0, 0), false}, {many(64, 200), 200, vec(1, 0, 0), false}, {many(64, 200), 12500, vec(1, 1, 0), false},
 	} {
 		v, e := sun.At(x.s, x.tick)
-		want(t, "At", v, e, x.v, api.OK)
+		expect.Result(t, "At", v, e, x.v, api.OK)
 		is, e := sun.Risen(x.s, x.tick)
-		want(t, "Risen", is, e, x.risen, api.OK)
+		expect.Result(t, "Risen", is, e, x.risen, api.OK)
 	}
 }
 
@@ -58,9 +59,9 @@ func TestAtAndRisenWithErrors(t *testing.T) {
 	check := func(what string, s sun.Sky, tick int, wanted api.Errno) {
 		t.Helper()
 		v, e := sun.At(s, tick)
-		want(t, "At "+what, v, e, api.Vector{}, wanted)
+		expect.Result(t, "At "+what, v, e, api.Vector{}, wanted)
 		is, e := sun.Risen(s, tick)
-		want(t, "Risen "+what, is, e, false, wanted)
+		expect.Result(t, "Risen "+what, is, e, false, wanted)
 	}
 	for _, x := range wrongSkies() {
 		check("of a wrong sky", x.x, 5, x.e)
@@ -88,10 +89,10 @@ func TestAtOfEachTick(t *testing.T) {
 				sum := way(y.Direction, x.Direction, x.Tick-tick, tick-y.Tick)
 				v, e := sun.At(s, tick)
 				if sum == (api.Vector{}) {
-					want(t, "At of no sun", v, e, api.Vector{}, api.ErrNone)
+					expect.Result(t, "At of no sun", v, e, api.Vector{}, api.ErrNone)
 					continue
 				}
-				want(t, "At", v, e, divided(sum), api.OK)
+				expect.Result(t, "At", v, e, divided(sum), api.OK)
 			}
 		}
 	}
@@ -125,11 +126,11 @@ func TestDaylight(t *testing.T) {
 		{sky(told(4, 0, 0, 1), told(8, 0, 0, -1)), []api.Span{span(4, 6)}}, {sky(told(10000000-1, 0, 0, -1), told(10000000, 0, 0, 1)), []api.Span{span(10000000, 10000001)}},
 	} {
 		l, e := sun.Daylight(x.s)
-		wantList(t, "Daylight", l, e, x.l, api.OK)
+		expect.List(t, "Daylight", l, e, x.l, api.OK)
 	}
 	for _, x := range wrongSkies() {
 		l, e := sun.Daylight(x.x)
-		wantList(t, "Daylight of a wrong sky", l, e, nil, x.e)
+		expect.List(t, "Daylight of a wrong sky", l, e, nil, x.e)
 	}
 }
 
@@ -138,7 +139,7 @@ func TestDaylightIsWhenTheSunHasRisen(t *testing.T) {
 	for range 200 {
 		s := randomSky(r, 3)
 		l, e := sun.Daylight(s)
-		wantErr(t, "Daylight", e, api.OK)
+		expect.Err(t, "Daylight", e, api.OK)
 		in := map[int]bool{}
 		for i, x := range l {
 			if x.From >= x.To || i > 0 && l[i-1].To >= x.From {
@@ -166,10 +167,10 @@ func TestHighest(t *testing.T) {
 		{sky(told(0, 6, 0, 0), told(1, 4, 2, 4), told(2, 2, 4, 4)), 1},
 	} {
 		n, e := sun.Highest(x.s)
-		want(t, "Highest", n, e, x.n, api.OK)
+		expect.Result(t, "Highest", n, e, x.n, api.OK)
 	}
 	for _, x := range wrongSkies() {
 		n, e := sun.Highest(x.x)
-		want(t, "Highest of a wrong sky", n, e, 0, x.e)
+		expect.Result(t, "Highest of a wrong sky", n, e, 0, x.e)
 	}
 }

@@ -6,6 +6,7 @@ import (
 	"testing"
 
 	"spillage/api"
+	"spillage/expect"
 	"spillage/sun"
 )
 
@@ -22,7 +23,7 @@ func TestPrintAndParse(t *testing.T) {
 		{many(64, 200), "sky many\n" + manyLines(64)},
 	} {
 		text, e := sun.Print(x.s)
-		want(t, "Print", text, e, x.text, api.OK)
+		expect.Result(t, "Print", text, e, x.text, api.OK)
 		s, index, e := sun.Parse(x.text)
 		if !sameSky(s, x.s) || index != 0 || e != api.OK {
 			t.Errorf("Parse %q: %v, line %d, error %d", x.text, s, index, e)
@@ -30,7 +31,7 @@ func TestPrintAndParse(t *testing.T) {
 	}
 	for _, x := range wrongSkies() {
 		text, e := sun.Print(x.x)
-		want(t, "Print of a wrong sky", text, e, "", x.e)
+		expect.Result(t, "Print of a wrong sky", text, e, "", x.e)
 	}
 }
 

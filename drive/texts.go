@@ -1,0 +1,56 @@
+package drive
+
+import (
+	"strings"
+
+	"spillage/api"
+	"spillage/common"
+)
+
+// Print returns the text of a model.
+func Print(m []Band) (string, api.Errno) {
+	if e := CheckModel(m); e != api.OK {
+		return "", e
+	}
+	lines := common.Mapped(m, func(b Band) string {
+		return common.Line("band", b.Gain, b.Offset.Low, b.Offset.High)
+	})
+	return strings.Join(lines, ""), api.OK
+}
+
+// Parse returns the model of a text, and the index of the first line that is wrong.
+func Parse(s string) ([]Band, int, api.Errno) {
+	if len(s) > api.MaxText {
+		return nil, 0, api.ErrLong
+	}
+	var m []Band
+	lines := common.Lines(s)
+	for i, line := range lines {
+		band, ok := readBand(line)
+		if !ok {
+			return nil, i, api.ErrSyntax
+		}
+		m = append(m, band)
+	}
+	if e := CheckModel(m); e != api.OK {
+		return nil, len(lines), e
+	}
+	return m, 0, api.OK
+}
+
+// readBand returns the band of a line, or false if it does not have its form.
+func readBand(line string) (Band, bool) {
+	left, ended := common.WordsOf(line)
+	if !ended {
+		return Band{}, false
+	}
+	take := left.Next
+	if word, _ := take(); word != "band" {
+		return Band{}, false
+	}
+	l, ok := common.Integers(take)
+	if !ok || len(l) != 3 {
+		return Band{}, false
+	}
+	return Band{Gain: l[0], Offset: api.Interval{Low: l[1], High: l[2]}}, true
+}

@@ -1,0 +1,40 @@
+// Package expect has what the tests of the layers compare results with. No
+// layer calls it.
+package expect
+
+import (
+	"slices"
+
+	"spillage/api"
+)
+
+// Test is a test that is told what is wrong, as *testing.T is.
+type Test interface {
+	Helper()
+	Errorf(format string, values ...any)
+}
+
+// Err reports an error that is not the expected one.
+func Err(t Test, what string, got, wanted api.Errno) {
+	t.Helper()
+	if got != wanted {
+		t.Errorf("%s: error %d, want %d", what, got, wanted)
+	}
+}
+
+// Result reports a result or an error that is not the expected one.
+func Result[T comparable](t Test, what string, got T, e api.Errno, wanted T, wantedErr api.Errno) {
+	t.Helper()
+	if got != wanted || e != wantedErr {
+		t.Errorf("%s: got %v, error %d, want %v, error %d", what, got, e, wanted, wantedErr)
+	}
+}
+
+// List reports a list or an error that is not the expected one; nil and empty
+// lists are the same.
+func List[T comparable](t Test, what string, got []T, e api.Errno, wanted []T, wantedErr api.Errno) {
+	t.Helper()
+	if !slices.Equal(got, wanted) || e != wantedErr {
+		t.Errorf("%s: got %v, error %d, want %v, error %d", what, got, e, wanted, wantedErr)
+	}
+}
