@@ -68,6 +68,17 @@ func Divisor(a, b int) int {
 	return max(a, -a)
 }
 
+// Sign returns 1, 0 or -1, as a number is above, at or below 0.
+func Sign(n int) int {
+	return min(max(n, -1), 1)
+}
+
+// Quotient returns a / b in lowest terms, for b other than 0.
+func Quotient(a, b int) api.Ratio {
+	divisor := Divisor(a, b) * Sign(b)
+	return api.Ratio{Num: a / divisor, Den: b / divisor}
+}
+
 // Extended adds an index to ascending spans; the last span grows if it ends
 // there.
 func Extended(l []api.Span, at int) []api.Span {

@@ -1,6 +1,7 @@
 package common_test
 
 import (
+	"math"
 	"slices"
 	"testing"
 
@@ -58,6 +59,22 @@ func TestDivisor(t *testing.T) {
 	for _, x := range [][3]int{{12, 18, 6}, {18, 12, 6}, {4, -6, 2}, {-4, 6, 2}, {-4, -6, 2}, {0, 5, 5}, {5, 0, 5}, {0, -5, 5}, {-5, 0, 5}, {0, 0, 0}, {7, 9, 1}, {-1, 1 << 40, 1}} {
 		if n := common.Divisor(x[0], x[1]); n != x[2] {
 			t.Errorf("Divisor %d %d: %d, want %d", x[0], x[1], n, x[2])
+		}
+	}
+}
+
+func TestSign(t *testing.T) {
+	for _, x := range [][2]int{{0, 0}, {1, 1}, {-1, -1}, {7, 1}, {-7, -1}, {math.MaxInt, 1}, {math.MinInt, -1}} {
+		if n := common.Sign(x[0]); n != x[1] {
+			t.Errorf("Sign %d: %d, want %d", x[0], n, x[1])
+		}
+	}
+}
+
+func TestQuotient(t *testing.T) {
+	for _, x := range [][4]int{{6, 4, 3, 2}, {-6, 4, -3, 2}, {6, -4, -3, 2}, {-6, -4, 3, 2}, {0, 5, 0, 1}, {0, -5, 0, 1}, {7, 7, 1, 1}, {8, 2, 4, 1}, {1 << 60, 1 << 59, 2, 1}, {999, 1000, 999, 1000}} {
+		if q := common.Quotient(x[0], x[1]); q != (api.Ratio{Num: x[2], Den: x[3]}) {
+			t.Errorf("Quotient %d %d: %v, want %d / %d", x[0], x[1], q, x[2], x[3])
 		}
 	}
 }

@@ -3,6 +3,8 @@ package common
 import (
 	"strconv"
 	"strings"
+
+	"spillage/api"
 )
 
 const maxDigits = 9
@@ -21,20 +23,43 @@ func Lines(s string) []string {
 	return lines
 }
 
+// Parsed returns the list of a text, of which each line tells an element, or the
+// index of the first line that is wrong; the number of lines is the index of an
+// error of the list.
+func Parsed[T any](s string, read func(line string) (T, bool), check func([]T) api.Errno) ([]T, int, api.Errno) {
+	if len(s) > api.MaxText {
+		return nil, 0, api.ErrLong
+	}
+	lines := Lines(s)
+	var l []T
+	for i, line := range lines {
+		x, ok := read(line)
+		if !ok {
+			return nil, i, api.ErrSyntax
+		}
+		l = append(l, x)
+	}
+	if e := check(l); e != api.OK {
+		return nil, len(lines), e
+	}
+	return l, 0, api.OK
+}
+
 // Words are what is left of a line.
 type Words struct {
 	rest string
 	more bool
 }
 
-// WordsOf returns the words of a line, or false if it has no line feed at its
-// end.
-func WordsOf(line string) (Words, bool) {
+// WordsOf returns the words of a line behind its first one, or false if the line
+// has no line feed at its end, or another first word.
+func WordsOf(line, first string) (Words, bool) {
 	body, ended := strings.CutSuffix(line, "\n")
-	if !ended {
+	left := Words{rest: body, more: true}
+	if word, _ := left.Next(); !ended || word != first {
 		return Words{}, false
 	}
-	return Words{rest: body, more: true}, true
+	return left, true
 }
 
 // Next takes the word before the next space; it may be empty.

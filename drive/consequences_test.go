@@ -235,11 +235,6 @@ func TestModelsComeBack(t *testing.T) {
 		}
 		text, e := drive.Print(m)
 		expect.Err(t, "Print", e, api.OK)
-		back, index, e := drive.Parse(text)
-		if !slices.Equal(back, m) || index != 0 || e != api.OK {
-			t.Fatalf("%v comes back as %v, line %d, error %d", m, back, index, e)
-		}
-		again, e := drive.Print(back)
-		expect.Result(t, "Print", again, e, text, api.OK)
+		expect.Parsed(t, drive.Parse, text, m, 0, api.OK)
 	}
 }

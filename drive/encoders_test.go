@@ -40,13 +40,13 @@ func TestVoted(t *testing.T) {
 	}{{[3]int{10, 50, 12}, 1}, {[3]int{10, 13, 16}, 2}, {[3]int{1, 2, 3}, 0}, {[3]int{3, 1, 2}, 0}, {[3]int{-1000, 0, 1000}, 999}} {
 		wantVote(t, x.l, x.limit, 0, 0, api.ErrNone)
 	}
-	for _, n := range outside(-1000, 1000) {
+	for _, n := range expect.Outside(-1000, 1000) {
 		for _, l := range [][3]int{{n, 0, 0}, {0, n, 0}, {0, 0, n}, {n, n, n}, {0, 500, n}} {
 			wantVote(t, l, 5, 0, 0, api.ErrRange)
 			wantVote(t, l, -1, 0, 0, api.ErrRange)
 		}
 	}
-	for _, n := range append(outside(0, 1000), -1) {
+	for _, n := range append(expect.Outside(0, 1000), -1) {
 		wantVote(t, [3]int{10, 50, 12}, n, 0, 0, api.ErrRange)
 		wantVote(t, [3]int{10, 10, 10}, n, 0, 0, api.ErrRange)
 	}
@@ -115,7 +115,7 @@ func TestOverloadsWithErrors(t *testing.T) {
 	}
 	spans, e := drive.Overloads(make([]float32, 4097), 0, 1)
 	expect.List(t, "Overloads of too many currents", spans, e, nil, api.ErrMany)
-	for _, n := range append(outside(1, 4096), -1) {
+	for _, n := range append(expect.Outside(1, 4096), -1) {
 		spans, e = drive.Overloads([]float32{1, 5}, 4, n)
 		expect.List(t, "Overloads of a wrong number", spans, e, nil, api.ErrRange)
 		spans, e = drive.Overloads(nil, 4, n)

@@ -7,6 +7,7 @@ import (
 
 	"spillage/api"
 	"spillage/drive"
+	"spillage/expect"
 )
 
 func at(low, high int) api.Interval { return api.Interval{Low: low, High: high} }
@@ -46,15 +47,10 @@ type wrong[T any] struct {
 	e api.Errno
 }
 
-// outside are the numbers beside a range, and those that are far away.
-func outside(low, high int) []int {
-	return []int{low - 1, high + 1, -1 << 33, 1 << 33, math.MaxInt, math.MinInt, math.MinInt + 1}
-}
-
 // wrongIntervals are intervals with an error, within a range.
 func wrongIntervals(low, high int) []wrong[api.Interval] {
 	l := []wrong[api.Interval]{{at(low+1, low), api.ErrOrder}, {at(high, high-1), api.ErrOrder}, {at(high, low), api.ErrOrder}, {at(1, -1), api.ErrOrder}}
-	for _, n := range outside(low, high) {
+	for _, n := range expect.Outside(low, high) {
 		l = append(l, wrong[api.Interval]{at(n, high), api.ErrRange}, wrong[api.Interval]{at(low, n), api.ErrRange}, wrong[api.Interval]{at(high, n), api.ErrRange}, wrong[api.Interval]{at(n, low), api.ErrRange}, wrong[api.Interval]{at(n, n), api.ErrRange})
 	}
 	return l
@@ -65,7 +61,7 @@ func wrongAxes() []wrong[drive.Axis] {
 	for _, x := range wrongIntervals(-1000, 1000) {
 		l = append(l, wrong[drive.Axis]{axis(x.x.Low, x.x.High, 0), x.e}, wrong[drive.Axis]{axis(x.x.Low, x.x.High, -1), x.e}, wrong[drive.Axis]{axis(x.x.Low, x.x.High, 51), x.e})
 	}
-	for _, n := range outside(0, 50) {
+	for _, n := range expect.Outside(0, 50) {
 		l = append(l, wrong[drive.Axis]{axis(-20, 20, n), api.ErrRange}, wrong[drive.Axis]{axis(1, 0, n), api.ErrOrder})
 	}
 	return l
@@ -81,7 +77,7 @@ func wrongStates() []wrong[seat] {
 	for _, x := range wrongAxes() {
 		l = append(l, wrong[seat]{seat{x.x, state(0, 0, 0)}, x.e}, wrong[seat]{seat{x.x, state(2000, 1, 0)}, x.e})
 	}
-	for _, n := range outside(-20, 20) {
+	for _, n := range expect.Outside(-20, 20) {
 		l = append(l, wrong[seat]{seat{short(), state(n, n, n)}, api.ErrRange}, wrong[seat]{seat{short(), state(n, 1, 0)}, api.ErrRange})
 	}
 	for _, x := range []wrong[drive.State]{
@@ -98,7 +94,7 @@ func wrongSpots() []wrong[drive.Spot] {
 	for _, x := range wrongIntervals(-1000000, 1000000) {
 		l = append(l, wrong[drive.Spot]{drive.Spot{Count: 1, Seen: x.x}, x.e})
 	}
-	for _, n := range outside(-1000, 1000) {
+	for _, n := range expect.Outside(-1000, 1000) {
 		l = append(l, wrong[drive.Spot]{spot(n, 0, 1), api.ErrRange}, wrong[drive.Spot]{spot(n, 1, 0), api.ErrRange})
 	}
 	return l
@@ -124,7 +120,7 @@ func wrongModels() []wrong[[]drive.Band] {
 	for _, x := range wrongIntervals(-2000000, 2000000) {
 		l = append(l, wrong[[]drive.Band]{model(drive.Band{Gain: 1, Offset: x.x}), x.e}, wrong[[]drive.Band]{model(band(1, 0, 0), drive.Band{Gain: 2, Offset: x.x}, band(2000, 0, 0)), x.e})
 	}
-	for _, n := range outside(-1000, 1000) {
+	for _, n := range expect.Outside(-1000, 1000) {
 		l = append(l, wrong[[]drive.Band]{model(band(n, 0, 0)), api.ErrRange}, wrong[[]drive.Band]{model(band(n, 1, 0)), api.ErrRange}, wrong[[]drive.Band]{model(band(1, 0, 0), band(n, 0, 0)), api.ErrRange})
 	}
 	return l

@@ -225,11 +225,11 @@ func TestHas(t *testing.T) {
 	expect.Result(t, "Has nothing", has, e, false, api.OK)
 	has, e = drive.Has(model(band(3, 0, 2)), 0, 0)
 	expect.Result(t, "Has another gain", has, e, false, api.OK)
-	for _, n := range outside(-1000, 1000) {
+	for _, n := range expect.Outside(-1000, 1000) {
 		has, e := drive.Has(two, n, 100)
 		expect.Result(t, "Has a wrong gain", has, e, false, api.ErrRange)
 	}
-	for _, n := range outside(-2000000, 2000000) {
+	for _, n := range expect.Outside(-2000000, 2000000) {
 		has, e := drive.Has(two, 5, n)
 		expect.Result(t, "Has a wrong offset", has, e, false, api.ErrRange)
 		has, e = drive.Has(two, math.MaxInt, n)

@@ -163,7 +163,7 @@ func TestTrack(t *testing.T) {
 
 func TestTrackWithErrors(t *testing.T) {
 	none := [2]int{0, 0}
-	for _, n := range outside(-1000, 1000) {
+	for _, n := range expect.Outside(-1000, 1000) {
 		for _, x := range [][2]int{{n, 0}, {0, n}, {n, n}} {
 			track, e := drive.Track(x, none, [2]int{1, 1})
 			expect.List(t, "Track from a wrong count", track, e, nil, api.ErrRange)
@@ -173,7 +173,7 @@ func TestTrackWithErrors(t *testing.T) {
 			expect.List(t, "Track that stays at a wrong count", track, e, nil, api.ErrRange)
 		}
 	}
-	for _, n := range append(outside(1, 100), -1) {
+	for _, n := range append(expect.Outside(1, 100), -1) {
 		for _, x := range [][2]int{{n, 1}, {1, n}, {n, n}} {
 			track, e := drive.Track(none, [2]int{1, 1}, x)
 			expect.List(t, "Track with a wrong rate", track, e, nil, api.ErrRange)

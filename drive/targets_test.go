@@ -103,7 +103,7 @@ func TestCheckInverted(t *testing.T) {
 		places, e := drive.CheckInverted(short(), known, five(), x.target, x.motor)
 		expect.Result(t, "CheckInverted of a miss", places, e, api.Interval{}, api.ErrProof)
 	}
-	for _, n := range outside(-20, 20) {
+	for _, n := range expect.Outside(-20, 20) {
 		places, e := drive.CheckInverted(short(), known, five(), at(-far, far), n)
 		expect.Result(t, "CheckInverted of a wrong count", places, e, api.Interval{}, api.ErrRange)
 	}

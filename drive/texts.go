@@ -20,35 +20,16 @@ func Print(m []Band) (string, api.Errno) {
 
 // Parse returns the model of a text, and the index of the first line that is wrong.
 func Parse(s string) ([]Band, int, api.Errno) {
-	if len(s) > api.MaxText {
-		return nil, 0, api.ErrLong
-	}
-	var m []Band
-	lines := common.Lines(s)
-	for i, line := range lines {
-		band, ok := readBand(line)
-		if !ok {
-			return nil, i, api.ErrSyntax
-		}
-		m = append(m, band)
-	}
-	if e := CheckModel(m); e != api.OK {
-		return nil, len(lines), e
-	}
-	return m, 0, api.OK
+	return common.Parsed(s, readBand, CheckModel)
 }
 
 // readBand returns the band of a line, or false if it does not have its form.
 func readBand(line string) (Band, bool) {
-	left, ended := common.WordsOf(line)
-	if !ended {
+	left, ok := common.WordsOf(line, "band")
+	if !ok {
 		return Band{}, false
 	}
-	take := left.Next
-	if word, _ := take(); word != "band" {
-		return Band{}, false
-	}
-	l, ok := common.Integers(take)
+	l, ok := common.Integers(left.Next)
 	if !ok || len(l) != 3 {
 		return Band{}, false
 	}

@@ -26,10 +26,7 @@ func TestPrintAndParse(t *testing.T) {
 	} {
 		text, e := drive.Print(x.m)
 		expect.Result(t, "Print", text, e, x.text, api.OK)
-		m, index, e := drive.Parse(x.text)
-		if !slices.Equal(m, x.m) || index != 0 || e != api.OK {
-			t.Errorf("Parse %q: %v, line %d, error %d", x.text, m, index, e)
-		}
+		expect.Parsed(t, drive.Parse, x.text, x.m, 0, api.OK)
 	}
 	for _, x := range wrongModels() {
 		text, e := drive.Print(x.x)
@@ -51,10 +48,7 @@ func number(n int) string {
 // wantNoText checks the error of a text and the index of its line.
 func wantNoText(t *testing.T, s string, index int, wanted api.Errno) {
 	t.Helper()
-	m, i, e := drive.Parse(s)
-	if e != wanted || i != index || len(m) != 0 {
-		t.Errorf("Parse %.60q: %v, line %d, error %d, want line %d, error %d", s, m, i, e, index, wanted)
-	}
+	expect.Parsed(t, drive.Parse, s, nil, index, wanted)
 }
 
 func TestParseOfWrongLines(t *testing.T) {

@@ -3,6 +3,7 @@
 package expect
 
 import (
+	"math"
 	"slices"
 
 	"spillage/api"
@@ -37,4 +38,19 @@ func List[T comparable](t Test, what string, got []T, e api.Errno, wanted []T, w
 	if !slices.Equal(got, wanted) || e != wantedErr {
 		t.Errorf("%s: got %v, error %d, want %v, error %d", what, got, e, wanted, wantedErr)
 	}
+}
+
+// Parsed reports a list, the index of a line or an error that is not the expected
+// one of a text.
+func Parsed[T comparable](t Test, parse func(string) ([]T, int, api.Errno), s string, wanted []T, index int, wantedErr api.Errno) {
+	t.Helper()
+	got, i, e := parse(s)
+	if !slices.Equal(got, wanted) || i != index || e != wantedErr {
+		t.Errorf("Parse %.60q: got %v, line %d, error %d, want %v, line %d, error %d", s, got, i, e, wanted, index, wantedErr)
+	}
+}
+
+// Outside returns the numbers beside a range, and those that are far away.
+func Outside(low, high int) []int {
+	return []int{low - 1, high + 1, -1 << 40, 1 << 40, math.MaxInt, math.MinInt, math.MinInt + 1}
 }

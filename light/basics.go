@@ -96,20 +96,10 @@ func sample(n int) float32 {
 
 // CheckVector returns the first error of a vector, or OK.
 func CheckVector(v api.Vector) api.Errno {
-	return common.First(
-		common.CheckRange(v.X, -api.MaxReach, api.MaxReach),
-		common.CheckRange(v.Y, -api.MaxReach, api.MaxReach),
-		common.CheckRange(v.Z, -api.MaxReach, api.MaxReach),
-	)
+	return common.CheckVector(v, api.MaxReach)
 }
 
 // CheckDirection returns the first error of a direction, or OK.
 func CheckDirection(v api.Vector) api.Errno {
-	if e := CheckVector(v); e != api.OK {
-		return e
-	}
-	if v == (api.Vector{}) {
-		return api.ErrZero
-	}
-	return api.OK
+	return common.CheckDirection(v, api.MaxReach)
 }

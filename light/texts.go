@@ -63,15 +63,11 @@ func Parse(s string) (Map, int, api.Errno) {
 // readLine returns the integers of a line of a kind, or false if it does not
 // have its form.
 func readLine(line, kind string, form lineForm) ([]int, bool) {
-	left, ended := common.WordsOf(line)
-	if !ended {
+	left, ok := common.WordsOf(line, kind)
+	if !ok {
 		return nil, false
 	}
-	take := left.Next
-	if word, _ := take(); word != kind {
-		return nil, false
-	}
-	numbers, ok := common.Integers(take)
+	numbers, ok := common.Integers(left.Next)
 	return numbers, ok && form.fits(len(numbers))
 }
 

@@ -44,19 +44,24 @@ func stepsOf(l []Step) []placed {
 }
 
 // stepOf returns the step, or no step, from which a direction has its lift.
-func stepOf(steps []placed, p parts) placed {
+func stepOf(steps []placed, p common.Parts) placed {
 	last := steps[0]
 	for _, x := range steps[1:] {
-		if p.flat() > 0 && x.From*p.flat() <= fineness*p[up] {
+		if flat(p) > 0 && x.From*flat(p) <= fineness*p[common.Up] {
 			last = x
 		}
 	}
 	return last
 }
 
+// flat returns the sum of the absolute values of X and Y.
+func flat(p common.Parts) int {
+	return max(p[common.East], -p[common.East]) + max(p[common.North], -p[common.North])
+}
+
 // lifted returns a direction with a lift, not reduced.
-func (p parts) lifted(lift int) parts {
-	return p.times(fineness).plus(axes[up].times(lift * p.flat()))
+func lifted(p common.Parts, lift int) common.Parts {
+	return p.Times(fineness).Plus(axes[common.Up].Times(lift * flat(p)))
 }
 
 // Bent returns a ray, bent by air.
@@ -64,8 +69,8 @@ func Bent(l []Step, v api.Vector) (api.Vector, api.Errno) {
 	if e := common.First(CheckAir(l), CheckRay(v)); e != api.OK {
 		return api.Vector{}, e
 	}
-	p := partsOf(v)
-	return p.lifted(stepOf(stepsOf(l), p).Lift).reduced().vector(), api.OK
+	p := common.PartsOf(v)
+	return lifted(p, stepOf(stepsOf(l), p).Lift).Reduced().Vector(), api.OK
 }
 
 // Unbent returns all rays that are bent to a ray. The lift of each step leads
@@ -74,13 +79,13 @@ func Unbent(l []Step, v api.Vector) ([]api.Vector, api.Errno) {
 	if e := common.First(CheckAir(l), CheckRay(v)); e != api.OK {
 		return nil, e
 	}
-	var found []parts
+	var found []common.Parts
 	steps := stepsOf(l)
 	for _, x := range steps {
-		p := partsOf(v).lifted(-x.Lift)
+		p := lifted(common.PartsOf(v), -x.Lift)
 		if stepOf(steps, p) == x {
 			found = append(found, p)
 		}
 	}
-	return common.Mapped(common.Mapped(found, parts.reduced), parts.vector), api.OK
+	return common.Mapped(common.Mapped(found, common.Parts.Reduced), common.Parts.Vector), api.OK
 }

@@ -20,33 +20,29 @@ func Inside(c Cone, v api.Vector) (bool, api.Errno) {
 	if e := common.First(CheckCone(c), CheckRay(v)); e != api.OK {
 		return false, e
 	}
-	return contains(c, partsOf(v)), api.OK
+	return contains(c, common.PartsOf(v)), api.OK
 }
 
-func contains(c Cone, p parts) bool {
-	axis := partsOf(c.Axis)
-	dot := axis.dot(p)
-	return dot > 0 && dot*dot*c.Den >= c.Num*axis.dot(axis)*p.dot(p)
+func contains(c Cone, p common.Parts) bool {
+	axis := common.PartsOf(c.Axis)
+	dot := axis.Dot(p)
+	return dot > 0 && dot*dot*c.Den >= c.Num*axis.Dot(axis)*p.Dot(p)
 }
 
 // Meets reports whether the way between two turns meets a cone.
 func Meets(c Cone, a, b api.Vector) (bool, api.Errno) {
 	e := common.First(
 		CheckCone(c), CheckRay(a), CheckRay(b),
-		checkTurn(c.Axis), checkTurn(a), checkTurn(b),
+		common.CheckVector(c.Axis, MaxTurn), common.CheckVector(a, MaxTurn), common.CheckVector(b, MaxTurn),
 	)
 	if e != api.OK {
 		return false, e
 	}
-	p, q := partsOf(a), partsOf(b)
-	if p.isOpposite(q) {
+	p, q := common.PartsOf(a), common.PartsOf(b)
+	if isOpposite(p, q) {
 		return false, api.ErrForm
 	}
 	return contains(c, p) || contains(c, q) || passes(c, p, q), api.OK
-}
-
-func checkTurn(v api.Vector) api.Errno {
-	return common.When(!partsOf(v).isWithin(MaxTurn), api.ErrRange)
 }
 
 // passes reports whether the projection of the axis on the plane of two turns
@@ -54,17 +50,17 @@ func checkTurn(v api.Vector) api.Errno {
 // and y q, divided by the determinant; its squared cosine is its dot product
 // with the axis, divided by the squared length of the axis. (Of two turns of the
 // same direction x and y are 0.)
-func passes(c Cone, p, q parts) bool {
-	axis := partsOf(c.Axis)
-	pp, pq, qq := p.dot(p), p.dot(q), q.dot(q)
-	x := axis.dot(p)*qq - axis.dot(q)*pq
-	y := axis.dot(q)*pp - axis.dot(p)*pq
+func passes(c Cone, p, q common.Parts) bool {
+	axis := common.PartsOf(c.Axis)
+	pp, pq, qq := p.Dot(p), p.Dot(q), q.Dot(q)
+	x := axis.Dot(p)*qq - axis.Dot(q)*pq
+	y := axis.Dot(q)*pp - axis.Dot(p)*pq
 	if x <= 0 || y <= 0 {
 		return false
 	}
 	determinant := pp*qq - pq*pq
-	dot := x*axis.dot(p) + y*axis.dot(q)
-	return dot*c.Den >= c.Num*determinant*axis.dot(axis)
+	dot := x*axis.Dot(p) + y*axis.Dot(q)
+	return dot*c.Den >= c.Num*determinant*axis.Dot(axis)
 }
 
 // Frame returns the frame of a ray.
@@ -72,12 +68,12 @@ func Frame(n api.Vector) ([2]api.Vector, api.Errno) {
 	if e := CheckRay(n); e != api.OK {
 		return [2]api.Vector{}, e
 	}
-	p, first := partsOf(n), axes[east]
+	p, first := common.PartsOf(n), axes[common.East]
 	if n != (api.Vector{Z: n.Z}) {
-		first = axes[up].cross(p).reduced()
+		first = axes[common.Up].Cross(p).Reduced()
 	}
-	second := p.cross(first).reduced()
-	return [2]api.Vector{first.vector(), second.vector()}, api.OK
+	second := p.Cross(first).Reduced()
+	return [2]api.Vector{first.Vector(), second.Vector()}, api.OK
 }
 
 // Hit returns the number at which a ray meets a plane.
@@ -86,11 +82,11 @@ func Hit(from, d, place, normal api.Vector) (api.Ratio, api.Errno) {
 	if e != api.OK {
 		return api.Ratio{}, e
 	}
-	n := partsOf(normal)
-	speed := partsOf(d).dot(n)
+	n := common.PartsOf(normal)
+	speed := common.PartsOf(d).Dot(n)
 	if speed == 0 {
 		return api.Ratio{}, api.ErrNone
 	}
-	difference := partsOf(place).plus(partsOf(from).times(-1))
-	return quotient(difference.dot(n), speed), api.OK
+	difference := common.PartsOf(place).Plus(common.PartsOf(from).Times(-1))
+	return common.Quotient(difference.Dot(n), speed), api.OK
 }

@@ -8,6 +8,7 @@ import (
 	"testing"
 
 	"spillage/api"
+	"spillage/expect"
 	"spillage/sun"
 )
 
@@ -120,7 +121,7 @@ type wrong[T any] struct {
 
 // outside are the numbers beside a limit, and those that are far away.
 func outside(limit int) []int {
-	return []int{limit + 1, -limit - 1, 1 << 32, -1 << 32, math.MaxInt, math.MinInt, math.MinInt + 1}
+	return expect.Outside(-limit, limit)
 }
 
 // wrongVectors are vectors with a part above a limit, at each place.

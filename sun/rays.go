@@ -8,12 +8,12 @@ import (
 	"spillage/light"
 )
 
+// axes are the directions of the parts.
+var axes = [3]common.Parts{{1, 0, 0}, {0, 1, 0}, {0, 0, 1}}
+
 // CheckRay returns the first error of a ray, or OK.
 func CheckRay(v api.Vector) api.Errno {
-	return common.First(
-		light.CheckDirection(v),
-		common.When(!partsOf(v).isWithin(MaxRay), api.ErrRange),
-	)
+	return common.First(light.CheckDirection(v), common.CheckVector(v, MaxRay))
 }
 
 // Reduced returns a reduced vector.
@@ -21,7 +21,7 @@ func Reduced(v api.Vector) (api.Vector, api.Errno) {
 	if e := light.CheckDirection(v); e != api.OK {
 		return api.Vector{}, e
 	}
-	return partsOf(v).reduced().vector(), api.OK
+	return common.PartsOf(v).Reduced().Vector(), api.OK
 }
 
 // Same reports whether two vectors have the same direction.
@@ -29,7 +29,7 @@ func Same(a, b api.Vector) (bool, api.Errno) {
 	if e := common.First(light.CheckDirection(a), light.CheckDirection(b)); e != api.OK {
 		return false, e
 	}
-	return partsOf(a).reduced() == partsOf(b).reduced(), api.OK
+	return common.PartsOf(a).Reduced() == common.PartsOf(b).Reduced(), api.OK
 }
 
 // Length returns the length of a whole ray.
@@ -37,7 +37,7 @@ func Length(v api.Vector) (int, api.Errno) {
 	if e := CheckRay(v); e != api.OK {
 		return 0, e
 	}
-	length, whole := lengthOf(partsOf(v))
+	length, whole := lengthOf(common.PartsOf(v))
 	if !whole {
 		return 0, api.ErrForm
 	}
@@ -46,8 +46,8 @@ func Length(v api.Vector) (int, api.Errno) {
 
 // lengthOf returns the length of a ray, or false if it is not whole. No ray is
 // as long as the greatest part taken twice.
-func lengthOf(p parts) (int, bool) {
-	square := p.dot(p)
+func lengthOf(p common.Parts) (int, bool) {
+	square := p.Dot(p)
 	length := sort.Search(2*MaxRay, func(n int) bool { return n*n >= square })
 	return length, length*length == square
 }
@@ -70,25 +70,30 @@ func Normal(a, b api.Vector) (api.Vector, api.Errno) {
 	if e := common.First(CheckRay(a), CheckRay(b)); e != api.OK {
 		return api.Vector{}, e
 	}
-	p, q := partsOf(a), partsOf(b)
+	p, q := common.PartsOf(a), common.PartsOf(b)
 	long, isWhole := lengthOf(p)
 	wide, isWholeToo := lengthOf(q)
 	if !isWhole || !isWholeToo {
 		return api.Vector{}, api.ErrForm
 	}
-	if p.isOpposite(q) {
+	if isOpposite(p, q) {
 		return api.Vector{}, api.ErrZero
 	}
-	return rayOf(p.times(wide).plus(q.times(long)))
+	return rayOf(p.Times(wide).Plus(q.Times(long)))
+}
+
+// isOpposite reports whether two directions are opposite.
+func isOpposite(p, q common.Parts) bool {
+	return p.Reduced() == q.Reduced().Times(-1)
 }
 
 // rayOf returns the ray with some parts, reduced, or ErrLarge if it is none.
-func rayOf(p parts) (api.Vector, api.Errno) {
-	p = p.reduced()
-	if !p.isWithin(MaxRay) {
+func rayOf(p common.Parts) (api.Vector, api.Errno) {
+	v := p.Reduced().Vector()
+	if common.CheckVector(v, MaxRay) != api.OK {
 		return api.Vector{}, api.ErrLarge
 	}
-	return p.vector(), api.OK
+	return v, api.OK
 }
 
 // Reflected returns a ray, reflected at a normal.
@@ -96,8 +101,8 @@ func Reflected(d, n api.Vector) (api.Vector, api.Errno) {
 	if e := common.First(CheckRay(d), CheckRay(n)); e != api.OK {
 		return api.Vector{}, e
 	}
-	p, q := partsOf(d), partsOf(n)
-	return rayOf(q.times(2 * p.dot(q)).plus(p.times(-q.dot(q))))
+	p, q := common.PartsOf(d), common.PartsOf(n)
+	return rayOf(q.Times(2 * p.Dot(q)).Plus(p.Times(-q.Dot(q))))
 }
 
 // Cosine returns the sign and the square of the cosine of two rays.
@@ -105,17 +110,7 @@ func Cosine(a, b api.Vector) (int, api.Ratio, api.Errno) {
 	if e := common.First(CheckRay(a), CheckRay(b)); e != api.OK {
 		return 0, api.Ratio{}, e
 	}
-	p, q := partsOf(a), partsOf(b)
-	dot := p.dot(q)
-	return sign(dot), quotient(dot*dot, p.dot(p)*q.dot(q)), api.OK
-}
-
-func sign(n int) int {
-	return min(max(n, -1), 1)
-}
-
-// quotient returns a / b in lowest terms, for b other than 0.
-func quotient(a, b int) api.Ratio {
-	divisor := common.Divisor(a, b) * sign(b)
-	return api.Ratio{Num: a / divisor, Den: b / divisor}
+	p, q := common.PartsOf(a), common.PartsOf(b)
+	dot := p.Dot(q)
+	return common.Sign(dot), common.Quotient(dot*dot, p.Dot(p)*q.Dot(q)), api.OK
 }

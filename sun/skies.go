@@ -29,14 +29,14 @@ func CheckSky(s Sky) api.Errno {
 // checkSun returns the first error of the told sun with an index, or OK, if
 // those before it have none.
 func checkSun(l []Sun, i int) api.Errno {
-	tick, direction := l[i].Tick, partsOf(l[i].Direction)
-	told := partsOf(l[0].Direction)
+	tick, direction := l[i].Tick, common.PartsOf(l[i].Direction)
+	told := common.PartsOf(l[0].Direction)
 	return common.First(
 		common.CheckRange(tick, 0, api.MaxTick),
 		common.When(i > 0 && tick <= l[i-1].Tick, api.ErrOrder),
 		common.When(i > 0 && tick-l[i-1].Tick > MaxGap, api.ErrSpan),
 		CheckRay(l[i].Direction),
-		common.When(direction.dot(direction) != told.dot(told), api.ErrShape),
+		common.When(direction.Dot(direction) != told.Dot(told), api.ErrShape),
 	)
 }
 
@@ -49,18 +49,18 @@ func At(s Sky, tick int) (api.Vector, api.Errno) {
 		return api.Vector{}, api.ErrSpan
 	}
 	p := sunAt(s.Suns, tick)
-	if p == (parts{}) {
+	if p == (common.Parts{}) {
 		return api.Vector{}, api.ErrNone
 	}
-	return p.reduced().vector(), api.OK
+	return p.Reduced().Vector(), api.OK
 }
 
 // sunAt returns the sun at a tick of a sky, not reduced; all of its parts are 0
 // if there is none. At the tick of a told sun that sun alone is in the sum.
-func sunAt(l []Sun, tick int) parts {
+func sunAt(l []Sun, tick int) common.Parts {
 	from, to := around(l, tick)
-	a, b := partsOf(from.Direction), partsOf(to.Direction)
-	return a.times(to.Tick - tick).plus(b.times(tick - from.Tick))
+	a, b := common.PartsOf(from.Direction), common.PartsOf(to.Direction)
+	return a.Times(to.Tick - tick).Plus(b.Times(tick - from.Tick))
 }
 
 // around returns two successive told suns such that a tick is not before the
@@ -79,8 +79,8 @@ search:
 
 // ticks visits the ticks of a sky, each one with the sun at it, as sunAt tells
 // it.
-func ticks(s Sky) iter.Seq2[int, parts] {
-	return func(yield func(int, parts) bool) {
+func ticks(s Sky) iter.Seq2[int, common.Parts] {
+	return func(yield func(int, common.Parts) bool) {
 		for tick := s.Suns[0].Tick; tick <= s.Suns[len(s.Suns)-1].Tick; tick++ {
 			if !yield(tick, sunAt(s.Suns, tick)) {
 				return
@@ -102,7 +102,7 @@ func Daylight(s Sky) ([]api.Span, api.Errno) {
 	}
 	var spans []api.Span
 	for tick, p := range ticks(s) {
-		if p[up] > 0 {
+		if p[common.Up] > 0 {
 			spans = common.Extended(spans, tick)
 		}
 	}

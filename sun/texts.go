@@ -60,15 +60,11 @@ func Parse(s string) (Sky, int, api.Errno) {
 // readLine returns the sky that a line of a kind changes, or false if it does
 // not have its form.
 func readLine(s Sky, line, kind string, form lineForm) (Sky, bool) {
-	left, ended := common.WordsOf(line)
-	if !ended {
+	left, ok := common.WordsOf(line, kind)
+	if !ok {
 		return Sky{}, false
 	}
-	take := left.Next
-	if word, _ := take(); word != kind {
-		return Sky{}, false
-	}
-	return form.read(s, take)
+	return form.read(s, left.Next)
 }
 
 func readName(s Sky, take func() (string, bool)) (Sky, bool) {
