@@ -1,5 +1,6 @@
 // Package common has what several layers need beside the functions that their
-// chapters list: checks, lists, intervals, spans, and the lines of texts.
+// chapters list: checks, lists, intervals, spans, vectors, maps, and the lines of
+// texts.
 package common
 
 import (
@@ -42,6 +43,22 @@ func CheckInterval(x api.Interval, low, high int) api.Errno {
 		CheckRange(x.High, low, high),
 		When(x.Low > x.High, api.ErrOrder),
 	)
+}
+
+// CheckNamed returns ErrMany for too many elements, then for the first one with
+// an error that, or ErrTwice if one before it has its name.
+func CheckNamed[T any](l []T, most int, check func(T) api.Errno, name func(T) string) api.Errno {
+	if len(l) > most {
+		return api.ErrMany
+	}
+	names := map[string]bool{}
+	for _, x := range l {
+		if e := First(check(x), When(names[name(x)], api.ErrTwice)); e != api.OK {
+			return e
+		}
+		names[name(x)] = true
+	}
+	return api.OK
 }
 
 // Shared returns what two intervals have in common; without that, its ends are

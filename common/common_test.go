@@ -22,6 +22,22 @@ func TestChecks(t *testing.T) {
 	}
 }
 
+func TestCheckNamed(t *testing.T) {
+	check := func(s string) api.Errno { return common.When(s[0] == '-', api.ErrForm) }
+	name := func(s string) string { return s[1:] }
+	for _, x := range []struct {
+		l []string
+		e api.Errno
+	}{
+		{nil, api.OK}, {[]string{"+a"}, api.OK}, {[]string{"+a", "*b", "+c"}, api.OK}, {[]string{"+a", "+b", "+c", "+d"}, api.ErrMany}, {[]string{"-a", "+b", "+c", "+d"}, api.ErrMany}, {[]string{"+a", "*a"}, api.ErrTwice}, {[]string{"+a", "+b", "*a"}, api.ErrTwice},
+		{[]string{"+a", "+a", "-b"}, api.ErrTwice}, {[]string{"+a", "-a"}, api.ErrForm}, {[]string{"+a", "-b", "+a"}, api.ErrForm}, {[]string{"-a"}, api.ErrForm}, {[]string{"+", "+"}, api.ErrTwice},
+	} {
+		if e := common.CheckNamed(x.l, 3, check, name); e != x.e {
+			t.Errorf("CheckNamed %q: error %d, want %d", x.l, e, x.e)
+		}
+	}
+}
+
 func TestIntervals(t *testing.T) {
 	at := func(low, high int) api.Interval { return api.Interval{Low: low, High: high} }
 	for _, x := range []struct {

@@ -27,15 +27,24 @@ func Lines(s string) []string {
 // index of the first line that is wrong; the number of lines is the index of an
 // error of the list.
 func Parsed[T any](s string, read func(line string) (T, bool), check func([]T) api.Errno) ([]T, int, api.Errno) {
+	return ParsedNumbered(s, func(_ int, line string) (T, api.Errno) {
+		x, ok := read(line)
+		return x, When(!ok, api.ErrSyntax)
+	}, check)
+}
+
+// ParsedNumbered returns the same where what a line tells depends on its index,
+// too, and a line can have other errors than that of its form.
+func ParsedNumbered[T any](s string, read func(i int, line string) (T, api.Errno), check func([]T) api.Errno) ([]T, int, api.Errno) {
 	if len(s) > api.MaxText {
 		return nil, 0, api.ErrLong
 	}
 	lines := Lines(s)
 	var l []T
 	for i, line := range lines {
-		x, ok := read(line)
-		if !ok {
-			return nil, i, api.ErrSyntax
+		x, e := read(i, line)
+		if e != api.OK {
+			return nil, i, e
 		}
 		l = append(l, x)
 	}
@@ -70,6 +79,11 @@ func (w *Words) Next() (string, bool) {
 	word, rest, more := strings.Cut(w.rest, " ")
 	w.rest, w.more = rest, more
 	return word, true
+}
+
+// Only reports whether a word is all that is left; it takes nothing.
+func (w *Words) Only(word string) bool {
+	return w.more && w.rest == word
 }
 
 // Integers returns the words that are left as integers, or false if one is

@@ -7,6 +7,7 @@ import (
 
 	"spillage/api"
 	"spillage/common"
+	"spillage/expect"
 )
 
 func TestLine(t *testing.T) {
@@ -62,6 +63,28 @@ func TestWords(t *testing.T) {
 	}
 }
 
+func TestOnly(t *testing.T) {
+	for _, x := range []struct {
+		line string
+		only bool
+	}{{"a none\n", true}, {"a\n", false}, {"a \n", false}, {"a none \n", false}, {"a  none\n", false}, {"a none none\n", false}, {"a nones\n", false}, {"a b none\n", false}, {"a None\n", false}} {
+		left, _ := common.WordsOf(x.line, "a")
+		if left.Only("none") != x.only {
+			t.Errorf("Only of %q: %v", x.line, !x.only)
+		}
+	}
+	left, _ := common.WordsOf("a b \n", "a")
+	for _, wanted := range []string{"b", ""} {
+		before := left.Only("")
+		if word, more := left.Next(); word != wanted || !more || before != (wanted == "") {
+			t.Errorf("the word %q behind Only, which is %v", word, before)
+		}
+	}
+	if left.Only("") {
+		t.Error("Only of no word is true")
+	}
+}
+
 func TestIntegers(t *testing.T) {
 	left, _ := common.WordsOf("row 3 -4 0 999999999\n", "row")
 	if l, ok := common.Integers(left.Next); !ok || !slices.Equal(l, []int{3, -4, 0, 999999999}) {
@@ -90,9 +113,27 @@ func TestParsed(t *testing.T) {
 	}{
 		{"4\n-2\n4\n", []int{4, -2, 4}, 0, api.OK}, {"4", []int{4}, 0, api.OK}, {"", nil, 0, api.ErrEmpty}, {"1\n2\n3\n4\n", nil, 4, api.ErrMany}, {"1\n2\n3\n4\nx\ny\n", nil, 4, api.ErrSyntax}, {"x\n", nil, 0, api.ErrSyntax}, {long, nil, 0, api.ErrSyntax}, {long + "\n", nil, 0, api.ErrLong},
 	} {
-		l, index, e := common.Parsed(x.s, read, check)
-		if !slices.Equal(l, x.l) || index != x.index || e != x.e {
-			t.Errorf("Parsed %.20q: %v, line %d, error %d, want %v, line %d, error %d", x.s, l, index, e, x.l, x.index, x.e)
-		}
+		parse := func(s string) ([]int, int, api.Errno) { return common.Parsed(s, read, check) }
+		expect.Parsed(t, parse, x.s, x.l, x.index, x.e)
+	}
+}
+
+func TestParsedNumbered(t *testing.T) {
+	read := func(i int, line string) (int, api.Errno) {
+		n, ok := common.Integer(strings.TrimSuffix(line, "\n"))
+		return 10*i + n, common.First(common.When(!ok, api.ErrSyntax), common.When(n < i, api.ErrShape))
+	}
+	check := func(l []int) api.Errno { return common.CheckLength(len(l), 3) }
+	long := strings.Repeat("\n", api.MaxText)
+	for _, x := range []struct {
+		s     string
+		l     []int
+		index int
+		e     api.Errno
+	}{
+		{"4\n1\n7\n", []int{4, 11, 27}, 0, api.OK}, {"4\n1", []int{4, 11}, 0, api.OK}, {"", nil, 0, api.ErrEmpty}, {"3\n3\n3\n3\n", nil, 4, api.ErrMany}, {"1\n0\nx\n", nil, 1, api.ErrShape}, {"1\nx\n0\n", nil, 1, api.ErrSyntax}, {"-1\n", nil, 0, api.ErrShape}, {"3\n3\n3\n3\nx\n", nil, 4, api.ErrSyntax}, {long, nil, 0, api.ErrSyntax}, {long + "\n", nil, 0, api.ErrLong},
+	} {
+		parse := func(s string) ([]int, int, api.Errno) { return common.ParsedNumbered(s, read, check) }
+		expect.Parsed(t, parse, x.s, x.l, x.index, x.e)
 	}
 }

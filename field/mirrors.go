@@ -76,17 +76,7 @@ func CheckMirror(m Mirror) api.Errno {
 
 // CheckMirrors returns the first error of mirrors, or OK.
 func CheckMirrors(l []Mirror) api.Errno {
-	if len(l) > MaxMirrors {
-		return api.ErrMany
-	}
-	names := map[string]bool{}
-	for _, m := range l {
-		if e := common.First(CheckMirror(m), common.When(names[m.Name], api.ErrTwice)); e != api.OK {
-			return e
-		}
-		names[m.Name] = true
-	}
-	return api.OK
+	return common.CheckNamed(l, MaxMirrors, CheckMirror, func(m Mirror) string { return m.Name })
 }
 
 func checkCount(k int) api.Errno {

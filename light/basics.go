@@ -7,13 +7,12 @@ import (
 	"spillage/common"
 )
 
-// The numbers of the generator that draws permutations, and the parts of an
-// integer that a sample may be told in.
+// The numbers of the generator that draws permutations, and the greatest integer
+// of a sample.
 const (
 	drawFactor  = 950706376
 	drawModulus = 2147483647
-	fineness    = 16
-	maxInteger  = api.MaxValue * fineness
+	maxInteger  = api.MaxValue * common.Fineness
 )
 
 // IsName reports whether a string is a name.
@@ -80,18 +79,8 @@ func isFinite(x float32) bool {
 // isMultiple reports whether a finite number is a multiple of 1/16 from -limit
 // to limit.
 func isMultiple(x float32, limit float64) bool {
-	n := float64(x) * fineness
-	return n == math.Trunc(n) && math.Abs(n) <= limit*fineness
-}
-
-// integer returns the integer of a sample.
-func integer(x float32) int {
-	return int(x * fineness)
-}
-
-// sample returns the sample with an integer.
-func sample(n int) float32 {
-	return float32(n) / fineness
+	n := float64(x) * common.Fineness
+	return n == math.Trunc(n) && math.Abs(n) <= limit*common.Fineness
 }
 
 // CheckVector returns the first error of a vector, or OK.

@@ -1,8 +1,6 @@
 package light
 
 import (
-	"iter"
-
 	"spillage/api"
 	"spillage/common"
 )
@@ -15,7 +13,7 @@ type grid struct {
 }
 
 func gridOf(m Map) grid {
-	return grid{width: m.Width, height: m.Height, cells: common.Mapped(m.Samples, integer)}
+	return grid{width: m.Width, height: m.Height, cells: common.Mapped(m.Samples, common.IntegerOf)}
 }
 
 func (g grid) has(p api.Point) bool {
@@ -38,29 +36,16 @@ func (g grid) toMap() (Map, api.Errno) {
 			return Map{}, api.ErrLarge
 		}
 	}
-	return Map{Width: g.width, Height: g.height, Samples: common.Mapped(g.cells, sample)}, api.OK
+	return Map{Width: g.width, Height: g.height, Samples: common.Mapped(g.cells, common.SampleOf)}, api.OK
 }
 
 // painted returns the map whose integers a function tells for each place.
 func painted(width, height int, cell func(api.Point) int) (Map, api.Errno) {
 	cells := make([]int, 0, width*height)
-	for p := range places(width, height) {
+	for p := range common.Places(width, height) {
 		cells = append(cells, cell(p))
 	}
 	return grid{width: width, height: height, cells: cells}.toMap()
-}
-
-// places visits the places of a map, row by row.
-func places(width, height int) iter.Seq[api.Point] {
-	return func(yield func(api.Point) bool) {
-		for y := range height {
-			for x := range width {
-				if !yield(api.Point{X: x, Y: y}) {
-					return
-				}
-			}
-		}
-	}
 }
 
 // CheckMap returns the first error of a map, or OK.
@@ -87,7 +72,7 @@ func At(m Map, p api.Point) (float32, api.Errno) {
 	if !g.has(p) {
 		return 0, api.ErrUnknown
 	}
-	return sample(g.at(p)), api.OK
+	return common.SampleOf(g.at(p)), api.OK
 }
 
 // Total returns the light of a map.
@@ -109,12 +94,12 @@ func Peak(m Map) (float32, api.Point, api.Errno) {
 	}
 	g := gridOf(m)
 	peak := api.Point{}
-	for p := range places(g.width, g.height) {
+	for p := range common.Places(g.width, g.height) {
 		if g.at(p) > g.at(peak) {
 			peak = p
 		}
 	}
-	return sample(g.at(peak)), peak, api.OK
+	return common.SampleOf(g.at(peak)), peak, api.OK
 }
 
 // Part returns the part of a map in some columns and rows.

@@ -26,7 +26,7 @@ func Pack(m Map) ([]byte, api.Errno) {
 	s = append(s, streamMark...)
 	s = append(s, byte(m.Width), byte(m.Height))
 	for _, n := range gridOf(m).cells { // the integer of -0 is 0
-		s = appendNumber(s, int(math.Float32bits(sample(n))))
+		s = appendNumber(s, int(math.Float32bits(common.SampleOf(n))))
 	}
 	return appendNumber(s, checksum(s)), api.OK
 }

@@ -52,7 +52,7 @@ func Spread(m Map, share int) (Map, api.Errno) {
 	g := gridOf(m)
 	out := g
 	out.cells = slices.Clone(g.cells)
-	for p := range places(g.width, g.height) {
+	for p := range common.Places(g.width, g.height) {
 		gift := lowered(g.at(p)*share, 16)
 		for _, q := range neighbours(g, p) {
 			out.cells[g.index(p)] -= gift
@@ -86,7 +86,7 @@ func Binned(m Map, step int) (Map, api.Errno) {
 	g := gridOf(m)
 	return painted(g.width/step, g.height/step, func(p api.Point) int {
 		sum := 0
-		for q := range places(step, step) {
+		for q := range common.Places(step, step) {
 			sum += g.at(api.Point{X: p.X*step + q.X, Y: p.Y*step + q.Y})
 		}
 		return sum
