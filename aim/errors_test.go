@@ -25,23 +25,10 @@ func TestRightArguments(t *testing.T) {
 func TestTheFirstWrongArgumentDecides(t *testing.T) {
 	faults := faults()
 	for _, x := range calls() {
-		for i, argument := range x.takes {
-			for n, fault := range faults[argument] {
-				a := rightArguments()
-				fault.spoil(&a)
-				results, e := x.do(a)
-				if e != fault.e || !isNothing(results) {
-					t.Errorf("%s with the fault %d of its %s: %v, error %d, want error %d", x.what, n, argument, results, e, fault.e)
-				}
-				for _, later := range x.takes[i+1:] {
-					faults[later][n%len(faults[later])].spoil(&a)
-				}
-				results, e = x.do(a)
-				if e != fault.e || !isNothing(results) {
-					t.Errorf("%s with the fault %d of its %s and later ones: %v, error %d, want error %d", x.what, n, argument, results, e, fault.e)
-				}
-			}
-		}
+		expect.FirstFault(t, x.what, x.takes, rightArguments, faults, func(a arguments) (bool, api.Errno) {
+			results, e := x.do(a)
+			return isNothing(results), e
+		})
 	}
 }
 

@@ -229,15 +229,12 @@ func rightArguments() arguments {
 }
 
 // fault makes an argument wrong, which gives an error.
-type fault struct {
-	spoil func(a *arguments)
-	e     api.Errno
-}
+type fault = expect.Fault[arguments]
 
 func faultsOf[T any](l []wrong[T], put func(a *arguments, x T)) []fault {
 	var faults []fault
 	for _, x := range l {
-		faults = append(faults, fault{func(a *arguments) { put(a, x.x) }, x.e})
+		faults = append(faults, fault{Spoil: func(a *arguments) { put(a, x.x) }, Err: x.e})
 	}
 	return faults
 }

@@ -74,8 +74,7 @@ func checkAims(s Spot) api.Errno {
 	}
 	for i, at := range s.Aims {
 		e := common.First(
-			common.CheckRange(at.X, -MaxAim, MaxAim),
-			common.CheckRange(at.Y, -MaxAim, MaxAim),
+			common.CheckPoint(at, -MaxAim, MaxAim),
 			common.When(slices.Contains(s.Aims[:i], at), api.ErrTwice),
 		)
 		if e != api.OK {
@@ -90,7 +89,7 @@ func checkWrong(s Spot) api.Errno {
 }
 
 func checkSpots(l []Spot) api.Errno {
-	return common.CheckNamed(l, MaxMirrors, checkSpot, func(s Spot) string { return s.Name })
+	return common.CheckDistinct(l, MaxMirrors, checkSpot, func(s Spot) string { return s.Name })
 }
 
 // CheckSpots returns the first error of mirrors, or OK.

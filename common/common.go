@@ -45,18 +45,29 @@ func CheckInterval(x api.Interval, low, high int) api.Errno {
 	)
 }
 
-// CheckNamed returns ErrMany for too many elements, then for the first one with
-// an error that, or ErrTwice if one before it has its name.
-func CheckNamed[T any](l []T, most int, check func(T) api.Errno, name func(T) string) api.Errno {
+// CheckPoint returns ErrRange for a place with a part that is not from low to
+// high.
+func CheckPoint(p api.Point, low, high int) api.Errno {
+	return First(CheckRange(p.X, low, high), CheckRange(p.Y, low, high))
+}
+
+// CheckDistinct returns ErrMany for too many elements, then for the first one
+// with an error that of the check, ErrTwice if one before it has its key, or that
+// of the later checks.
+func CheckDistinct[T any, K comparable](l []T, most int, check func(T) api.Errno, key func(T) K, later ...func(T) api.Errno) api.Errno {
 	if len(l) > most {
 		return api.ErrMany
 	}
-	names := map[string]bool{}
+	keys := map[K]bool{}
 	for _, x := range l {
-		if e := First(check(x), When(names[name(x)], api.ErrTwice)); e != api.OK {
+		e := First(check(x), When(keys[key(x)], api.ErrTwice))
+		for _, check := range later {
+			e = First(e, check(x))
+		}
+		if e != api.OK {
 			return e
 		}
-		names[name(x)] = true
+		keys[key(x)] = true
 	}
 	return api.OK
 }

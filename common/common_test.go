@@ -22,7 +22,7 @@ func TestChecks(t *testing.T) {
 	}
 }
 
-func TestCheckNamed(t *testing.T) {
+func TestCheckDistinct(t *testing.T) {
 	check := func(s string) api.Errno { return common.When(s[0] == '-', api.ErrForm) }
 	name := func(s string) string { return s[1:] }
 	for _, x := range []struct {
@@ -32,8 +32,39 @@ func TestCheckNamed(t *testing.T) {
 		{nil, api.OK}, {[]string{"+a"}, api.OK}, {[]string{"+a", "*b", "+c"}, api.OK}, {[]string{"+a", "+b", "+c", "+d"}, api.ErrMany}, {[]string{"-a", "+b", "+c", "+d"}, api.ErrMany}, {[]string{"+a", "*a"}, api.ErrTwice}, {[]string{"+a", "+b", "*a"}, api.ErrTwice},
 		{[]string{"+a", "+a", "-b"}, api.ErrTwice}, {[]string{"+a", "-a"}, api.ErrForm}, {[]string{"+a", "-b", "+a"}, api.ErrForm}, {[]string{"-a"}, api.ErrForm}, {[]string{"+", "+"}, api.ErrTwice},
 	} {
-		if e := common.CheckNamed(x.l, 3, check, name); e != x.e {
+		if e := common.CheckDistinct(x.l, 3, check, name); e != x.e {
 			t.Errorf("CheckNamed %q: error %d, want %d", x.l, e, x.e)
+		}
+	}
+}
+
+// TestCheckDistinctOfLaterChecks checks that they come behind the keys, in their order, and before the next element.
+func TestCheckDistinctOfLaterChecks(t *testing.T) {
+	check := func(x [2]int) api.Errno { return common.When(x[0] < 0, api.ErrForm) }
+	key := func(x [2]int) [2]int { return [2]int{x[0], x[1] % 10} }
+	small := func(x [2]int) api.Errno { return common.When(x[1] > 20, api.ErrLarge) }
+	even := func(x [2]int) api.Errno { return common.When(x[1]%2 == 1, api.ErrShape) }
+	for _, x := range []struct {
+		l [][2]int
+		e api.Errno
+	}{
+		{nil, api.OK}, {[][2]int{{1, 2}, {1, 4}, {2, 2}}, api.OK}, {[][2]int{{1, 2}, {1, 12}}, api.ErrTwice}, {[][2]int{{1, 2}, {1, 22}}, api.ErrTwice}, {[][2]int{{1, 2}, {-1, 23}}, api.ErrForm}, {[][2]int{{1, 2}, {1, 23}}, api.ErrLarge}, {[][2]int{{1, 2}, {1, 13}}, api.ErrShape}, {[][2]int{{1, 3}, {1, 3}}, api.ErrShape}, {[][2]int{{1, 22}, {-1, 3}}, api.ErrLarge}, {[][2]int{{1, 2}, {1, 4}, {1, 6}, {-1, 3}}, api.ErrMany},
+	} {
+		if e := common.CheckDistinct(x.l, 3, check, key, small, even); e != x.e {
+			t.Errorf("CheckDistinct %v: error %d, want %d", x.l, e, x.e)
+		}
+	}
+}
+
+func TestCheckPoint(t *testing.T) {
+	for _, x := range []struct {
+		p api.Point
+		e api.Errno
+	}{
+		{api.Point{}, api.OK}, {api.Point{X: -2, Y: 3}, api.OK}, {api.Point{X: 3, Y: -2}, api.OK}, {api.Point{X: -3}, api.ErrRange}, {api.Point{X: 4}, api.ErrRange}, {api.Point{Y: -3}, api.ErrRange}, {api.Point{Y: 4}, api.ErrRange}, {api.Point{X: math.MinInt, Y: math.MaxInt}, api.ErrRange},
+	} {
+		if e := common.CheckPoint(x.p, -2, 3); e != x.e {
+			t.Errorf("CheckPoint %v: error %d, want %d", x.p, e, x.e)
 		}
 	}
 }

@@ -36,22 +36,35 @@ func Parsed[T any](s string, read func(line string) (T, bool), check func([]T) a
 // ParsedNumbered returns the same where what a line tells depends on its index,
 // too, and a line can have other errors than that of its form.
 func ParsedNumbered[T any](s string, read func(i int, line string) (T, api.Errno), check func([]T) api.Errno) ([]T, int, api.Errno) {
-	if len(s) > api.MaxText {
-		return nil, 0, api.ErrLong
-	}
-	lines := Lines(s)
 	var l []T
-	for i, line := range lines {
+	index, e := ReadLines(s, api.MaxText, func(i int, line string) api.Errno {
 		x, e := read(i, line)
-		if e != api.OK {
-			return nil, i, e
-		}
 		l = append(l, x)
+		return e
+	})
+	if e == api.OK {
+		e = check(l)
 	}
-	if e := check(l); e != api.OK {
-		return nil, len(lines), e
+	if e != api.OK {
+		return nil, index, e
 	}
 	return l, 0, api.OK
+}
+
+// ReadLines reads the lines of a text of at most some bytes, one after the other;
+// it returns the index of the first one with an error and this error, or how many
+// lines there are.
+func ReadLines(s string, most int, read func(i int, line string) api.Errno) (int, api.Errno) {
+	if len(s) > most {
+		return 0, api.ErrLong
+	}
+	lines := Lines(s)
+	for i, line := range lines {
+		if e := read(i, line); e != api.OK {
+			return i, e
+		}
+	}
+	return len(lines), api.OK
 }
 
 // Words are what is left of a line.

@@ -137,3 +137,26 @@ func TestParsedNumbered(t *testing.T) {
 		expect.Parsed(t, parse, x.s, x.l, x.index, x.e)
 	}
 }
+
+func TestReadLines(t *testing.T) {
+	for _, x := range []struct {
+		s     string
+		lines []string
+		index int
+		e     api.Errno
+	}{
+		{"", nil, 0, api.OK}, {"a\n", []string{"a\n"}, 1, api.OK}, {"a\nb", []string{"a\n", "b"}, 2, api.OK}, {"x\na\n", []string{"x\n"}, 0, api.ErrShape}, {"a\nx\nx\n", []string{"a\n", "x\n"}, 1, api.ErrShape}, {"a\nb\nc\nd\n", []string{"a\n", "b\n", "c\n", "d\n"}, 4, api.OK}, {"a\nb\nc\nd\n\n", nil, 0, api.ErrLong}, {"x\nb\nc\nd\n\n", nil, 0, api.ErrLong},
+	} {
+		var lines []string
+		index, e := common.ReadLines(x.s, 8, func(i int, line string) api.Errno {
+			if i != len(lines) {
+				t.Errorf("ReadLines %q: the line %d has the index %d", x.s, len(lines), i)
+			}
+			lines = append(lines, line)
+			return common.When(line == "x\n", api.ErrShape)
+		})
+		if !slices.Equal(lines, x.lines) || index != x.index || e != x.e {
+			t.Errorf("ReadLines %q: %q, index %d, error %d", x.s, lines, index, e)
+		}
+	}
+}

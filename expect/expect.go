@@ -1,5 +1,5 @@
-// Package expect has what the tests of the layers compare results with. No
-// layer calls it.
+// Package expect has what the tests of the layers compare results with, and how
+// they try the faults of arguments. No layer calls it.
 package expect
 
 import (

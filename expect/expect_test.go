@@ -56,3 +56,41 @@ func TestOutside(t *testing.T) {
 		}
 	}
 }
+
+// pair is the arguments of a call, which returns the first one above 9 as its error.
+type pair [2]int
+
+func spoilt(i, n int) expect.Fault[pair] {
+	return expect.Fault[pair]{Spoil: func(p *pair) { p[i] = n }, Err: api.Errno(n)}
+}
+
+func TestFirstFault(t *testing.T) {
+	faults := map[string][]expect.Fault[pair]{"a": {spoilt(0, 10), spoilt(0, 11)}, "b": {spoilt(1, 12)}}
+	right := func() pair { return pair{1, 2} }
+	first := func(p pair) (bool, api.Errno) {
+		if p[0] > 9 {
+			return true, api.Errno(p[0])
+		}
+		return true, api.Errno(p[1])
+	}
+	second := func(p pair) (bool, api.Errno) {
+		if p[1] > 9 {
+			return true, api.Errno(p[1])
+		}
+		return true, api.Errno(p[0])
+	}
+	something := func(p pair) (bool, api.Errno) { return p[1] > 9, api.Errno(max(p[0], 9)) }
+	for _, x := range []struct {
+		what  string
+		takes []string
+		call  func(p pair) (bool, api.Errno)
+		told  int
+	}{
+		{"the first one decides", []string{"a", "b"}, first, 0}, {"the second one decides", []string{"a", "b"}, second, 2}, {"the second one alone decides", []string{"b"}, second, 0}, {"none decides", []string{"b"}, func(pair) (bool, api.Errno) { return true, api.OK }, 2}, {"the others are taken the other way round", []string{"b", "a"}, second, 0}, {"something beside an error", []string{"a", "b"}, something, 4},
+	} {
+		c := &counted{}
+		if expect.FirstFault(c, x.what, x.takes, right, faults, x.call); c.told != x.told {
+			t.Errorf("%s: %d reports, want %d", x.what, c.told, x.told)
+		}
+	}
+}

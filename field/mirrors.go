@@ -76,7 +76,7 @@ func CheckMirror(m Mirror) api.Errno {
 
 // CheckMirrors returns the first error of mirrors, or OK.
 func CheckMirrors(l []Mirror) api.Errno {
-	return common.CheckNamed(l, MaxMirrors, CheckMirror, func(m Mirror) string { return m.Name })
+	return common.CheckDistinct(l, MaxMirrors, CheckMirror, func(m Mirror) string { return m.Name })
 }
 
 func checkCount(k int) api.Errno {

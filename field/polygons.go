@@ -35,10 +35,7 @@ func edges(p []api.Point) iter.Seq2[int, edge] {
 }
 
 func checkPoint(x api.Point) api.Errno {
-	return common.First(
-		common.CheckRange(x.X, -MaxPlane, MaxPlane),
-		common.CheckRange(x.Y, -MaxPlane, MaxPlane),
-	)
+	return common.CheckPoint(x, -MaxPlane, MaxPlane)
 }
 
 // CheckPolygon returns the first error of a polygon, or OK.

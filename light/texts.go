@@ -35,27 +35,21 @@ func Print(m Map) (string, api.Errno) {
 
 // Parse returns the map of a text, and the index of the first line that is wrong.
 func Parse(s string) (Map, int, api.Errno) {
-	if len(s) > api.MaxLog {
-		return Map{}, 0, api.ErrLong
-	}
-	lines := common.Lines(s)
-	if len(lines) == 0 {
-		return Map{}, 0, api.ErrSyntax
-	}
 	forms := lineForms()
 	var rows [][]int
 	kind := "map"
-	for i, line := range lines {
+	index, e := common.ReadLines(s, api.MaxLog, func(_ int, line string) api.Errno {
 		row, ok := readLine(line, kind, forms[kind])
-		if !ok {
-			return Map{}, i, api.ErrSyntax
-		}
 		rows = append(rows, row)
 		kind = "row"
+		return common.When(!ok, api.ErrSyntax)
+	})
+	if e = common.First(e, common.When(index == 0, api.ErrSyntax)); e != api.OK {
+		return Map{}, index, e
 	}
 	m, e := assembled(rows[0][0], rows[0][1], rows[1:])
 	if e != api.OK {
-		return Map{}, len(lines), e
+		return Map{}, index, e
 	}
 	return m, 0, api.OK
 }

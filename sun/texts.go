@@ -34,25 +34,17 @@ func Print(s Sky) (string, api.Errno) {
 
 // Parse returns the sky of a text, and the index of the first line that is wrong.
 func Parse(s string) (Sky, int, api.Errno) {
-	if len(s) > api.MaxText {
-		return Sky{}, 0, api.ErrLong
-	}
-	lines := common.Lines(s)
-	if len(lines) == 0 {
-		return Sky{}, 0, api.ErrSyntax
-	}
 	var sky Sky
 	forms := lineForms()
 	kind := "sky"
-	for i, line := range lines {
+	index, e := common.ReadLines(s, api.MaxText, func(_ int, line string) api.Errno {
 		changed, ok := readLine(sky, line, kind, forms[kind])
-		if !ok {
-			return Sky{}, i, api.ErrSyntax
-		}
 		sky, kind = changed, "sun"
-	}
-	if e := CheckSky(sky); e != api.OK {
-		return Sky{}, len(lines), e
+		return common.When(!ok, api.ErrSyntax)
+	})
+	e = common.First(e, common.When(index == 0, api.ErrSyntax), CheckSky(sky))
+	if e != api.OK {
+		return Sky{}, index, e
 	}
 	return sky, 0, api.OK
 }
