@@ -28,14 +28,8 @@ func aimedAt(s Spot, aim int) aimed {
 
 // shifts visits the admitted shifts.
 func (x aimed) shifts() iter.Seq[api.Point] {
-	return func(yield func(api.Point) bool) {
-		side := 2*x.Wrong + 1
-		for p := range common.Places(side, side) {
-			if !yield(api.Point{X: p.X - x.Wrong, Y: p.Y - x.Wrong}) {
-				return
-			}
-		}
-	}
+	reach := api.Interval{Low: -x.Wrong, High: x.Wrong}
+	return common.PlacesIn(reach, reach)
 }
 
 // cast returns what each tile gets by a shift, and the share of all of them.

@@ -28,7 +28,7 @@ func CheckReceiver(r Receiver) api.Errno {
 
 // has reports whether the receiver has a tile.
 func (r Receiver) has(tile api.Point) bool {
-	return 0 <= tile.X && tile.X < r.Width && 0 <= tile.Y && tile.Y < r.Height
+	return common.IsPlace(tile, r.Width, r.Height)
 }
 
 // index returns the index of a tile.

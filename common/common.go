@@ -1,6 +1,6 @@
 // Package common has what several layers need beside the functions that their
-// chapters list: checks, lists, intervals, spans, vectors, maps, and the lines of
-// texts.
+// chapters list: checks, lists, quotients, intervals, spans, points, vectors, maps,
+// and the lines of texts.
 package common
 
 import (
@@ -35,6 +35,15 @@ func CheckLength(n, most int) api.Errno {
 	return First(When(n == 0, api.ErrEmpty), When(n > most, api.ErrMany))
 }
 
+// CheckList returns ErrMany for too many elements, then the error of the first one
+// with one.
+func CheckList[T any](l []T, most int, check func(T) api.Errno) api.Errno {
+	if len(l) > most {
+		return api.ErrMany
+	}
+	return First(Mapped(l, check)...)
+}
+
 // CheckInterval returns ErrRange for an interval with an end that is not from
 // low to high, then ErrOrder if its ends are in the wrong order.
 func CheckInterval(x api.Interval, low, high int) api.Errno {
@@ -43,12 +52,6 @@ func CheckInterval(x api.Interval, low, high int) api.Errno {
 		CheckRange(x.High, low, high),
 		When(x.Low > x.High, api.ErrOrder),
 	)
-}
-
-// CheckPoint returns ErrRange for a place with a part that is not from low to
-// high.
-func CheckPoint(p api.Point, low, high int) api.Errno {
-	return First(CheckRange(p.X, low, high), CheckRange(p.Y, low, high))
 }
 
 // CheckDistinct returns ErrMany for too many elements, then for the first one
@@ -78,6 +81,11 @@ func Shared(a, b api.Interval) api.Interval {
 	return api.Interval{Low: max(a.Low, b.Low), High: min(a.High, b.High)}
 }
 
+// Length returns how many integers an interval has.
+func Length(x api.Interval) int {
+	return x.High - x.Low + 1
+}
+
 // Mapped returns what a function makes of each element of a list.
 func Mapped[A, B any](l []A, change func(A) B) []B {
 	out := make([]B, 0, len(l))
@@ -105,6 +113,26 @@ func Sign(n int) int {
 func Quotient(a, b int) api.Ratio {
 	divisor := Divisor(a, b) * Sign(b)
 	return api.Ratio{Num: a / divisor, Den: b / divisor}
+}
+
+// Lowered returns a / b rounded down, for b above 0.
+func Lowered(a, b int) int {
+	q := a / b
+	if a%b < 0 {
+		q--
+	}
+	return q
+}
+
+// Raised returns a / b rounded up, for b above 0.
+func Raised(a, b int) int {
+	return -Lowered(-a, b)
+}
+
+// Rounded returns the nearest integer of a / b, for b above 0; from the middle the
+// greater one.
+func Rounded(a, b int) int {
+	return Lowered(2*a+b, 2*b)
 }
 
 // Extended adds an index to ascending spans; the last span grows if it ends

@@ -22,6 +22,18 @@ func TestChecks(t *testing.T) {
 	}
 }
 
+func TestCheckList(t *testing.T) {
+	check := func(n int) api.Errno { return api.Errno(n) }
+	for _, x := range []struct {
+		l []int
+		e api.Errno
+	}{{nil, api.OK}, {[]int{0}, api.OK}, {[]int{0, 0, 0}, api.OK}, {[]int{0, 3, 7}, api.ErrRange}, {[]int{7, 3, 0}, api.ErrNone}, {[]int{0, 0, 7}, api.ErrNone}, {[]int{0, 0, 0, 0}, api.ErrMany}, {[]int{7, 7, 7, 7}, api.ErrMany}} {
+		if e := common.CheckList(x.l, 3, check); e != x.e {
+			t.Errorf("CheckList %v: error %d, want %d", x.l, e, x.e)
+		}
+	}
+}
+
 func TestCheckDistinct(t *testing.T) {
 	check := func(s string) api.Errno { return common.When(s[0] == '-', api.ErrForm) }
 	name := func(s string) string { return s[1:] }
@@ -56,19 +68,6 @@ func TestCheckDistinctOfLaterChecks(t *testing.T) {
 	}
 }
 
-func TestCheckPoint(t *testing.T) {
-	for _, x := range []struct {
-		p api.Point
-		e api.Errno
-	}{
-		{api.Point{}, api.OK}, {api.Point{X: -2, Y: 3}, api.OK}, {api.Point{X: 3, Y: -2}, api.OK}, {api.Point{X: -3}, api.ErrRange}, {api.Point{X: 4}, api.ErrRange}, {api.Point{Y: -3}, api.ErrRange}, {api.Point{Y: 4}, api.ErrRange}, {api.Point{X: math.MinInt, Y: math.MaxInt}, api.ErrRange},
-	} {
-		if e := common.CheckPoint(x.p, -2, 3); e != x.e {
-			t.Errorf("CheckPoint %v: error %d, want %d", x.p, e, x.e)
-		}
-	}
-}
-
 func TestIntervals(t *testing.T) {
 	at := func(low, high int) api.Interval { return api.Interval{Low: low, High: high} }
 	for _, x := range []struct {
@@ -89,6 +88,14 @@ func TestIntervals(t *testing.T) {
 	}
 	if x := common.Shared(at(0, 1), at(2, 3)); x.Low <= x.High {
 		t.Errorf("Shared of nothing: %v", x)
+	}
+}
+
+func TestLength(t *testing.T) {
+	for _, x := range [][3]int{{0, 0, 1}, {-2, 3, 6}, {5, 4, 0}, {-9, -8, 2}} {
+		if n := common.Length(api.Interval{Low: x[0], High: x[1]}); n != x[2] {
+			t.Errorf("Length %d to %d: %d", x[0], x[1], n)
+		}
 	}
 }
 
@@ -122,6 +129,22 @@ func TestQuotient(t *testing.T) {
 	for _, x := range [][4]int{{6, 4, 3, 2}, {-6, 4, -3, 2}, {6, -4, -3, 2}, {-6, -4, 3, 2}, {0, 5, 0, 1}, {0, -5, 0, 1}, {7, 7, 1, 1}, {8, 2, 4, 1}, {1 << 60, 1 << 59, 2, 1}, {999, 1000, 999, 1000}} {
 		if q := common.Quotient(x[0], x[1]); q != (api.Ratio{Num: x[2], Den: x[3]}) {
 			t.Errorf("Quotient %d %d: %v, want %d / %d", x[0], x[1], q, x[2], x[3])
+		}
+	}
+}
+
+func TestRounding(t *testing.T) {
+	for _, x := range []struct{ a, b, lowered, raised, rounded int }{
+		{0, 3, 0, 0, 0}, {7, 1, 7, 7, 7}, {-7, 1, -7, -7, -7}, {6, 3, 2, 2, 2}, {-6, 3, -2, -2, -2}, {7, 3, 2, 3, 2}, {-7, 3, -3, -2, -2}, {8, 3, 2, 3, 3}, {-8, 3, -3, -2, -3}, {1, 2, 0, 1, 1}, {-1, 2, -1, 0, 0}, {3, 2, 1, 2, 2}, {-3, 2, -2, -1, -1}, {1, 4, 0, 1, 0}, {-1, 4, -1, 0, 0}, {1 << 40, 1<<40 + 1, 0, 1, 1}, {-1 << 40, 1<<40 + 1, -1, 0, -1},
+	} {
+		if n := common.Lowered(x.a, x.b); n != x.lowered {
+			t.Errorf("Lowered %d %d: %d, want %d", x.a, x.b, n, x.lowered)
+		}
+		if n := common.Raised(x.a, x.b); n != x.raised {
+			t.Errorf("Raised %d %d: %d, want %d", x.a, x.b, n, x.raised)
+		}
+		if n := common.Rounded(x.a, x.b); n != x.rounded {
+			t.Errorf("Rounded %d %d: %d, want %d", x.a, x.b, n, x.rounded)
 		}
 	}
 }

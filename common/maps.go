@@ -19,6 +19,11 @@ func SampleOf(n int) float32 {
 	return float32(n) / Fineness
 }
 
+// IsPlace reports whether a point is a place of a width and a height.
+func IsPlace(p api.Point, width, height int) bool {
+	return 0 <= p.X && p.X < width && 0 <= p.Y && p.Y < height
+}
+
 // Places visits the places of a width and a height, row by row.
 func Places(width, height int) iter.Seq[api.Point] {
 	return func(yield func(api.Point) bool) {
@@ -27,6 +32,18 @@ func Places(width, height int) iter.Seq[api.Point] {
 				if !yield(api.Point{X: x, Y: y}) {
 					return
 				}
+			}
+		}
+	}
+}
+
+// PlacesIn visits the points whose X and Y are in two intervals, row by row.
+func PlacesIn(columns, rows api.Interval) iter.Seq[api.Point] {
+	corner := api.Point{X: columns.Low, Y: rows.Low}
+	return func(yield func(api.Point) bool) {
+		for p := range Places(Length(columns), Length(rows)) {
+			if !yield(Plus(corner, p)) {
+				return
 			}
 		}
 	}

@@ -65,8 +65,5 @@ func Overloads(l []float32, limit float32, least int) ([]api.Span, api.Errno) {
 }
 
 func checkCurrents(l []float32) api.Errno {
-	if len(l) > MaxCurrents {
-		return api.ErrMany
-	}
-	return common.First(common.Mapped(l, light.CheckSample)...)
+	return common.CheckList(l, MaxCurrents, light.CheckSample)
 }

@@ -94,3 +94,16 @@ func TestFirstFault(t *testing.T) {
 		}
 	}
 }
+
+func TestFaults(t *testing.T) {
+	var p pair
+	faults := expect.Faults(api.ErrZero, func(p *pair, n int) { p[1] = n }, 3, 5)
+	for i, wanted := range []int{3, 5} {
+		if faults[i].Spoil(&p); p != (pair{0, wanted}) || faults[i].Err != api.ErrZero {
+			t.Errorf("the fault %d makes %v, error %d", i, p, faults[i].Err)
+		}
+	}
+	if l := expect.Faults(api.ErrZero, func(*pair, int) {}); len(faults) != 2 || len(l) != 0 {
+		t.Errorf("there are %d faults of two values, and %d of none", len(faults), len(l))
+	}
+}

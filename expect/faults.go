@@ -10,6 +10,16 @@ type Fault[A any] struct {
 	Err   api.Errno
 }
 
+// Faults returns the faults of one argument by values that give an error where they
+// are put.
+func Faults[A, T any](e api.Errno, put func(a *A, x T), values ...T) []Fault[A] {
+	var faults []Fault[A]
+	for _, x := range values {
+		faults = append(faults, Fault[A]{Spoil: func(a *A) { put(a, x) }, Err: e})
+	}
+	return faults
+}
+
 // FirstFault reports where the first wrong one of the arguments that a call takes
 // does not decide: each fault of each of them, alone and before faults of the
 // arguments behind it, gives its error. The call returns its error, and whether

@@ -102,10 +102,7 @@ func distance(a, b Mirror) int {
 
 // Efficiency returns the product of shares.
 func Efficiency(l []api.Ratio) (api.Ratio, api.Errno) {
-	if len(l) > MaxShares {
-		return api.Ratio{}, api.ErrMany
-	}
-	if e := common.First(common.Mapped(l, checkShare)...); e != api.OK {
+	if e := common.CheckList(l, MaxShares, checkShare); e != api.OK {
 		return api.Ratio{}, e
 	}
 	product := api.Ratio{Num: 1, Den: 1}
@@ -125,10 +122,7 @@ func checkShare(x api.Ratio) api.Errno {
 
 // Summed returns the weighted mean of readings.
 func Summed(l []Reading) (api.Ratio, api.Errno) {
-	if len(l) > MaxReadings {
-		return api.Ratio{}, api.ErrMany
-	}
-	if e := common.First(common.Mapped(l, Reading.check)...); e != api.OK {
+	if e := common.CheckList(l, MaxReadings, Reading.check); e != api.OK {
 		return api.Ratio{}, e
 	}
 	left, facets := 0, 0

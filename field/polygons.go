@@ -20,7 +20,7 @@ type edge struct {
 // left is above 0 for a point to the left of the edge's line, 0 for one on it,
 // and below 0 for all others.
 func (x edge) left(r api.Point) int {
-	return (x.to.X-x.from.X)*(r.Y-x.from.Y) - (x.to.Y-x.from.Y)*(r.X-x.from.X)
+	return common.Left(x.from, x.to, r)
 }
 
 // edges visits the edges of a polygon, each one with its index.

@@ -17,7 +17,7 @@ func gridOf(m Map) grid {
 }
 
 func (g grid) has(p api.Point) bool {
-	return 0 <= p.X && p.X < g.width && 0 <= p.Y && p.Y < g.height
+	return common.IsPlace(p, g.width, g.height)
 }
 
 func (g grid) index(p api.Point) int {
@@ -111,8 +111,9 @@ func Part(m Map, columns, rows api.Span) (Map, api.Errno) {
 		return Map{}, e
 	}
 	g := gridOf(m)
+	corner := api.Point{X: columns.From, Y: rows.From}
 	return painted(columns.To-columns.From, rows.To-rows.From, func(p api.Point) int {
-		return g.at(api.Point{X: columns.From + p.X, Y: rows.From + p.Y})
+		return g.at(common.Plus(corner, p))
 	})
 }
 
@@ -135,7 +136,7 @@ func Placed(m Map, width, height int, at api.Point) (Map, api.Errno) {
 	}
 	g := gridOf(m)
 	return painted(width, height, func(p api.Point) int {
-		q := api.Point{X: p.X - at.X, Y: p.Y - at.Y}
+		q := common.Minus(p, at)
 		if !g.has(q) {
 			return 0
 		}

@@ -25,23 +25,8 @@ func Scaled(m Map, num, den int) (Map, api.Errno) {
 		return Map{}, e
 	}
 	g := gridOf(m)
-	g.cells = common.Mapped(g.cells, func(n int) int { return rounded(n*num, den) })
+	g.cells = common.Mapped(g.cells, func(n int) int { return common.Rounded(n*num, den) })
 	return g.toMap()
-}
-
-// rounded returns the nearest integer of a / b, for b above 0; from the middle
-// the greater one.
-func rounded(a, b int) int {
-	return lowered(2*a+b, 2*b)
-}
-
-// lowered returns a / b rounded down, for b above 0.
-func lowered(a, b int) int {
-	q := a / b
-	if a%b < 0 {
-		q--
-	}
-	return q
 }
 
 // Spread returns the map that is spread by a share.
@@ -53,7 +38,7 @@ func Spread(m Map, share int) (Map, api.Errno) {
 	out := g
 	out.cells = slices.Clone(g.cells)
 	for p := range common.Places(g.width, g.height) {
-		gift := lowered(g.at(p)*share, 16)
+		gift := common.Lowered(g.at(p)*share, 16)
 		for _, q := range neighbours(g, p) {
 			out.cells[g.index(p)] -= gift
 			out.cells[g.index(q)] += gift
@@ -66,8 +51,7 @@ func Spread(m Map, share int) (Map, api.Errno) {
 // are some.
 func neighbours(g grid, p api.Point) []api.Point {
 	var l []api.Point
-	for _, d := range [4]api.Point{{X: -1}, {X: 1}, {Y: -1}, {Y: 1}} {
-		q := api.Point{X: p.X + d.X, Y: p.Y + d.Y}
+	for _, q := range common.Beside(p) {
 		if g.has(q) {
 			l = append(l, q)
 		}

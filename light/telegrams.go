@@ -150,10 +150,7 @@ func telegramAt(s []byte, at int) (Telegram, bool) {
 
 // Lost returns the counters of a station that are lost.
 func Lost(l []Telegram, station int) ([]int, api.Errno) {
-	if len(l) > MaxTelegrams {
-		return nil, api.ErrMany
-	}
-	if e := common.First(append(common.Mapped(l, checkTelegram), common.CheckRange(station, 0, maxByte))...); e != api.OK {
+	if e := common.First(common.CheckList(l, MaxTelegrams, checkTelegram), common.CheckRange(station, 0, maxByte)); e != api.OK {
 		return nil, e
 	}
 	lost := missing(countersOf(l, station), api.MaxList+1)
