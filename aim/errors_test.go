@@ -11,25 +11,12 @@ import (
 // P5.1 to P5.5: the errors of arguments, which all functions have in common.
 
 func TestRightArguments(t *testing.T) {
-	for _, x := range calls() {
-		wanted := api.OK
-		if x.what == "Exceeds" {
-			wanted = api.ErrNone
-		}
-		_, e := x.do(rightArguments())
-		expect.Err(t, x.what, e, wanted)
-	}
+	expect.RightArguments(t, calls(), rightArguments)
 }
 
 // TestTheFirstWrongArgumentDecides checks each fault of each argument, alone and before faults of the arguments behind it.
 func TestTheFirstWrongArgumentDecides(t *testing.T) {
-	faults := faults()
-	for _, x := range calls() {
-		expect.FirstFault(t, x.what, x.takes, rightArguments, faults, func(a arguments) (bool, api.Errno) {
-			results, e := x.do(a)
-			return isNothing(results), e
-		})
-	}
+	expect.FirstFaults(t, calls(), rightArguments, faults(), isNothing)
 }
 
 // TestErrorsOfArgumentsComeFirst checks that an argument that is wrong decides before a plan that is not right, and before a search that is too large.

@@ -253,46 +253,33 @@ func faults() map[string][]fault {
 	}
 }
 
-// call is a function with the names of what it takes, in their order.
-type call struct {
-	what  string
-	takes []string
-	do    func(a arguments) ([]any, api.Errno)
-}
-
-func none(e api.Errno) ([]any, api.Errno) { return nil, e }
-
-func one[T any](x T, e api.Errno) ([]any, api.Errno) { return []any{x}, e }
-
-func two[T, U any](x T, y U, e api.Errno) ([]any, api.Errno) { return []any{x, y}, e }
-
-func calls() []call {
+func calls() []expect.Call[arguments] {
 	single := []string{"receiver", "spot", "index"}
 	plan := []string{"receiver", "spots", "plan"}
 	plans := append(plan[:3:3], "second")
-	return []call{
-		{"CheckReceiver", single[:1], func(a arguments) ([]any, api.Errno) { return none(aim.CheckReceiver(a.r)) }},
-		{"CheckSpots", plan[:2], func(a arguments) ([]any, api.Errno) { return none(aim.CheckSpots(a.r, a.l)) }},
-		{"Share", single, func(a arguments) ([]any, api.Errno) { return two(aim.Share(a.r, a.s, a.index)) }},
-		{"Least", single, func(a arguments) ([]any, api.Errno) { return one(aim.Least(a.r, a.s, a.index)) }},
-		{"Worst", single, func(a arguments) ([]any, api.Errno) { return one(aim.Worst(a.r, a.s, a.index)) }},
-		{"Flux", plan, func(a arguments) ([]any, api.Errno) { return one(aim.Flux(a.r, a.l, a.p)) }},
-		{"Peak", plan, func(a arguments) ([]any, api.Errno) { return one(aim.Peak(a.r, a.l, a.p)) }},
-		{"CheckPlan", plan, func(a arguments) ([]any, api.Errno) { return none(aim.CheckPlan(a.r, a.l, a.p)) }},
-		{"Exceeds", plan, func(a arguments) ([]any, api.Errno) { return one(aim.Exceeds(a.r, a.l, a.p)) }},
-		{"Light", plan, func(a arguments) ([]any, api.Errno) { return one(aim.Light(a.r, a.l, a.p)) }},
-		{"Spilled", plan, func(a arguments) ([]any, api.Errno) { return one(aim.Spilled(a.r, a.l, a.p)) }},
-		{"Plan", plan[:2], func(a arguments) ([]any, api.Errno) { return one(aim.Plan(a.r, a.l)) }},
-		{"Bound", []string{"receiver", "spots", "prices"}, func(a arguments) ([]any, api.Errno) { return one(aim.Bound(a.r, a.l, a.prices)) }},
-		{"Gap", append(plan[:3:3], "prices"), func(a arguments) ([]any, api.Errno) { return one(aim.Gap(a.r, a.l, a.p, a.prices)) }},
-		{"Released", plan, func(a arguments) ([]any, api.Errno) { return one(aim.Released(a.r, a.l, a.p)) }},
-		{"Steps", plans, func(a arguments) ([]any, api.Errno) { return one(aim.Steps(a.r, a.l, a.p, a.q)) }},
-		{"CheckSteps", append(plans[:4:4], "order"), func(a arguments) ([]any, api.Errno) {
-			return none(aim.CheckSteps(a.r, a.l, a.p, a.q, a.order))
+	return []expect.Call[arguments]{
+		{What: "CheckReceiver", Takes: single[:1], Do: func(a arguments) ([]any, api.Errno) { return expect.None(aim.CheckReceiver(a.r)) }},
+		{What: "CheckSpots", Takes: plan[:2], Do: func(a arguments) ([]any, api.Errno) { return expect.None(aim.CheckSpots(a.r, a.l)) }},
+		{What: "Share", Takes: single, Do: func(a arguments) ([]any, api.Errno) { return expect.Two(aim.Share(a.r, a.s, a.index)) }},
+		{What: "Least", Takes: single, Do: func(a arguments) ([]any, api.Errno) { return expect.One(aim.Least(a.r, a.s, a.index)) }},
+		{What: "Worst", Takes: single, Do: func(a arguments) ([]any, api.Errno) { return expect.One(aim.Worst(a.r, a.s, a.index)) }},
+		{What: "Flux", Takes: plan, Do: func(a arguments) ([]any, api.Errno) { return expect.One(aim.Flux(a.r, a.l, a.p)) }},
+		{What: "Peak", Takes: plan, Do: func(a arguments) ([]any, api.Errno) { return expect.One(aim.Peak(a.r, a.l, a.p)) }},
+		{What: "CheckPlan", Takes: plan, Do: func(a arguments) ([]any, api.Errno) { return expect.None(aim.CheckPlan(a.r, a.l, a.p)) }},
+		{What: "Exceeds", Takes: plan, Err: api.ErrNone, Do: func(a arguments) ([]any, api.Errno) { return expect.One(aim.Exceeds(a.r, a.l, a.p)) }},
+		{What: "Light", Takes: plan, Do: func(a arguments) ([]any, api.Errno) { return expect.One(aim.Light(a.r, a.l, a.p)) }},
+		{What: "Spilled", Takes: plan, Do: func(a arguments) ([]any, api.Errno) { return expect.One(aim.Spilled(a.r, a.l, a.p)) }},
+		{What: "Plan", Takes: plan[:2], Do: func(a arguments) ([]any, api.Errno) { return expect.One(aim.Plan(a.r, a.l)) }},
+		{What: "Bound", Takes: []string{"receiver", "spots", "prices"}, Do: func(a arguments) ([]any, api.Errno) { return expect.One(aim.Bound(a.r, a.l, a.prices)) }},
+		{What: "Gap", Takes: append(plan[:3:3], "prices"), Do: func(a arguments) ([]any, api.Errno) { return expect.One(aim.Gap(a.r, a.l, a.p, a.prices)) }},
+		{What: "Released", Takes: plan, Do: func(a arguments) ([]any, api.Errno) { return expect.One(aim.Released(a.r, a.l, a.p)) }},
+		{What: "Steps", Takes: plans, Do: func(a arguments) ([]any, api.Errno) { return expect.One(aim.Steps(a.r, a.l, a.p, a.q)) }},
+		{What: "CheckSteps", Takes: append(plans[:4:4], "order"), Do: func(a arguments) ([]any, api.Errno) {
+			return expect.None(aim.CheckSteps(a.r, a.l, a.p, a.q, a.order))
 		}},
-		{"Differences", plans[1:], func(a arguments) ([]any, api.Errno) { return one(aim.Differences(a.l, a.p, a.q)) }},
-		{"Print", plan[1:], func(a arguments) ([]any, api.Errno) { return one(aim.Print(a.l, a.p)) }},
-		{"Parse", plan[1:2], func(a arguments) ([]any, api.Errno) { return two(aim.Parse(a.l, "aim s 0 0\naim t none\n")) }},
+		{What: "Differences", Takes: plans[1:], Do: func(a arguments) ([]any, api.Errno) { return expect.One(aim.Differences(a.l, a.p, a.q)) }},
+		{What: "Print", Takes: plan[1:], Do: func(a arguments) ([]any, api.Errno) { return expect.One(aim.Print(a.l, a.p)) }},
+		{What: "Parse", Takes: plan[1:2], Do: func(a arguments) ([]any, api.Errno) { return expect.Two(aim.Parse(a.l, "aim s 0 0\naim t none\n")) }},
 	}
 }
 

@@ -9,6 +9,7 @@ import (
 
 	"spillage/aim"
 	"spillage/api"
+	"spillage/expect"
 	"spillage/light"
 )
 
@@ -47,19 +48,13 @@ func hostileLists() [][]int {
 	return l
 }
 
-func callAll(a arguments) {
-	for _, x := range calls() {
-		x.do(a)
-	}
-}
-
 func TestNoPanicOfReceivers(t *testing.T) {
 	for _, r := range hostileReceivers() {
 		a := rightArguments()
 		a.r = r
-		callAll(a)
+		expect.CallAll(calls(), a)
 		a.p, a.l, a.prices = flat(8, 0), pixels(8, 1000), flat(64, 100000)
-		callAll(a)
+		expect.CallAll(calls(), a)
 	}
 }
 
@@ -68,17 +63,17 @@ func TestNoPanicOfSpots(t *testing.T) {
 		for _, r := range []aim.Receiver{{}, shown(60), receiver(8, 8, flat(64, 1000000)...)} {
 			a := rightArguments()
 			a.r, a.s, a.l = r, x, spots(x, spotT())
-			callAll(a)
+			expect.CallAll(calls(), a)
 			a.l = spots(x, x)
-			callAll(a)
+			expect.CallAll(calls(), a)
 		}
 	}
 	for _, l := range [][]aim.Spot{nil, make([]aim.Spot, 2), make([]aim.Spot, 33), make([]aim.Spot, 10000), pixels(32, 1000)} {
 		a := rightArguments()
 		a.l = l
-		callAll(a)
+		expect.CallAll(calls(), a)
 		a.p, a.q = make([]int, len(l)), make([]int, len(l))
-		callAll(a)
+		expect.CallAll(calls(), a)
 	}
 }
 
@@ -87,15 +82,13 @@ func TestNoPanicOfLists(t *testing.T) {
 		for _, change := range []func(a *arguments){
 			func(a *arguments) { a.p = l }, func(a *arguments) { a.q = l }, func(a *arguments) { a.prices = l }, func(a *arguments) { a.order = l }, func(a *arguments) { a.p, a.q, a.prices, a.order = l, l, l, l }, func(a *arguments) { a.l = make([]aim.Spot, len(l)) }, func(a *arguments) { a.r.Limits = l },
 		} {
-			a := rightArguments()
-			change(&a)
-			callAll(a)
+			expect.CallAfter(calls(), rightArguments, change)
 		}
 	}
 	for _, n := range hostileNumbers() {
 		a := rightArguments()
 		a.index = n
-		callAll(a)
+		expect.CallAll(calls(), a)
 		for _, m := range hostileNumbers() {
 			aim.Limits([]aim.Step{{Heat: 5, Limit: 5}, {Heat: n, Limit: m}}, ints(n, m))
 			aim.Limits([]aim.Step{{Heat: n, Limit: m}}, ints(0))
@@ -148,7 +141,7 @@ func TestArgumentsStay(t *testing.T) {
 	for _, a := range []arguments{rightArguments(), hot} {
 		before := cloned(a)
 		for _, x := range calls() {
-			first, e := x.do(a)
+			first, e := x.Do(a)
 			wanted := slices.Clone(first)
 			for i, part := range wanted {
 				if l, ok := part.([]int); ok {
@@ -157,11 +150,11 @@ func TestArgumentsStay(t *testing.T) {
 			}
 			spoilt(first)
 			if !reflect.DeepEqual(a, before) {
-				t.Fatalf("%s changes its arguments, or shares memory with them", x.what)
+				t.Fatalf("%s changes its arguments, or shares memory with them", x.What)
 			}
-			again, f := x.do(a)
+			again, f := x.Do(a)
 			if !reflect.DeepEqual(again, wanted) || e != f {
-				t.Errorf("%s: %v, error %d, and again %v, error %d", x.what, wanted, e, again, f)
+				t.Errorf("%s: %v, error %d, and again %v, error %d", x.What, wanted, e, again, f)
 			}
 		}
 	}

@@ -101,19 +101,16 @@ func checkTable(table []Step) api.Errno {
 	if e := common.CheckLength(len(table), MaxSteps); e != api.OK {
 		return e
 	}
-	before := Step{Heat: -1, Limit: MaxLimit}
-	for _, x := range table {
-		e := common.First(
-			common.CheckRange(x.Heat, 0, MaxHeat),
-			common.CheckRange(x.Limit, 0, MaxLimit),
-			common.When(x.Heat <= before.Heat || x.Limit > before.Limit, api.ErrOrder),
-		)
-		if e != api.OK {
-			return e
-		}
-		before = x
-	}
-	return api.OK
+	return common.CheckAscending(table, checkStep, func(before, x Step) bool {
+		return before.Heat < x.Heat && before.Limit >= x.Limit
+	})
+}
+
+func checkStep(x Step) api.Errno {
+	return common.First(
+		common.CheckRange(x.Heat, 0, MaxHeat),
+		common.CheckRange(x.Limit, 0, MaxLimit),
+	)
 }
 
 // Limits returns the limits of tiles by their temperatures.

@@ -12,21 +12,12 @@ import (
 // P6.1 to P6.5: the errors of arguments, which all functions have in common.
 
 func TestRightArguments(t *testing.T) {
-	for _, x := range calls() {
-		_, e := x.do(rightArguments())
-		expect.Err(t, x.what, e, x.e)
-	}
+	expect.RightArguments(t, calls(), rightArguments)
 }
 
 // TestTheFirstWrongArgumentDecides checks each fault of each argument, alone and before faults of the arguments behind it.
 func TestTheFirstWrongArgumentDecides(t *testing.T) {
-	faults := faults()
-	for _, x := range calls() {
-		expect.FirstFault(t, x.what, x.takes, rightArguments, faults, func(a arguments) (bool, api.Errno) {
-			results, e := x.do(a)
-			return isNothing(results), e
-		})
-	}
+	expect.FirstFaults(t, calls(), rightArguments, faults(), isNothing)
 }
 
 // TestErrorsOfTheStatesComeLast checks that an argument that is wrong decides before what its function finds.

@@ -495,46 +495,32 @@ func faults() map[string][]fault {
 	}
 }
 
-// call is a function with the names of what it takes, in their order, and the error of the right arguments.
-type call struct {
-	what  string
-	takes []string
-	e     api.Errno
-	do    func(a arguments) ([]any, api.Errno)
-}
-
-func none(e api.Errno) ([]any, api.Errno) { return nil, e }
-
-func one[T any](x T, e api.Errno) ([]any, api.Errno) { return []any{x}, e }
-
-func two[T, U any](x T, y U, e api.Errno) ([]any, api.Errno) { return []any{x, y}, e }
-
-func calls() []call {
+func calls() []expect.Call[arguments] {
 	grid, field := []string{"grid"}, []string{"grid", "field"}
 	pair := []string{"grid", "from", "to"}
 	with := func(last string) []string { return append(slices.Clone(field), last) }
-	return []call{
-		{"CheckGrid", grid, api.OK, func(a arguments) ([]any, api.Errno) { return none(beam.CheckGrid(a.g)) }},
-		{"Touches", []string{"zone", "blur", "line"}, api.OK, func(a arguments) ([]any, api.Errno) { return one(beam.Touches(a.z, a.blur, a.line)) }},
-		{"SafeMoves", grid, api.OK, func(a arguments) ([]any, api.Errno) { return one(beam.SafeMoves(a.g)) }},
-		{"Reached", pair[:2], api.OK, func(a arguments) ([]any, api.Errno) { return one(beam.Reached(a.g, a.from)) }},
-		{"Way", pair, api.OK, func(a arguments) ([]any, api.Errno) { return two(beam.Way(a.g, a.from, a.to)) }},
-		{"Steps", []string{"grid", "way"}, api.OK, func(a arguments) ([]any, api.Errno) { return one(beam.Steps(a.g, a.way)) }},
-		{"Barrier", pair, api.ErrRule, func(a arguments) ([]any, api.Errno) { return one(beam.Barrier(a.g, a.from, a.to)) }},
-		{"CheckBarrier", append(slices.Clone(pair), "set"), api.ErrProof, func(a arguments) ([]any, api.Errno) { return none(beam.CheckBarrier(a.g, a.from, a.to, a.set)) }},
-		{"Homes", grid, api.OK, func(a arguments) ([]any, api.Errno) { return one(beam.Homes(a.g)) }},
-		{"CheckField", field, api.OK, func(a arguments) ([]any, api.Errno) { return none(beam.CheckField(a.g, a.f)) }},
-		{"Heard", with("order"), api.OK, func(a arguments) ([]any, api.Errno) { return one(beam.Heard(a.g, a.f, a.o)) }},
-		{"Stepped", field, api.OK, func(a arguments) ([]any, api.Errno) { return one(beam.Stepped(a.g, a.f)) }},
-		{"Run", with("rounds"), api.OK, func(a arguments) ([]any, api.Errno) { return one(beam.Run(a.g, a.f, a.rounds)) }},
-		{"Deadline", field, api.OK, func(a arguments) ([]any, api.Errno) { return one(beam.Deadline(a.g, a.f)) }},
-		{"Lit", field, api.OK, func(a arguments) ([]any, api.Errno) { return one(beam.Lit(a.g, a.f)) }},
-		{"Dark", field, api.OK, func(a arguments) ([]any, api.Errno) { return one(beam.Dark(a.g, a.f)) }},
-		{"Joined", with("new"), api.OK, func(a arguments) ([]any, api.Errno) { return one(beam.Joined(a.g, a.f, a.m)) }},
-		{"Taken", with("name"), api.OK, func(a arguments) ([]any, api.Errno) { return one(beam.Taken(a.g, a.f, a.name)) }},
-		{"Sector", with("sector"), api.OK, func(a arguments) ([]any, api.Errno) { return one(beam.Sector(a.g, a.f, a.sector)) }},
-		{"Defocused", with("sector"), api.OK, func(a arguments) ([]any, api.Errno) { return one(beam.Defocused(a.g, a.f, a.sector)) }},
-		{"Print", grid, api.OK, func(a arguments) ([]any, api.Errno) { return one(beam.Print(a.g)) }},
+	return []expect.Call[arguments]{
+		{What: "CheckGrid", Takes: grid, Do: func(a arguments) ([]any, api.Errno) { return expect.None(beam.CheckGrid(a.g)) }},
+		{What: "Touches", Takes: []string{"zone", "blur", "line"}, Do: func(a arguments) ([]any, api.Errno) { return expect.One(beam.Touches(a.z, a.blur, a.line)) }},
+		{What: "SafeMoves", Takes: grid, Do: func(a arguments) ([]any, api.Errno) { return expect.One(beam.SafeMoves(a.g)) }},
+		{What: "Reached", Takes: pair[:2], Do: func(a arguments) ([]any, api.Errno) { return expect.One(beam.Reached(a.g, a.from)) }},
+		{What: "Way", Takes: pair, Do: func(a arguments) ([]any, api.Errno) { return expect.Two(beam.Way(a.g, a.from, a.to)) }},
+		{What: "Steps", Takes: []string{"grid", "way"}, Do: func(a arguments) ([]any, api.Errno) { return expect.One(beam.Steps(a.g, a.way)) }},
+		{What: "Barrier", Takes: pair, Err: api.ErrRule, Do: func(a arguments) ([]any, api.Errno) { return expect.One(beam.Barrier(a.g, a.from, a.to)) }},
+		{What: "CheckBarrier", Takes: append(slices.Clone(pair), "set"), Err: api.ErrProof, Do: func(a arguments) ([]any, api.Errno) { return expect.None(beam.CheckBarrier(a.g, a.from, a.to, a.set)) }},
+		{What: "Homes", Takes: grid, Do: func(a arguments) ([]any, api.Errno) { return expect.One(beam.Homes(a.g)) }},
+		{What: "CheckField", Takes: field, Do: func(a arguments) ([]any, api.Errno) { return expect.None(beam.CheckField(a.g, a.f)) }},
+		{What: "Heard", Takes: with("order"), Do: func(a arguments) ([]any, api.Errno) { return expect.One(beam.Heard(a.g, a.f, a.o)) }},
+		{What: "Stepped", Takes: field, Do: func(a arguments) ([]any, api.Errno) { return expect.One(beam.Stepped(a.g, a.f)) }},
+		{What: "Run", Takes: with("rounds"), Do: func(a arguments) ([]any, api.Errno) { return expect.One(beam.Run(a.g, a.f, a.rounds)) }},
+		{What: "Deadline", Takes: field, Do: func(a arguments) ([]any, api.Errno) { return expect.One(beam.Deadline(a.g, a.f)) }},
+		{What: "Lit", Takes: field, Do: func(a arguments) ([]any, api.Errno) { return expect.One(beam.Lit(a.g, a.f)) }},
+		{What: "Dark", Takes: field, Do: func(a arguments) ([]any, api.Errno) { return expect.One(beam.Dark(a.g, a.f)) }},
+		{What: "Joined", Takes: with("new"), Do: func(a arguments) ([]any, api.Errno) { return expect.One(beam.Joined(a.g, a.f, a.m)) }},
+		{What: "Taken", Takes: with("name"), Do: func(a arguments) ([]any, api.Errno) { return expect.One(beam.Taken(a.g, a.f, a.name)) }},
+		{What: "Sector", Takes: with("sector"), Do: func(a arguments) ([]any, api.Errno) { return expect.One(beam.Sector(a.g, a.f, a.sector)) }},
+		{What: "Defocused", Takes: with("sector"), Do: func(a arguments) ([]any, api.Errno) { return expect.One(beam.Defocused(a.g, a.f, a.sector)) }},
+		{What: "Print", Takes: grid, Do: func(a arguments) ([]any, api.Errno) { return expect.One(beam.Print(a.g)) }},
 	}
 }
 

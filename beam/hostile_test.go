@@ -9,6 +9,7 @@ import (
 
 	"spillage/api"
 	"spillage/beam"
+	"spillage/expect"
 )
 
 // P1: no function panics, for whatever arguments; each result depends on them alone.
@@ -17,19 +18,9 @@ func hostileNumbers() []int {
 	return []int{math.MinInt, math.MinInt + 1, -1 << 32, -1001, -2, -1, 0, 1, 3, 4, 5, 6, 15, 16, 17, 20, 21, 40, 41, 100, 101, 256, 500, 501, 1000, 1001, api.MaxTick, api.MaxTick + 1, 1 << 32, 1<<32 + 1, math.MaxInt - 1, math.MaxInt}
 }
 
-func callAll(a arguments) {
-	for _, x := range calls() {
-		x.do(a)
-	}
-}
-
 // spoiltBy calls all functions with the right arguments after each of some changes.
 func spoiltBy(changes ...func(a *arguments)) {
-	for _, change := range changes {
-		a := rightArguments()
-		change(&a)
-		callAll(a)
-	}
+	expect.CallAfter(calls(), rightArguments, changes...)
 }
 
 func TestNoPanicOfNumbers(t *testing.T) {
@@ -133,20 +124,20 @@ func TestArgumentsStay(t *testing.T) {
 	for _, a := range []arguments{rightArguments(), long} {
 		before := cloned(a)
 		for _, x := range calls() {
-			first, e := x.do(a)
+			first, e := x.Do(a)
 			wanted := clonedResults(first)
 			spoilt(first)
 			if !reflect.DeepEqual(cloned(a), before) {
-				t.Fatalf("%s changes its arguments, or shares memory with them", x.what)
+				t.Fatalf("%s changes its arguments, or shares memory with them", x.What)
 			}
 			for _, m := range append(a.f.Mirrors, a.m) {
 				if l := m.Way[:cap(m.Way)]; len(l) > 0 && slices.Max(l) >= 1000 {
-					t.Fatalf("%s shares memory with its arguments", x.what)
+					t.Fatalf("%s shares memory with its arguments", x.What)
 				}
 			}
-			again, f := x.do(a)
+			again, f := x.Do(a)
 			if !reflect.DeepEqual(clonedResults(again), wanted) || e != f {
-				t.Errorf("%s: %v, error %d, and again %v, error %d", x.what, wanted, e, again, f)
+				t.Errorf("%s: %v, error %d, and again %v, error %d", x.What, wanted, e, again, f)
 			}
 		}
 	}

@@ -12,21 +12,12 @@ import (
 // P7.1 to P7.5: the errors of arguments, which all functions have in common.
 
 func TestRightArguments(t *testing.T) {
-	for _, x := range calls() {
-		_, e := x.do(rightArguments())
-		expect.Err(t, x.what, e, api.OK)
-	}
+	expect.RightArguments(t, calls(), rightArguments)
 }
 
 // TestTheFirstWrongArgumentDecides checks each fault of each argument, alone and before faults of the arguments behind it.
 func TestTheFirstWrongArgumentDecides(t *testing.T) {
-	faults := faults()
-	for _, x := range calls() {
-		expect.FirstFault(t, x.what, x.takes, rightArguments, faults, func(a arguments) (bool, api.Errno) {
-			results, e := x.do(a)
-			return isNothing(results), e
-		})
-	}
+	expect.FirstFaults(t, calls(), rightArguments, faults(), isNothing)
 }
 
 // TestErrorsOfTwoImages checks that other widths or heights decide after the errors of both images, and before all other arguments.

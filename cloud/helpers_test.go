@@ -270,54 +270,45 @@ func sunFaults() []fault {
 	)
 }
 
-// call is a function with the names of what it takes, in their order.
-type call struct {
-	what  string
-	takes []string
-	do    func(a arguments) ([]any, api.Errno)
-}
-
-func none(e api.Errno) ([]any, api.Errno) { return nil, e }
-
-func one[T any](x T, e api.Errno) ([]any, api.Errno) { return []any{x}, e }
-
-func two[T, U any](x T, y U, e api.Errno) ([]any, api.Errno) { return []any{x, y}, e }
-
-func calls() []call {
+func calls() []expect.Call[arguments] {
 	list := func(l ...string) []string { return l }
-	return []call{
-		{"CheckImage", list("image"), func(a arguments) ([]any, api.Errno) { return none(cloud.CheckImage(a.image)) }},
-		{"Dark", list("image", "limit"), func(a arguments) ([]any, api.Errno) { return one(cloud.Dark(a.image, a.limit)) }},
-		{"Clouds", list("image", "limit"), func(a arguments) ([]any, api.Errno) { return one(cloud.Clouds(a.image, a.limit)) }},
-		{"Centre", list("cloud"), func(a arguments) ([]any, api.Errno) { return one(cloud.Centre(a.cloud)) }},
-		{"Share", list("image", "limit"), func(a arguments) ([]any, api.Errno) { return one(cloud.Share(a.image, a.limit)) }},
-		{"Panel", list("image"), func(a arguments) ([]any, api.Errno) { return one(cloud.Panel(a.image)) }},
-		{"Difference", list("image", "other", "shift"), func(a arguments) ([]any, api.Errno) { return two(cloud.Difference(a.image, a.other, a.shift)) }},
-		{"Shift", list("image", "other", "most", "least"), func(a arguments) ([]any, api.Errno) { return two(cloud.Shift(a.image, a.other, a.most, a.least)) }},
-		{"Second", list("image", "other", "most", "least"), func(a arguments) ([]any, api.Errno) { return one(cloud.Second(a.image, a.other, a.most, a.least)) }},
-		{"CheckDrift", list("drift"), func(a arguments) ([]any, api.Errno) { return none(cloud.CheckDrift(a.drift)) }},
-		{"Seen", list("image", "other", "most", "least", "ticks", "blur"), func(a arguments) ([]any, api.Errno) {
-			return one(cloud.Seen(a.image, a.other, a.most, a.least, a.ticks, a.blur))
+	return []expect.Call[arguments]{
+		{What: "CheckImage", Takes: list("image"), Do: func(a arguments) ([]any, api.Errno) { return expect.None(cloud.CheckImage(a.image)) }},
+		{What: "Dark", Takes: list("image", "limit"), Do: func(a arguments) ([]any, api.Errno) { return expect.One(cloud.Dark(a.image, a.limit)) }},
+		{What: "Clouds", Takes: list("image", "limit"), Do: func(a arguments) ([]any, api.Errno) { return expect.One(cloud.Clouds(a.image, a.limit)) }},
+		{What: "Centre", Takes: list("cloud"), Do: func(a arguments) ([]any, api.Errno) { return expect.One(cloud.Centre(a.cloud)) }},
+		{What: "Share", Takes: list("image", "limit"), Do: func(a arguments) ([]any, api.Errno) { return expect.One(cloud.Share(a.image, a.limit)) }},
+		{What: "Panel", Takes: list("image"), Do: func(a arguments) ([]any, api.Errno) { return expect.One(cloud.Panel(a.image)) }},
+		{What: "Difference", Takes: list("image", "other", "shift"), Do: func(a arguments) ([]any, api.Errno) { return expect.Two(cloud.Difference(a.image, a.other, a.shift)) }},
+		{What: "Shift", Takes: list("image", "other", "most", "least"), Do: func(a arguments) ([]any, api.Errno) {
+			return expect.Two(cloud.Shift(a.image, a.other, a.most, a.least))
 		}},
-		{"Both", list("drift", "second"), func(a arguments) ([]any, api.Errno) { return one(cloud.Both(a.drift, a.second)) }},
-		{"Motions", list("drift"), func(a arguments) ([]any, api.Errno) { return one(cloud.Motions(a.drift)) }},
-		{"Moved", list("motion", "ticks", "t"), func(a arguments) ([]any, api.Errno) { return one(cloud.Moved(a.motion, a.ticks, a.t)) }},
-		{"Covered", list("image", "limit", "motion", "ticks", "t"), func(a arguments) ([]any, api.Errno) {
-			return one(cloud.Covered(a.image, a.limit, a.motion, a.ticks, a.t))
+		{What: "Second", Takes: list("image", "other", "most", "least"), Do: func(a arguments) ([]any, api.Errno) {
+			return expect.One(cloud.Second(a.image, a.other, a.most, a.least))
 		}},
-		{"May", list("image", "limit", "drift", "t", "cells"), func(a arguments) ([]any, api.Errno) {
-			return one(cloud.May(a.image, a.limit, a.drift, a.t, a.cells))
+		{What: "CheckDrift", Takes: list("drift"), Do: func(a arguments) ([]any, api.Errno) { return expect.None(cloud.CheckDrift(a.drift)) }},
+		{What: "Seen", Takes: list("image", "other", "most", "least", "ticks", "blur"), Do: func(a arguments) ([]any, api.Errno) {
+			return expect.One(cloud.Seen(a.image, a.other, a.most, a.least, a.ticks, a.blur))
 		}},
-		{"Must", list("image", "limit", "drift", "t", "cells"), func(a arguments) ([]any, api.Errno) {
-			return one(cloud.Must(a.image, a.limit, a.drift, a.t, a.cells))
+		{What: "Both", Takes: list("drift", "second"), Do: func(a arguments) ([]any, api.Errno) { return expect.One(cloud.Both(a.drift, a.second)) }},
+		{What: "Motions", Takes: list("drift"), Do: func(a arguments) ([]any, api.Errno) { return expect.One(cloud.Motions(a.drift)) }},
+		{What: "Moved", Takes: list("motion", "ticks", "t"), Do: func(a arguments) ([]any, api.Errno) { return expect.One(cloud.Moved(a.motion, a.ticks, a.t)) }},
+		{What: "Covered", Takes: list("image", "limit", "motion", "ticks", "t"), Do: func(a arguments) ([]any, api.Errno) {
+			return expect.One(cloud.Covered(a.image, a.limit, a.motion, a.ticks, a.t))
 		}},
-		{"Window", list("image", "limit", "drift", "cell", "horizon"), func(a arguments) ([]any, api.Errno) {
-			return one(cloud.Window(a.image, a.limit, a.drift, a.cell, a.horizon))
+		{What: "May", Takes: list("image", "limit", "drift", "t", "cells"), Do: func(a arguments) ([]any, api.Errno) {
+			return expect.One(cloud.May(a.image, a.limit, a.drift, a.t, a.cells))
 		}},
-		{"Shadow", list("height", "sun"), func(a arguments) ([]any, api.Errno) { return one(cloud.Shadow(a.height, a.sun)) }},
-		{"Cross", list("segment", "crossing"), func(a arguments) ([]any, api.Errno) { return one(cloud.Cross(a.segment, a.crossing)) }},
-		{"Alarms", list("track", "beams"), func(a arguments) ([]any, api.Errno) { return one(cloud.Alarms(a.track, a.beams)) }},
-		{"Print", list("drift"), func(a arguments) ([]any, api.Errno) { return one(cloud.Print(a.drift)) }},
+		{What: "Must", Takes: list("image", "limit", "drift", "t", "cells"), Do: func(a arguments) ([]any, api.Errno) {
+			return expect.One(cloud.Must(a.image, a.limit, a.drift, a.t, a.cells))
+		}},
+		{What: "Window", Takes: list("image", "limit", "drift", "cell", "horizon"), Do: func(a arguments) ([]any, api.Errno) {
+			return expect.One(cloud.Window(a.image, a.limit, a.drift, a.cell, a.horizon))
+		}},
+		{What: "Shadow", Takes: list("height", "sun"), Do: func(a arguments) ([]any, api.Errno) { return expect.One(cloud.Shadow(a.height, a.sun)) }},
+		{What: "Cross", Takes: list("segment", "crossing"), Do: func(a arguments) ([]any, api.Errno) { return expect.One(cloud.Cross(a.segment, a.crossing)) }},
+		{What: "Alarms", Takes: list("track", "beams"), Do: func(a arguments) ([]any, api.Errno) { return expect.One(cloud.Alarms(a.track, a.beams)) }},
+		{What: "Print", Takes: list("drift"), Do: func(a arguments) ([]any, api.Errno) { return expect.One(cloud.Print(a.drift)) }},
 	}
 }
 

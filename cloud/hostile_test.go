@@ -9,6 +9,7 @@ import (
 
 	"spillage/api"
 	"spillage/cloud"
+	"spillage/expect"
 	"spillage/light"
 )
 
@@ -18,19 +19,9 @@ func hostileNumbers() []int {
 	return []int{math.MinInt, math.MinInt + 1, -1 << 32, -100001, -100000, -4097, -1001, -1000, -9, -1, 0, 1, 2, 4, 5, 8, 9, 63, 64, 65, 255, 256, 257, 1000, 1001, 4096, 4097, 10000, 10001, 100000, 100001, 1 << 32, 1<<32 + 1, math.MaxInt - 1, math.MaxInt}
 }
 
-func callAll(a arguments) {
-	for _, x := range calls() {
-		x.do(a)
-	}
-}
-
 // spoiltBy calls all functions with the right arguments after each of some changes.
 func spoiltBy(changes ...func(a *arguments)) {
-	for _, change := range changes {
-		a := rightArguments()
-		change(&a)
-		callAll(a)
-	}
+	expect.CallAfter(calls(), rightArguments, changes...)
 }
 
 func TestNoPanicOfNumbers(t *testing.T) {
@@ -131,15 +122,15 @@ func TestArgumentsStay(t *testing.T) {
 	for _, a := range []arguments{rightArguments(), rich} {
 		before := cloned(a)
 		for _, x := range calls() {
-			first, e := x.do(a)
+			first, e := x.Do(a)
 			wanted := clonedResults(first)
 			spoil(first)
 			if !reflect.DeepEqual(cloned(a), before) || slices.Contains(a.cells[:cap(a.cells)], at(-7, -7)) || slices.Contains(a.cloud[:cap(a.cloud)], at(-7, -7)) {
-				t.Fatalf("%s changes its arguments, or shares memory with them", x.what)
+				t.Fatalf("%s changes its arguments, or shares memory with them", x.What)
 			}
-			again, f := x.do(a)
+			again, f := x.Do(a)
 			if !reflect.DeepEqual(clonedResults(again), wanted) || e != f {
-				t.Errorf("%s: %v, error %d, and again %v, error %d", x.what, wanted, e, again, f)
+				t.Errorf("%s: %v, error %d, and again %v, error %d", x.What, wanted, e, again, f)
 			}
 		}
 	}

@@ -46,12 +46,8 @@ func Parse(s string) (Drift, api.Errno) {
 
 // readDrift returns the drift of a line, or false if it does not have its form.
 func readDrift(line string) (Drift, bool) {
-	left, ok := common.WordsOf(line, kind)
+	l, ok := common.NumbersOf(line, kind, len(numbers()), common.Integer)
 	if !ok {
-		return Drift{}, false
-	}
-	l, ok := common.Integers(left.Next)
-	if !ok || len(l) != len(numbers()) {
 		return Drift{}, false
 	}
 	var d Drift

@@ -75,6 +75,18 @@ func CheckDistinct[T any, K comparable](l []T, most int, check func(T) api.Errno
 	return api.OK
 }
 
+// CheckAscending returns the error of the first element with one: that of the
+// check, or ErrOrder if the element before it is not below it.
+func CheckAscending[T any](l []T, check func(T) api.Errno, isBelow func(T, T) bool) api.Errno {
+	for i, x := range l {
+		e := First(check(x), When(i > 0 && !isBelow(l[i-1], x), api.ErrOrder))
+		if e != api.OK {
+			return e
+		}
+	}
+	return api.OK
+}
+
 // Shared returns what two intervals have in common; without that, its ends are
 // in the wrong order.
 func Shared(a, b api.Interval) api.Interval {
@@ -93,6 +105,15 @@ func Mapped[A, B any](l []A, change func(A) B) []B {
 		out = append(out, change(x))
 	}
 	return out
+}
+
+// Folded returns all elements of a list together, or nothing of an empty one.
+func Folded[T any](l []T, join func(T, T) T) T {
+	var all T
+	for _, x := range l {
+		all = join(all, x)
+	}
+	return all
 }
 
 // Divisor returns the greatest common divisor; of 0 and a number it is the

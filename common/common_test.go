@@ -68,6 +68,33 @@ func TestCheckDistinctOfLaterChecks(t *testing.T) {
 	}
 }
 
+func TestCheckAscending(t *testing.T) {
+	check := func(n int) api.Errno { return common.When(n%10 == 0, api.ErrZero) }
+	isBelow := func(a, b int) bool { return a/10 < b/10 }
+	for _, x := range []struct {
+		l []int
+		e api.Errno
+	}{
+		{nil, api.OK}, {[]int{-5}, api.OK}, {[]int{5, 15, 25}, api.OK}, {[]int{0}, api.ErrZero}, {[]int{5, 7}, api.ErrOrder}, {[]int{15, 5}, api.ErrOrder}, {[]int{5, 15, 14}, api.ErrOrder}, {[]int{5, 15, 10}, api.ErrZero}, {[]int{5, 6, 20}, api.ErrOrder}, {[]int{5, 20, 6}, api.ErrZero}, {[]int{10, 5}, api.ErrZero}, {[]int{5, 15, 25, 25}, api.ErrOrder},
+	} {
+		if e := common.CheckAscending(x.l, check, isBelow); e != x.e {
+			t.Errorf("CheckAscending %v: error %d, want %d", x.l, e, x.e)
+		}
+	}
+}
+
+func TestFolded(t *testing.T) {
+	join := func(a, b string) string { return a + b + "." }
+	for _, x := range []struct {
+		l []string
+		s string
+	}{{nil, ""}, {[]string{"a"}, "a."}, {[]string{"a", "b", "c"}, "a.b.c."}} {
+		if s := common.Folded(x.l, join); s != x.s {
+			t.Errorf("Folded %q: %q, want %q", x.l, s, x.s)
+		}
+	}
+}
+
 func TestIntervals(t *testing.T) {
 	at := func(low, high int) api.Interval { return api.Interval{Low: low, High: high} }
 	for _, x := range []struct {

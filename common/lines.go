@@ -99,16 +99,36 @@ func (w *Words) Only(word string) bool {
 	return w.more && w.rest == word
 }
 
+// NumbersOf returns the numbers behind the first word of a line, or false if the
+// line has no line feed at its end, another first word, or not so many numbers.
+func NumbersOf(line, first string, count int, read func(word string) (int, bool)) ([]int, bool) {
+	left, ok := WordsOf(line, first)
+	if !ok {
+		return nil, false
+	}
+	numbers, ok := readWords(left.Next, read)
+	if !ok || len(numbers) != count {
+		return nil, false
+	}
+	return numbers, true
+}
+
 // Integers returns the words that are left as integers, or false if one is
 // none.
 func Integers(take func() (string, bool)) ([]int, bool) {
+	return readWords(take, Integer)
+}
+
+// readWords returns the numbers that are read from the words that are left, or
+// false if one cannot be read.
+func readWords(take func() (string, bool), read func(word string) (int, bool)) ([]int, bool) {
 	var numbers []int
 	for {
 		word, more := take()
 		if !more {
 			return numbers, true
 		}
-		n, ok := Integer(word)
+		n, ok := read(word)
 		if !ok {
 			return nil, false
 		}
@@ -118,20 +138,36 @@ func Integers(take func() (string, bool)) ([]int, bool) {
 
 // Integer returns the integer that a word tells in its one form.
 func Integer(word string) (int, bool) {
-	digits := strings.TrimPrefix(word, "-")
-	if len(digits) == 0 || len(digits) > maxDigits {
+	digits, isBelow := strings.CutPrefix(word, "-")
+	n, ok := Natural(digits, maxDigits)
+	if !ok || isBelow && n == 0 {
 		return 0, false
 	}
-	if digits[0] == '0' && word != "0" {
+	if isBelow {
+		return -n, true
+	}
+	return n, true
+}
+
+// Natural returns the integer that a word of at most so many digits alone tells in
+// its one form.
+func Natural(word string, most int) (int, bool) {
+	if len(word) == 0 || len(word) > most {
 		return 0, false
 	}
-	for _, r := range digits {
+	if word[0] == '0' && word != "0" {
+		return 0, false
+	}
+	for _, r := range word {
 		if !IsDigit(r) {
 			return 0, false
 		}
 	}
 	n, err := strconv.Atoi(word)
-	return n, err == nil
+	if err != nil {
+		return 0, false
+	}
+	return n, true
 }
 
 // IsDigit reports whether a rune is a decimal digit of ASCII.

@@ -101,6 +101,49 @@ func TestIntegers(t *testing.T) {
 	}
 }
 
+func TestNatural(t *testing.T) {
+	for _, x := range []struct {
+		word    string
+		most, n int
+	}{{"0", 1, 0}, {"7", 1, 7}, {"10", 2, 10}, {"999999999", 9, 999999999}, {"1000000000", 10, 1000000000}, {"9999999999", 10, 9999999999}, {"9223372036854775807", 19, 9223372036854775807}} {
+		if n, ok := common.Natural(x.word, x.most); !ok || n != x.n {
+			t.Errorf("Natural %q: %d %v", x.word, n, ok)
+		}
+	}
+	for _, word := range []string{"", "-", "-1", "-0", "00", "01", "0000000001", "+1", "1.0", "12345678901", "00000000000", "x", "1x", "\u0661", " 1", "1\r", "9223372036854775807"} {
+		if n, ok := common.Natural(word, 10); ok || n != 0 {
+			t.Errorf("Natural %q: %d", word, n)
+		}
+	}
+	if n, ok := common.Natural("9223372036854775808", 19); ok || n != 0 {
+		t.Errorf("Natural of too large a number: %d", n)
+	}
+}
+
+func TestNumbersOf(t *testing.T) {
+	for _, x := range []struct {
+		line  string
+		count int
+		l     []int
+	}{{"row 3 -4 0\n", 3, []int{3, -4, 0}}, {"row 7\n", 1, []int{7}}, {"row\n", 0, nil}} {
+		if l, ok := common.NumbersOf(x.line, "row", x.count, common.Integer); !ok || !slices.Equal(l, x.l) {
+			t.Errorf("NumbersOf %q: %v %v", x.line, l, ok)
+		}
+	}
+	for _, line := range []string{"", "row", "row 3 4", "row 3\n", "row 3 4 5\n", "rows 3 4\n", "3 4\n", "row 3 x\n", "row 3  4\n", "row 3 4 \n", " row 3 4\n", "row 3 4\n\n"} {
+		if l, ok := common.NumbersOf(line, "row", 2, common.Integer); ok || l != nil {
+			t.Errorf("NumbersOf %q: %v", line, l)
+		}
+	}
+	isLetter := func(word string) (int, bool) { return len(word), word != "b" }
+	if l, ok := common.NumbersOf("row a aa\n", "row", 2, isLetter); !ok || !slices.Equal(l, []int{1, 2}) {
+		t.Errorf("NumbersOf by another reader: %v %v", l, ok)
+	}
+	if l, ok := common.NumbersOf("row a b\n", "row", 2, isLetter); ok || l != nil {
+		t.Errorf("NumbersOf of what another reader refuses: %v", l)
+	}
+}
+
 func TestParsed(t *testing.T) {
 	read := func(line string) (int, bool) { return common.Integer(strings.TrimSuffix(line, "\n")) }
 	check := func(l []int) api.Errno { return common.CheckLength(len(l), 3) }

@@ -34,16 +34,12 @@ func CheckModel(m []Band) api.Errno {
 	if e := common.CheckLength(len(m), MaxBands); e != api.OK {
 		return e
 	}
-	for i, b := range m {
-		e := common.First(
-			checkPair(b.Gain, b.Offset),
-			common.When(i > 0 && b.Gain <= m[i-1].Gain, api.ErrOrder),
-		)
-		if e != api.OK {
-			return e
-		}
-	}
-	return api.OK
+	return common.CheckAscending(m, Band.check, func(before, b Band) bool { return before.Gain < b.Gain })
+}
+
+// check returns the error of a band by itself, or OK.
+func (b Band) check() api.Errno {
+	return checkPair(b.Gain, b.Offset)
 }
 
 // checkPair returns the first error of a gain and its offsets, or OK.

@@ -25,12 +25,8 @@ func Parse(s string) ([]Band, int, api.Errno) {
 
 // readBand returns the band of a line, or false if it does not have its form.
 func readBand(line string) (Band, bool) {
-	left, ok := common.WordsOf(line, "band")
+	l, ok := common.NumbersOf(line, "band", 3, common.Integer)
 	if !ok {
-		return Band{}, false
-	}
-	l, ok := common.Integers(left.Next)
-	if !ok || len(l) != 3 {
 		return Band{}, false
 	}
 	return Band{Gain: l[0], Offset: api.Interval{Low: l[1], High: l[2]}}, true

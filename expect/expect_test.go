@@ -1,6 +1,7 @@
 package expect_test
 
 import (
+	"slices"
 	"testing"
 
 	"spillage/api"
@@ -105,5 +106,60 @@ func TestFaults(t *testing.T) {
 	}
 	if l := expect.Faults(api.ErrZero, func(*pair, int) {}); len(faults) != 2 || len(l) != 0 {
 		t.Errorf("there are %d faults of two values, and %d of none", len(faults), len(l))
+	}
+}
+
+func TestResults(t *testing.T) {
+	none, e := expect.None(api.ErrZero)
+	one, f := expect.One(5, api.ErrForm)
+	two, g := expect.Two("a", 6, api.ErrShape)
+	three, h := expect.Three(7, "b", true, api.OK)
+	if len(none) != 0 || !slices.Equal(one, []any{5}) || !slices.Equal(two, []any{"a", 6}) || !slices.Equal(three, []any{7, "b", true}) {
+		t.Errorf("the results are %v, %v, %v and %v", none, one, two, three)
+	}
+	if e != api.ErrZero || f != api.ErrForm || g != api.ErrShape || h != api.OK {
+		t.Errorf("the errors are %d, %d, %d and %d", e, f, g, h)
+	}
+}
+
+// takings returns a call with an error of the right arguments, which notes what it takes.
+func takings(notes *[]pair, wanted api.Errno) []expect.Call[pair] {
+	return []expect.Call[pair]{{What: "taken", Takes: []string{"a", "b"}, Err: wanted, Do: func(p pair) ([]any, api.Errno) {
+		*notes = append(*notes, p)
+		for _, n := range p {
+			if n > 9 {
+				return expect.One(0, api.Errno(n))
+			}
+		}
+		return expect.One(p[0]+p[1], api.OK)
+	}}}
+}
+
+func TestCalls(t *testing.T) {
+	var notes []pair
+	right := func() pair { return pair{1, 2} }
+	isZero := func(results []any) bool { return slices.Equal(results, []any{0}) }
+	isAll := func(results []any) bool { return len(results) > 1 }
+	faults := map[string][]expect.Fault[pair]{"a": {spoilt(0, 10)}, "b": {spoilt(1, 12)}}
+	for _, x := range []struct {
+		what string
+		told int
+		ask  func(t expect.Test)
+	}{
+		{"the error of the right arguments", 0, func(t expect.Test) { expect.RightArguments(t, takings(&notes, api.OK), right) }},
+		{"another error of the right arguments", 1, func(t expect.Test) { expect.RightArguments(t, takings(&notes, api.ErrZero), right) }},
+		{"the first faults", 0, func(t expect.Test) { expect.FirstFaults(t, takings(&notes, api.OK), right, faults, isZero) }},
+		{"something beside an error", 4, func(t expect.Test) { expect.FirstFaults(t, takings(&notes, api.OK), right, faults, isAll) }},
+	} {
+		c := &counted{}
+		if x.ask(c); c.told != x.told {
+			t.Errorf("%s: %d reports, want %d", x.what, c.told, x.told)
+		}
+	}
+	notes = nil
+	expect.CallAll(takings(&notes, api.OK), pair{3, 4})
+	expect.CallAfter(takings(&notes, api.OK), right, func(p *pair) { p[0] = 5 }, func(p *pair) { p[1] = 6 })
+	if !slices.Equal(notes, []pair{{3, 4}, {5, 2}, {1, 6}}) {
+		t.Errorf("the calls took %v", notes)
 	}
 }

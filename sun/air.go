@@ -13,17 +13,14 @@ func CheckAir(l []Step) api.Errno {
 	if len(l) > MaxSteps {
 		return api.ErrMany
 	}
-	for i, x := range l {
-		e := common.First(
-			common.CheckRange(x.From, -MaxSteep, MaxSteep),
-			common.CheckRange(x.Lift, 0, MaxLift),
-			common.When(i > 0 && x.From <= l[i-1].From, api.ErrOrder),
-		)
-		if e != api.OK {
-			return e
-		}
-	}
-	return api.OK
+	return common.CheckAscending(l, checkStep, func(before, x Step) bool { return before.From < x.From })
+}
+
+func checkStep(x Step) api.Errno {
+	return common.First(
+		common.CheckRange(x.From, -MaxSteep, MaxSteep),
+		common.CheckRange(x.Lift, 0, MaxLift),
+	)
 }
 
 // placed is a step with its place in the air; nowhere is the place of no step.
