@@ -149,11 +149,6 @@ func rightArguments() arguments {
 
 type fault = expect.Fault[arguments]
 
-// ranged returns the faults of a number that is not from low to high.
-func ranged(low, high int, put func(a *arguments, n int)) []fault {
-	return expect.Faults(api.ErrRange, put, expect.Outside(low, high)...)
-}
-
 // mapFaults are those of a map and of an image.
 func mapFaults(put func(a *arguments, m light.Map)) []fault {
 	last := func(x float32) light.Map { m := a(); m.Samples[11] = x; return m }
@@ -169,17 +164,17 @@ func mapFaults(put func(a *arguments, m light.Map)) []fault {
 // pointFaults are those of a point with parts from -most to most.
 func pointFaults(most int, put func(a *arguments, p api.Point)) []fault {
 	return slices.Concat(
-		ranged(-most, most, func(a *arguments, n int) { put(a, at(n, 0)) }),
-		ranged(-most, most, func(a *arguments, n int) { put(a, at(most, n)) }),
-		ranged(-most, most, func(a *arguments, n int) { put(a, at(n, n)) }),
+		expect.Ranged(-most, most, func(a *arguments, n int) { put(a, at(n, 0)) }),
+		expect.Ranged(-most, most, func(a *arguments, n int) { put(a, at(most, n)) }),
+		expect.Ranged(-most, most, func(a *arguments, n int) { put(a, at(n, n)) }),
 	)
 }
 
 func driftFaults(put func(a *arguments, d cloud.Drift)) []fault {
 	bad := to(5000, -5000)
 	l := slices.Concat(
-		ranged(1, 1000, func(a *arguments, n int) { put(a, during(n, to(0, 0), to(0, 0))) }),
-		ranged(1, 1000, func(a *arguments, n int) { put(a, during(n, to(2, 1), bad)) }),
+		expect.Ranged(1, 1000, func(a *arguments, n int) { put(a, during(n, to(0, 0), to(0, 0))) }),
+		expect.Ranged(1, 1000, func(a *arguments, n int) { put(a, during(n, to(2, 1), bad)) }),
 		expect.Faults(api.ErrRange, put, cloud.Drift{}),
 	)
 	for _, axis := range []func(x api.Interval) cloud.Drift{
@@ -188,7 +183,7 @@ func driftFaults(put func(a *arguments, d cloud.Drift)) []fault {
 		func(x api.Interval) cloud.Drift { return during(1000, to(-4, 4), x) },
 	} {
 		end := func(x func(n int) api.Interval) []fault {
-			return ranged(-1000, 1000, func(a *arguments, n int) { put(a, axis(x(n))) })
+			return expect.Ranged(-1000, 1000, func(a *arguments, n int) { put(a, axis(x(n))) })
 		}
 		l = slices.Concat(l,
 			end(func(n int) api.Interval { return to(n, 0) }), end(func(n int) api.Interval { return to(0, n) }), end(func(n int) api.Interval { return to(n, n) }), end(func(n int) api.Interval { return to(1000, n) }),
@@ -231,17 +226,17 @@ func faults() map[string][]fault {
 		"limit":   slices.Concat(expect.Faults(api.ErrForm, limit, nan(), inf(1), inf(-1)), expect.Faults(api.ErrRange, limit, 0, minusZero(), -1, -0.0625, -1024, 0.03125, 1024.0625, -1024.0625, 1e30, math.MaxFloat32, math.SmallestNonzeroFloat32)),
 		"cloud":   append(pathFaults(4096, group), expect.Faults(api.ErrEmpty, group, nil, points())...),
 		"shift":   pointFaults(100000, func(a *arguments, p api.Point) { a.shift = p }),
-		"most":    ranged(0, 8, func(a *arguments, n int) { a.most = n }),
-		"least":   ranged(1, 4096, func(a *arguments, n int) { a.least = n }),
-		"ticks":   ranged(1, 1000, func(a *arguments, n int) { a.ticks = n }),
-		"blur":    ranged(0, 4, func(a *arguments, n int) { a.blur = n }),
+		"most":    expect.Ranged(0, 8, func(a *arguments, n int) { a.most = n }),
+		"least":   expect.Ranged(1, 4096, func(a *arguments, n int) { a.least = n }),
+		"ticks":   expect.Ranged(1, 1000, func(a *arguments, n int) { a.ticks = n }),
+		"blur":    expect.Ranged(0, 4, func(a *arguments, n int) { a.blur = n }),
 		"drift":   driftFaults(func(a *arguments, d cloud.Drift) { a.drift = d }),
 		"second":  driftFaults(func(a *arguments, d cloud.Drift) { a.second = d }),
 		"motion":  pointFaults(1000, func(a *arguments, p api.Point) { a.motion = p }),
-		"t":       ranged(0, 1000, func(a *arguments, n int) { a.t = n }),
+		"t":       expect.Ranged(0, 1000, func(a *arguments, n int) { a.t = n }),
 		"cells":   pathFaults(256, func(a *arguments, l []api.Point) { a.cells = l }),
 		"cell":    pointFaults(100000, func(a *arguments, p api.Point) { a.cell = p }),
-		"horizon": ranged(1, 1000, func(a *arguments, n int) { a.horizon = n }),
+		"horizon": expect.Ranged(1, 1000, func(a *arguments, n int) { a.horizon = n }),
 		"height":  heightFaults(),
 		"sun":     sunFaults(),
 		"segment": segmentFaults(func(a *arguments, s [2]api.Point) { a.segment = s }), "crossing": segmentFaults(func(a *arguments, s [2]api.Point) { a.crossing = s }),
@@ -256,7 +251,7 @@ func faults() map[string][]fault {
 func heightFaults() []fault {
 	height := func(a *arguments, x api.Interval) { a.height = x }
 	return slices.Concat(
-		ranged(1, 10000, func(a *arguments, n int) { a.height = to(n, 10) }), ranged(1, 10000, func(a *arguments, n int) { a.height = to(10, n) }), ranged(1, 10000, func(a *arguments, n int) { a.height = to(n, n) }), ranged(1, 10000, func(a *arguments, n int) { a.height = to(10000, n) }),
+		expect.Ranged(1, 10000, func(a *arguments, n int) { a.height = to(n, 10) }), expect.Ranged(1, 10000, func(a *arguments, n int) { a.height = to(10, n) }), expect.Ranged(1, 10000, func(a *arguments, n int) { a.height = to(n, n) }), expect.Ranged(1, 10000, func(a *arguments, n int) { a.height = to(10000, n) }),
 		expect.Faults(api.ErrOrder, height, to(2, 1), to(10000, 1), to(10000, 9999)),
 	)
 }
@@ -264,7 +259,7 @@ func heightFaults() []fault {
 func sunFaults() []fault {
 	put := func(a *arguments, v api.Vector) { a.sun = v }
 	return slices.Concat(
-		ranged(-4096, 4096, func(a *arguments, n int) { a.sun = sun(n, 0, 1) }), ranged(-4096, 4096, func(a *arguments, n int) { a.sun = sun(0, n, 4096) }), ranged(-4096, 4096, func(a *arguments, n int) { a.sun = sun(0, 0, n) }), ranged(-4096, 4096, func(a *arguments, n int) { a.sun = sun(n, n, 0) }), ranged(-4096, 4096, func(a *arguments, n int) { a.sun = sun(0, n, -1) }),
+		expect.Ranged(-4096, 4096, func(a *arguments, n int) { a.sun = sun(n, 0, 1) }), expect.Ranged(-4096, 4096, func(a *arguments, n int) { a.sun = sun(0, n, 4096) }), expect.Ranged(-4096, 4096, func(a *arguments, n int) { a.sun = sun(0, 0, n) }), expect.Ranged(-4096, 4096, func(a *arguments, n int) { a.sun = sun(n, n, 0) }), expect.Ranged(-4096, 4096, func(a *arguments, n int) { a.sun = sun(0, n, -1) }),
 		expect.Faults(api.ErrZero, put, api.Vector{}),
 		expect.Faults(api.ErrSpan, put, sun(1, 0, 0), sun(0, -1, 0), sun(4096, 4096, 0), sun(0, 0, -1), sun(3, -1, -4096)),
 	)

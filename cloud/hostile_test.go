@@ -92,26 +92,18 @@ func spoil(results []any) {
 	for _, x := range results {
 		switch x := x.(type) {
 		case []int:
-			for i := range x[:cap(x)] {
-				x[:cap(x)][i] = -7
-			}
+			expect.Fill(x, -7)
 		case []bool:
 			for i, is := range x[:cap(x)] {
 				x[:cap(x)][i] = !is
 			}
 		case []api.Point:
-			spoilPoints(x)
+			expect.Fill(x, at(-7, -7))
 		case []cloud.Cloud:
 			for _, c := range x {
-				spoilPoints(c)
+				expect.Fill(c, at(-7, -7))
 			}
 		}
-	}
-}
-
-func spoilPoints(l []api.Point) {
-	for i := range l[:cap(l)] {
-		l[:cap(l)][i] = at(-7, -7)
 	}
 }
 

@@ -113,6 +113,27 @@ func NumbersOf(line, first string, count int, read func(word string) (int, bool)
 	return numbers, true
 }
 
+// Number is an integer of what a line tells.
+type Number[T any] struct {
+	Of func(x *T) *int
+}
+
+// LineOf returns the line of a word and some integers of x.
+func LineOf[T any](word string, x T, numbers []Number[T]) string {
+	return Line(word, Mapped(numbers, func(n Number[T]) int { return *n.Of(&x) })...)
+}
+
+// ReadLine returns what has the integers behind the first word of a line, or false
+// if the line does not have its form.
+func ReadLine[T any](line, first string, numbers []Number[T]) (T, bool) {
+	var x T
+	l, ok := NumbersOf(line, first, len(numbers), Integer)
+	for i, n := range l {
+		*numbers[i].Of(&x) = n
+	}
+	return x, ok
+}
+
 // Integers returns the words that are left as integers, or false if one is
 // none.
 func Integers(take func() (string, bool)) ([]int, bool) {

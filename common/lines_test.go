@@ -144,6 +144,32 @@ func TestNumbersOf(t *testing.T) {
 	}
 }
 
+func TestLinesOfNumbers(t *testing.T) {
+	numbers := []common.Number[api.Span]{
+		{Of: func(x *api.Span) *int { return &x.To }},
+		{Of: func(x *api.Span) *int { return &x.From }},
+	}
+	for _, x := range []struct {
+		x    api.Span
+		line string
+	}{{api.Span{From: 3, To: -4}, "span -4 3\n"}, {api.Span{}, "span 0 0\n"}, {api.Span{From: 999999999}, "span 0 999999999\n"}} {
+		if line := common.LineOf("span", x.x, numbers); line != x.line {
+			t.Errorf("LineOf %v: %q, want %q", x.x, line, x.line)
+		}
+		if got, ok := common.ReadLine(x.line, "span", numbers); !ok || got != x.x {
+			t.Errorf("ReadLine %q: %v %v, want %v", x.line, got, ok, x.x)
+		}
+	}
+	for _, line := range []string{"", "span 1 2", "span 1\n", "span 1 2 3\n", "spans 1 2\n", "span 1 x\n", "span 1 -0\n", "span 1 2 \n", "span 1 1234567890\n"} {
+		if got, ok := common.ReadLine(line, "span", numbers); ok || got != (api.Span{}) {
+			t.Errorf("ReadLine %q: %v", line, got)
+		}
+	}
+	if line := common.LineOf("span", api.Span{From: 1}, nil); line != "span\n" {
+		t.Errorf("LineOf no numbers: %q", line)
+	}
+}
+
 func TestParsed(t *testing.T) {
 	read := func(line string) (int, bool) { return common.Integer(strings.TrimSuffix(line, "\n")) }
 	check := func(l []int) api.Errno { return common.CheckLength(len(l), 3) }

@@ -23,6 +23,58 @@ func TestSamples(t *testing.T) {
 	}
 }
 
+func TestIntegerOfAPart(t *testing.T) {
+	for _, x := range []struct {
+		part    float64
+		integer int
+	}{{0, 0}, {-256, -4096}, {0.0625, 1}, {4096.9375, 65551}, {1 << 40, 1 << 44}} {
+		if n := common.IntegerOf(x.part); n != x.integer {
+			t.Errorf("IntegerOf %v: %d, want %d", x.part, n, x.integer)
+		}
+	}
+}
+
+func TestIsFinite(t *testing.T) {
+	for _, x := range []float64{0, math.Copysign(0, -1), 1, -1, math.MaxFloat64, -math.MaxFloat64, math.SmallestNonzeroFloat64} {
+		if !common.IsFinite(x) {
+			t.Errorf("%v is not finite", x)
+		}
+	}
+	for _, x := range []float64{math.NaN(), math.Inf(1), math.Inf(-1)} {
+		if common.IsFinite(x) || common.IsFinite(float32(x)) {
+			t.Errorf("%v is finite", x)
+		}
+	}
+}
+
+func TestIsMultiple(t *testing.T) {
+	for _, x := range []struct {
+		x  float64
+		is bool
+	}{{0, true}, {math.Copysign(0, -1), true}, {0.0625, true}, {-2.9375, true}, {3, true}, {-3, true}, {3.0625, false}, {-3.0625, false}, {0.03125, false}, {-1.0001, false}, {1e-300, false}, {math.SmallestNonzeroFloat64, false}, {math.MaxFloat64, false}, {-math.MaxFloat64, false}, {1e30, false}} {
+		if is := common.IsMultiple(x.x, 3); is != x.is {
+			t.Errorf("IsMultiple %v: %v", x.x, is)
+		}
+	}
+	if !common.IsMultiple(float32(-1.5), 3) || common.IsMultiple(float32(1.0/3), 3) {
+		t.Error("IsMultiple of float32 is wrong")
+	}
+}
+
+func TestCheckNumber(t *testing.T) {
+	nan, inf := math.NaN(), math.Inf(1)
+	for _, x := range []struct {
+		x complex128
+		e api.Errno
+	}{
+		{0, api.OK}, {3 - 3i, api.OK}, {-0.0625 + 2.9375i, api.OK}, {complex(nan, 0), api.ErrForm}, {complex(0, nan), api.ErrForm}, {complex(inf, 0), api.ErrForm}, {complex(0, -inf), api.ErrForm}, {complex(4, nan), api.ErrForm}, {complex(-inf, 4), api.ErrForm}, {3.0625, api.ErrRange}, {-3.0625, api.ErrRange}, {3.0625i, api.ErrRange}, {-3.0625i, api.ErrRange}, {0.03125 + 1i, api.ErrRange}, {1 + 0.03125i, api.ErrRange},
+	} {
+		if e := common.CheckNumber(x.x, 3); e != x.e {
+			t.Errorf("CheckNumber %v: error %d, want %d", x.x, e, x.e)
+		}
+	}
+}
+
 func TestPlaces(t *testing.T) {
 	if l := slices.Collect(common.Places(2, 3)); !slices.Equal(l, []api.Point{{}, {X: 1}, {Y: 1}, {X: 1, Y: 1}, {Y: 2}, {X: 1, Y: 2}}) {
 		t.Errorf("Places: %v", l)

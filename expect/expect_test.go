@@ -109,6 +109,33 @@ func TestFaults(t *testing.T) {
 	}
 }
 
+func TestRanged(t *testing.T) {
+	outside := expect.Outside(-3, 7)
+	faults := expect.Ranged(-3, 7, func(p *pair, n int) { p[1] = n })
+	if len(faults) != len(outside) {
+		t.Fatalf("there are %d faults of %d numbers", len(faults), len(outside))
+	}
+	for i, n := range outside {
+		var p pair
+		if faults[i].Spoil(&p); p != (pair{0, n}) || faults[i].Err != api.ErrRange {
+			t.Errorf("the fault %d makes %v, error %d", i, p, faults[i].Err)
+		}
+	}
+}
+
+func TestLists(t *testing.T) {
+	l := []int{1, 2}
+	spare := expect.Spare(l)
+	if !slices.Equal(spare, l) || cap(spare) <= len(spare) {
+		t.Errorf("Spare: %v of %d", spare, cap(spare))
+	}
+	expect.Fill(spare[:1], 7)
+	if all := spare[:cap(spare)]; !slices.Equal(all, slices.Repeat([]int{7}, len(all))) || !slices.Equal(l, []int{1, 2}) {
+		t.Errorf("Fill: %v, and %v", all, l)
+	}
+	expect.Fill(nil, 7)
+}
+
 func TestResults(t *testing.T) {
 	none, e := expect.None(api.ErrZero)
 	one, f := expect.One(5, api.ErrForm)

@@ -20,6 +20,11 @@ func Faults[A, T any](e api.Errno, put func(a *A, x T), values ...T) []Fault[A] 
 	return faults
 }
 
+// Ranged returns the faults of a number that is not from low to high.
+func Ranged[A any](low, high int, put func(a *A, n int)) []Fault[A] {
+	return Faults(api.ErrRange, put, Outside(low, high)...)
+}
+
 // FirstFault reports where the first wrong one of the arguments that a call takes
 // does not decide: each fault of each of them, alone and before faults of the
 // arguments behind it, gives its error. The call returns its error, and whether

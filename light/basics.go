@@ -1,8 +1,6 @@
 package light
 
 import (
-	"math"
-
 	"spillage/api"
 	"spillage/common"
 )
@@ -63,24 +61,13 @@ func CheckRatio(x api.Ratio) api.Errno {
 
 // CheckSample returns the first error of a sample, or OK.
 func CheckSample(x float32) api.Errno {
-	if !isFinite(x) {
+	if !common.IsFinite(x) {
 		return api.ErrForm
 	}
-	if !isMultiple(x, api.MaxValue) {
+	if !common.IsMultiple(x, api.MaxValue) {
 		return api.ErrRange
 	}
 	return api.OK
-}
-
-func isFinite(x float32) bool {
-	return !math.IsNaN(float64(x)) && !math.IsInf(float64(x), 0)
-}
-
-// isMultiple reports whether a finite number is a multiple of 1/16 from -limit
-// to limit.
-func isMultiple(x float32, limit float64) bool {
-	n := float64(x) * common.Fineness
-	return n == math.Trunc(n) && math.Abs(n) <= limit*common.Fineness
 }
 
 // CheckVector returns the first error of a vector, or OK.

@@ -47,11 +47,5 @@ func Unfour(p [4]complex64) ([4]float32, api.Errno) {
 // checkNumber returns the first error of a number of a panel, or OK. Multiples
 // of 1/16 so small are added and divided by 4 without being rounded.
 func checkNumber(x complex64) api.Errno {
-	if !isFinite(real(x)) || !isFinite(imag(x)) {
-		return api.ErrForm
-	}
-	if !isMultiple(real(x), 4*api.MaxValue) || !isMultiple(imag(x), 4*api.MaxValue) {
-		return api.ErrRange
-	}
-	return api.OK
+	return common.CheckNumber(complex128(x), 4*api.MaxValue)
 }

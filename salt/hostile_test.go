@@ -56,12 +56,9 @@ func TestNoPanicOfWords(t *testing.T) {
 	}
 }
 
-// spare returns a copy of a list with room behind it.
-func spare[T any](l []T) []T { return append(make([]T, 0, len(l)+9), l...) }
-
 // spared returns a copy of arguments that shares no memory with them, and has room behind all lists.
 func spared(a arguments) arguments {
-	a.steps, a.told, a.history, a.cycles, a.rest, a.classes, a.tank.Layers = spare(a.steps), spare(a.told), spare(a.history), spare(a.cycles), spare(a.rest), spare(a.classes), spare(a.tank.Layers)
+	a.steps, a.told, a.history, a.cycles, a.rest, a.classes, a.tank.Layers = expect.Spare(a.steps), expect.Spare(a.told), expect.Spare(a.history), expect.Spare(a.cycles), expect.Spare(a.rest), expect.Spare(a.classes), expect.Spare(a.tank.Layers)
 	return a
 }
 
@@ -76,22 +73,15 @@ func sparedResults(results []any) []any {
 	for i, x := range out {
 		switch x := x.(type) {
 		case []int:
-			out[i] = spare(x)
+			out[i] = expect.Spare(x)
 		case []salt.Cycle:
-			out[i] = spare(x)
+			out[i] = expect.Spare(x)
 		case salt.Tank:
-			x.Layers = spare(x.Layers)
+			x.Layers = expect.Spare(x.Layers)
 			out[i] = x
 		}
 	}
 	return out
-}
-
-// filledWith changes all elements of a list, and what may stand behind them in their memory.
-func filledWith[T any](l []T, x T) {
-	for i := range l[:cap(l)] {
-		l[:cap(l)][i] = x
-	}
 }
 
 // spoil changes the elements of all lists among some results.
@@ -99,11 +89,11 @@ func spoil(results []any) {
 	for _, x := range results {
 		switch x := x.(type) {
 		case []int:
-			filledWith(x, -7)
+			expect.Fill(x, -7)
 		case []salt.Cycle:
-			filledWith(x, salt.Cycle{From: -7})
+			expect.Fill(x, salt.Cycle{From: -7})
 		case salt.Tank:
-			filledWith(x.Layers, salt.Layer{Amount: -7})
+			expect.Fill(x.Layers, salt.Layer{Amount: -7})
 		}
 	}
 }
@@ -132,11 +122,11 @@ func TestArgumentsStay(t *testing.T) {
 // TestResultsShareNoMemory checks that the lists of one result do not change one another.
 func TestResultsShareNoMemory(t *testing.T) {
 	c, rest, e := salt.Rainflow(ints(0, 5, 3, 4, -1))
-	filledWith(rest, 9)
+	expect.Fill(rest, 9)
 	expect.List(t, "the cycles after a change of the rest", c, e, cycles(3, 4), api.OK)
 	first, _, _ := salt.Parse(textOfT)
 	second, _, _ := salt.Parse(textOfT)
-	filledWith(first.Layers, salt.Layer{})
+	expect.Fill(first.Layers, salt.Layer{})
 	if !sameTank(second, shown()) {
 		t.Errorf("Parse shares memory: %v", second)
 	}
