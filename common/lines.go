@@ -7,7 +7,8 @@ import (
 	"spillage/api"
 )
 
-const maxDigits = 9
+// MaxDigits is how many digits an integer of a text has at most.
+const MaxDigits = 9
 
 // Line returns the line of a word and integers.
 func Line(word string, numbers ...int) string {
@@ -73,11 +74,16 @@ type Words struct {
 	more bool
 }
 
+// WordsIn returns all words of a string.
+func WordsIn(s string) Words {
+	return Words{rest: s, more: true}
+}
+
 // WordsOf returns the words of a line behind its first one, or false if the line
 // has no line feed at its end, or another first word.
 func WordsOf(line, first string) (Words, bool) {
 	body, ended := strings.CutSuffix(line, "\n")
-	left := Words{rest: body, more: true}
+	left := WordsIn(body)
 	if word, _ := left.Next(); !ended || word != first {
 		return Words{}, false
 	}
@@ -134,6 +140,21 @@ func ReadLine[T any](line, first string, numbers []Number[T]) (T, bool) {
 	return x, ok
 }
 
+// Taken returns what is read of the next words, which are so many, or false if one of
+// them cannot be read; where no word is left, the empty one is read.
+func Taken[T any](take func() (string, bool), count int, read func(word string) (T, bool)) ([]T, bool) {
+	var l []T
+	for range count {
+		word, _ := take()
+		x, ok := read(word)
+		if !ok {
+			return nil, false
+		}
+		l = append(l, x)
+	}
+	return l, true
+}
+
 // Integers returns the words that are left as integers, or false if one is
 // none.
 func Integers(take func() (string, bool)) ([]int, bool) {
@@ -160,7 +181,7 @@ func readWords(take func() (string, bool), read func(word string) (int, bool)) (
 // Integer returns the integer that a word tells in its one form.
 func Integer(word string) (int, bool) {
 	digits, isBelow := strings.CutPrefix(word, "-")
-	n, ok := Natural(digits, maxDigits)
+	n, ok := Natural(digits, MaxDigits)
 	if !ok || isBelow && n == 0 {
 		return 0, false
 	}

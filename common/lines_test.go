@@ -85,6 +85,44 @@ func TestOnly(t *testing.T) {
 	}
 }
 
+func TestWordsIn(t *testing.T) {
+	for _, x := range []struct {
+		s string
+		l []string
+	}{{"", []string{""}}, {"a", []string{"a"}}, {"a b", []string{"a", "b"}}, {" a  b ", []string{"", "a", "", "b", ""}}, {"a\n b\n", []string{"a\n", "b\n"}}} {
+		left := common.WordsIn(x.s)
+		for _, wanted := range x.l {
+			if word, more := left.Next(); word != wanted || !more {
+				t.Errorf("a word of %q: %q %v, want %q", x.s, word, more, wanted)
+			}
+		}
+		if word, more := left.Next(); word != "" || more {
+			t.Errorf("behind the words of %q: %q", x.s, word)
+		}
+	}
+}
+
+func TestTaken(t *testing.T) {
+	for _, x := range []struct {
+		s     string
+		count int
+		l     []int
+		ok    bool
+		next  string
+	}{
+		{"4 -2 0 9", 3, []int{4, -2, 0}, true, "9"}, {"4 -2", 2, []int{4, -2}, true, ""}, {"4 x", 1, []int{4}, true, "x"}, {"4 x", 0, nil, true, "4"}, {"", 0, nil, true, ""}, {"4 x 5", 2, nil, false, "5"}, {"4", 2, nil, false, ""}, {"4 ", 2, nil, false, ""}, {"", 1, nil, false, ""},
+	} {
+		left := common.WordsIn(x.s)
+		l, ok := common.Taken(left.Next, x.count, common.Integer)
+		if !slices.Equal(l, x.l) || ok != x.ok {
+			t.Errorf("Taken %d of %q: %v %v", x.count, x.s, l, ok)
+		}
+		if word, _ := left.Next(); word != x.next {
+			t.Errorf("behind %d of %q: %q, want %q", x.count, x.s, word, x.next)
+		}
+	}
+}
+
 func TestIntegers(t *testing.T) {
 	left, _ := common.WordsOf("row 3 -4 0 999999999\n", "row")
 	if l, ok := common.Integers(left.Next); !ok || !slices.Equal(l, []int{3, -4, 0, 999999999}) {
